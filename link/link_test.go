@@ -1,0 +1,886 @@
+package link_test
+
+import (
+	"fmt"
+	"math"
+	"slices"
+	"testing"
+
+	"nacre/api"
+	"nacre/audit"
+	"nacre/class"
+	"nacre/half"
+	"nacre/info"
+	"nacre/link"
+	"nacre/place"
+	"nacre/view"
+)
+
+// six is the configuration of six pages whose cells some tests write out: Next of the page p is the cell 40 and 6 times p, Prev the one behind it.
+var six = api.Config{Threads: 2, Pages: 6, Shift: 10}
+
+// bin is the head of the list that those tests have: that of the bin 1.
+const bin = 3
+
+// rights are right configurations, the least and the greatest among them.
+var rights = []api.Config{
+	{Threads: 1, Pages: 4, Shift: 10}, {Threads: 16, Pages: 4, Shift: 20}, six, {Threads: 3, Pages: 33, Shift: 12},
+	{Threads: 1, Pages: 1024, Shift: 20}, {Threads: 16, Pages: 1024, Shift: 10},
+}
+
+// wrongs are configurations that are not right, and have pages.
+var wrongs = []api.Config{
+	{Threads: 0, Pages: 6, Shift: 10}, {Threads: 17, Pages: 6, Shift: 10}, {Threads: -1, Pages: 6, Shift: 10},
+	{Threads: 2, Pages: 3, Shift: 10}, {Threads: 2, Pages: 1, Shift: 10}, {Threads: 2, Pages: 1025, Shift: 10},
+	{Threads: 2, Pages: 6, Shift: 9}, {Threads: 2, Pages: 6, Shift: 21}, {Threads: 2, Pages: 6, Shift: -1},
+	{Threads: 2, Pages: 1 << 17, Shift: 10},
+}
+
+// pageless are configurations that have no pages.
+var pageless = []api.Config{{}, {Threads: 2, Pages: 0, Shift: 10}, {Threads: 2, Pages: -6, Shift: 10}, {Threads: 2, Pages: math.MinInt, Shift: 10}}
+
+// noPages are numbers of no page of a configuration of fewer than 4096, also those of which the low bits are one's.
+var noPages = []int{
+	-1, -2, -6, -1024, -1 << 16, -1 << 31, -1 << 32, -1<<32 + 2, math.MinInt, math.MinInt + 2,
+	4096, 1 << 16, 1<<16 + 2, 1 << 31, 1<<31 + 2, 1 << 32, 1<<32 + 2, 1 << 60, math.MaxInt - 1, math.MaxInt,
+}
+
+// noLinks are values that are the link of no page of the six.
+var noLinks = []uint32{7, 8, 255, 256 + 3, 1<<16 + 3, 1 << 31, 1<<31 + 3, math.MaxUint32 - 1, math.MaxUint32}
+
+// heads are cells at which the lists of a heap begin.
+func heads() []int {
+	var l []int
+	for head := 2; head < 22; head++ {
+		l = append(l, head)
+	}
+	return l
+}
+
+// noCells are no cells of a View of fewer than 8192.
+var noCells = []int{-1, -2, -1 << 32, math.MinInt, 8192, 1 << 32, 1<<32 + bin, math.MaxInt}
+
+// rising is n values of which each is another one, and none is 0, or a link.
+func rising(n int) []uint32 {
+	vals := make([]uint32, n)
+	for i := range vals {
+		vals[i] = uint32(i)<<16 + 1<<30
+	}
+	return vals
+}
+
+// lay makes the cell of a head, and those of the pages, a list of these pages.
+func lay(c api.Config, vals []uint32, head int, pages ...int) {
+	at, ahead := head, uint32(0)
+	for _, p := range pages {
+		vals[at], vals[prev(c, p)] = uint32(p+1), ahead
+		at, ahead = next(c, p), uint32(p+1)
+	}
+	vals[at] = 0
+}
+
+// laid is values of which just those of a list of these pages are no rising ones.
+func laid(c api.Config, head int, pages ...int) []uint32 {
+	vals := rising(cells(c))
+	lay(c, vals, head, pages...)
+	return vals
+}
+
+// wantCells asks whether just these cells were read, and put, so ordered; those that were put are told by turns with their values. None may be missing.
+func wantCells(t *testing.T, v *view.View, reads []int, writes ...int) {
+	t.Helper()
+	if got := v.Reads(); !slices.Equal(got, reads) {
+		t.Fatalf("Reads() = %v, not %v", got, reads)
+	}
+	var want []api.Pair
+	for i := 0; i < len(writes); i += 2 {
+		want = append(want, api.Pair{Cell: writes[i], Val: uint32(writes[i+1])})
+	}
+	if got := v.Writes(); !slices.Equal(got, want) {
+		t.Fatalf("Writes() = %v, not %v", got, want)
+	}
+	if got := v.Missing(); got != -1 {
+		t.Fatalf("Missing() = %d", got)
+	}
+}
+
+// wantWalk asks whether a list has just these pages, so ordered.
+func wantWalk(t *testing.T, v *view.View, c api.Config, head int, pages ...int) {
+	t.Helper()
+	if got := link.Walk(v, c, head); !slices.Equal(got, pages) {
+		t.Fatalf("Walk(%v, %d) = %v, not %v", c, head, got, pages)
+	}
+}
+
+// wantList asks whether the values are those of a list of just these pages, with every Prev, and no other one turned.
+func wantList(t *testing.T, v *view.View, was []uint32, c api.Config, head int, pages ...int) {
+	t.Helper()
+	want := slices.Clone(was)
+	lay(c, want, head, pages...)
+	if got := v.Vals(); !slices.Equal(got, want) {
+		t.Fatalf("the values of %v are %v, not %v", c, got, want)
+	}
+}
+
+// P13.1: the chapter's example, at each head.
+func TestExample(t *testing.T) {
+	for _, c := range rights {
+		for _, head := range heads() {
+			v := view.Whole(make([]uint32, cells(c)))
+			link.Push(v, c, head, 2)
+			want := make([]uint32, cells(c))
+			want[head] = 3
+			if got := v.Vals(); !slices.Equal(got, want) {
+				t.Fatalf("the values of %v are %v, not %v", c, got, want)
+			}
+			wantCells(t, v, []int{head}, next(c, 2), 0, prev(c, 2), 0, head, 3)
+			wantWalk(t, v, c, head, 2)
+		}
+	}
+}
+
+// P13.1: each page is pushed onto an empty list: what its links were is gone, also where that was the link of a page.
+func TestPushOntoNoPages(t *testing.T) {
+	for _, c := range rights {
+		for p := range c.Pages {
+			for _, was := range []uint32{0, 1, uint32(c.Pages), 1 << 30} {
+				vals := laid(c, bin)
+				vals[next(c, p)], vals[prev(c, p)] = was, was
+				v := view.Whole(vals)
+				link.Push(v, c, bin, p)
+				wantCells(t, v, []int{bin}, next(c, p), 0, prev(c, p), 0, bin, p+1)
+				wantList(t, v, vals, c, bin, p)
+			}
+		}
+	}
+}
+
+// P13.1: behind Push onto pages the page is the first one, and Prev of the one that was first names it; the others know nothing of it.
+func TestPushOntoPages(t *testing.T) {
+	vals := laid(six, bin, 4)
+	v := view.Whole(vals)
+	link.Push(v, six, bin, 2)
+	wantCells(t, v, []int{3}, 52, 5, 53, 0, 65, 3, 3, 3)
+	wantList(t, v, vals, six, bin, 2, 4)
+	link.Push(v, six, bin, 0)
+	wantCells(t, v, []int{3}, 52, 5, 53, 1, 65, 3, 3, 1, 40, 3, 41, 0)
+	wantList(t, v, vals, six, bin, 0, 2, 4)
+
+	vals = laid(six, bin, 5, 0, 3, 1)
+	v = view.Whole(vals)
+	link.Push(v, six, bin, 2)
+	wantCells(t, v, []int{3}, 52, 6, 53, 0, 71, 3, 3, 3)
+	wantList(t, v, vals, six, bin, 2, 5, 0, 3, 1)
+}
+
+// P13.1, P13.3: all pages of a heap go into one list.
+func TestPushOfAllPages(t *testing.T) {
+	for _, c := range rights {
+		vals := laid(c, bin)
+		v := view.Whole(vals)
+		var pages []int
+		for i := range c.Pages {
+			// No number of pages here has 5 in it: so each page is come to once, in no plain order.
+			p := (i*5 + 3) % c.Pages
+			link.Push(v, c, bin, p)
+			pages = slices.Insert(pages, 0, p)
+		}
+		wantWalk(t, v, c, bin, pages...)
+		wantList(t, v, vals, c, bin, pages...)
+	}
+}
+
+// P13.2: the only page is pulled.
+func TestPullOfTheOnlyPage(t *testing.T) {
+	for _, c := range rights {
+		for p := range c.Pages {
+			vals := laid(c, bin, p)
+			v := view.Whole(vals)
+			link.Pull(v, c, bin, p)
+			wantCells(t, v, []int{next(c, p), prev(c, p)}, bin, 0, next(c, p), 0, prev(c, p), 0)
+			wantList(t, v, vals, c, bin)
+		}
+	}
+	v := view.Whole(laid(six, bin, 2))
+	link.Pull(v, six, bin, 2)
+	wantCells(t, v, []int{52, 53}, 3, 0, 52, 0, 53, 0)
+}
+
+// P13.2: the first page is pulled: the head leads to the one behind it, which has none ahead.
+func TestPullOfTheFirstPage(t *testing.T) {
+	vals := laid(six, bin, 4, 0, 5)
+	v := view.Whole(vals)
+	link.Pull(v, six, bin, 4)
+	wantCells(t, v, []int{64, 65}, 3, 1, 41, 0, 64, 0, 65, 0)
+	vals[64], vals[65] = 0, 0
+	wantList(t, v, vals, six, bin, 0, 5)
+}
+
+// P13.2: the last page is pulled: the one ahead of it has none behind; the head is not asked.
+func TestPullOfTheLastPage(t *testing.T) {
+	vals := laid(six, bin, 4, 0, 5)
+	v := view.Whole(vals)
+	link.Pull(v, six, bin, 5)
+	wantCells(t, v, []int{70, 71}, 40, 0, 70, 0, 71, 0)
+	vals[70], vals[71] = 0, 0
+	wantList(t, v, vals, six, bin, 4, 0)
+}
+
+// P13.2: a page between two is pulled: they are side by side then.
+func TestPullOfAPageBetweenTwo(t *testing.T) {
+	vals := laid(six, bin, 4, 0, 5)
+	v := view.Whole(vals)
+	link.Pull(v, six, bin, 0)
+	wantCells(t, v, []int{40, 41}, 64, 6, 71, 5, 40, 0, 41, 0)
+	vals[40], vals[41] = 0, 0
+	wantList(t, v, vals, six, bin, 4, 5)
+}
+
+// P13.2: each page of lists of each length is pulled, at each head.
+func TestPullOfEachPage(t *testing.T) {
+	order := []int{3, 5, 0, 4, 2, 1}
+	for _, head := range heads() {
+		for n := range order {
+			pages := order[:n+1]
+			for i, p := range pages {
+				vals := laid(six, head, pages...)
+				v := view.Whole(vals)
+				link.Pull(v, six, head, p)
+				vals[next(six, p)], vals[prev(six, p)] = 0, 0
+				left := slices.Delete(slices.Clone(pages), i, i+1)
+				wantList(t, v, vals, six, head, left...)
+				wantWalk(t, v, six, head, left...)
+			}
+		}
+	}
+}
+
+// P13.1, P13.2: of a page that is none nothing is read or put, nor is anything missing, whatever the configuration is.
+func TestPagesThatAreNone(t *testing.T) {
+	wantNothing := func(c api.Config, p int) {
+		t.Helper()
+		for _, head := range []int{bin, 13, 0, 41, -1} {
+			for _, v := range []*view.View{view.Whole(make([]uint32, 200)), view.Whole(rising(200)), view.Known(200, nil)} {
+				link.Push(v, c, head, p)
+				link.Pull(v, c, head, p)
+				wantCells(t, v, nil)
+			}
+		}
+	}
+	for _, c := range slices.Concat(rights, wrongs, pageless) {
+		for _, p := range noPages {
+			if p < 0 || p >= c.Pages {
+				wantNothing(c, p)
+			}
+		}
+		for _, p := range []int{c.Pages, c.Pages + 1} {
+			if p < 0 || p >= c.Pages {
+				wantNothing(c, p)
+			}
+		}
+	}
+	for _, c := range pageless {
+		wantNothing(c, 0)
+		wantNothing(c, 2)
+	}
+}
+
+// P13.1, P13.2: the number of all pages is no page's; the one ahead of it is the last page's.
+func TestLastPage(t *testing.T) {
+	for _, c := range rights {
+		vals := laid(c, bin, 1)
+		v := view.Whole(vals)
+		link.Push(v, c, bin, c.Pages)
+		link.Pull(v, c, bin, c.Pages)
+		wantCells(t, v, nil)
+		link.Push(v, c, bin, c.Pages-1)
+		wantList(t, v, vals, c, bin, c.Pages-1, 1)
+		link.Pull(v, c, bin, c.Pages-1)
+		wantWalk(t, v, c, bin, 1)
+	}
+}
+
+// P13.1: of a configuration that is not right just the head is read and put: all cells of its pages are none.
+func TestPushOfAWrongConfiguration(t *testing.T) {
+	for _, c := range wrongs {
+		for _, p := range []int{0, 1, 2, c.Pages/2 - 1, c.Pages - 1} {
+			if p < 0 || p >= c.Pages {
+				continue
+			}
+			for _, h := range []uint32{0, 1, 3, math.MaxUint32} {
+				vals := rising(100)
+				vals[bin] = h
+				v := view.Whole(vals)
+				link.Push(v, c, bin, p)
+				wantCells(t, v, []int{bin}, bin, p+1)
+			}
+		}
+	}
+}
+
+// P13.2: of a configuration that is not right nothing is read, and just the head is put: to 0, for there is no page behind.
+func TestPullOfAWrongConfiguration(t *testing.T) {
+	for _, c := range wrongs {
+		for _, p := range []int{0, 1, 2, c.Pages/2 - 1, c.Pages - 1} {
+			if p < 0 || p >= c.Pages {
+				continue
+			}
+			for _, v := range []*view.View{view.Whole(make([]uint32, 100)), view.Whole(rising(100)), view.Known(100, nil)} {
+				link.Pull(v, c, bin, p)
+				wantCells(t, v, nil, bin, 0)
+			}
+		}
+	}
+}
+
+// P13.3: of a configuration that is not right one page is told, if the head is its link, for its Next is none.
+func TestWalkOfAWrongConfiguration(t *testing.T) {
+	for _, c := range wrongs {
+		for _, l := range []uint32{0, 1, 2, 3, 6, 7, 1024, 1025, 1026, math.MaxInt32, math.MaxUint32} {
+			vals := make([]uint32, 100)
+			vals[bin] = l
+			v := view.Whole(vals)
+			if l >= 1 && int(l) <= c.Pages {
+				wantWalk(t, v, c, bin, int(l)-1)
+			} else {
+				wantWalk(t, v, c, bin)
+			}
+			wantCells(t, v, []int{bin})
+		}
+	}
+	for _, c := range pageless {
+		for _, l := range []uint32{0, 1, 2, 1 << 31, math.MaxUint32 - 5, math.MaxUint32} {
+			v := view.Whole([]uint32{0, 0, 0, l})
+			wantWalk(t, v, c, bin)
+			wantCells(t, v, []int{bin})
+		}
+	}
+}
+
+// P13.1 to P13.3: a configuration that is not right may have very many pages. A page's link is a value of a cell: so those are asked that have one.
+func TestVeryManyPages(t *testing.T) {
+	for _, pages := range []int{1 << 12, 1 << 32, math.MaxInt} {
+		c := api.Config{Threads: 2, Pages: pages, Shift: 10}
+		for _, p := range []int{2, 1 << 11, 1 << 16, 1 << 31, math.MaxUint32 - 1} {
+			if p >= pages {
+				continue
+			}
+			v := view.Whole(make([]uint32, 100))
+			link.Push(v, c, bin, p)
+			wantCells(t, v, []int{bin}, bin, p+1)
+			wantWalk(t, v, c, bin, p)
+			link.Pull(v, c, bin, p)
+			wantCells(t, v, []int{bin}, bin, 0)
+			wantWalk(t, v, c, bin)
+		}
+	}
+}
+
+// P13.1: a head that leads to no page is taken on, and no Prev is put.
+func TestPushWhereTheHeadLeadsToNoPage(t *testing.T) {
+	for _, h := range noLinks {
+		vals := laid(six, bin)
+		vals[bin] = h
+		v := view.Whole(vals)
+		link.Push(v, six, bin, 2)
+		wantCells(t, v, []int{3}, 52, int(h), 53, 0, 3, 3)
+		wantWalk(t, v, six, bin, 2)
+	}
+}
+
+// P13.2: where Next or Prev leads to no page, nothing is put there; the head is put just where Prev is 0.
+func TestPullWhereLinksLeadToNoPage(t *testing.T) {
+	for _, far := range noLinks {
+		vals := laid(six, bin, 4, 0, 5)
+		vals[40] = far
+		v := view.Whole(vals)
+		link.Pull(v, six, bin, 0)
+		wantCells(t, v, []int{40, 41}, 64, int(far), 40, 0, 41, 0)
+
+		vals = laid(six, bin, 4, 0, 5)
+		vals[41] = far
+		v = view.Whole(vals)
+		link.Pull(v, six, bin, 0)
+		wantCells(t, v, []int{40, 41}, 71, int(far), 40, 0, 41, 0)
+
+		vals = laid(six, bin, 4, 0, 5)
+		vals[40], vals[41] = far, far-1
+		v = view.Whole(vals)
+		link.Pull(v, six, bin, 0)
+		if far == 7 {
+			wantCells(t, v, []int{40, 41}, 70, int(far), 40, 0, 41, 0)
+		} else {
+			wantCells(t, v, []int{40, 41}, 40, 0, 41, 0)
+		}
+
+		vals = laid(six, bin, 4, 0, 5)
+		vals[64] = far
+		v = view.Whole(vals)
+		link.Pull(v, six, bin, 4)
+		wantCells(t, v, []int{64, 65}, 3, int(far), 64, 0, 65, 0)
+	}
+}
+
+// P13.1, P13.2: a page that leads to itself: each cell is put several times, and stands where it was put first, with what it was put to last.
+func TestPageThatLeadsToItself(t *testing.T) {
+	vals := laid(six, bin, 2)
+	v := view.Whole(vals)
+	link.Push(v, six, bin, 2)
+	wantCells(t, v, []int{3}, 52, 3, 53, 3, 3, 3)
+	wantWalk(t, v, six, bin, 2, 2, 2, 2, 2, 2)
+	link.Pull(v, six, bin, 2)
+	wantCells(t, v, []int{3}, 52, 0, 53, 0, 3, 3)
+
+	vals = laid(six, bin, 2)
+	vals[52], vals[53] = 3, 3
+	v = view.Whole(vals)
+	link.Pull(v, six, bin, 2)
+	wantCells(t, v, []int{52, 53}, 52, 0, 53, 0)
+}
+
+// P13.1, P13.2: a head may be any cell, also one of the page itself, of one beside it, or none: then nothing is got of it, and nothing is put there.
+func TestAnyHead(t *testing.T) {
+	var all []int
+	for head := -3; head < cells(six)+3; head++ {
+		all = append(all, head)
+	}
+	for _, head := range append(all, noCells...) {
+		for p := range six.Pages {
+			for what := range walked {
+				vals := laid(six, bin, 4, 0, 5)
+				for _, val := range []uint32{0, uint32(p + 1), 3, 6, 7, 1 << 31} {
+					if head >= 0 && head < len(vals) {
+						vals[head] = val
+					}
+					same, v := plainOf(six, vals, nil)
+					same.wantDone(t, v, what, head, p)
+				}
+			}
+		}
+	}
+}
+
+// P13.1, P13.2: at a head that is no cell nothing is got, and nothing is put there.
+func TestHeadThatIsNoCell(t *testing.T) {
+	for _, head := range append([]int{cells(six), cells(six) + 1}, noCells...) {
+		v := view.Whole(laid(six, bin, 4, 0, 5))
+		link.Push(v, six, head, 2)
+		wantCells(t, v, nil, 52, 0, 53, 0)
+		v = view.Whole(laid(six, bin, 4, 0, 5))
+		link.Pull(v, six, head, 4)
+		wantCells(t, v, []int{64, 65}, 41, 0, 64, 0, 65, 0)
+		v = view.Whole(laid(six, bin, 4, 0, 5))
+		wantWalk(t, v, six, head)
+		wantCells(t, v, nil)
+	}
+}
+
+// P13.1, P13.2: a View that knows less tells what it misses, as the reads come; from there on nothing is put.
+func TestMissing(t *testing.T) {
+	vals := laid(six, bin, 4, 0, 5)
+	for _, x := range []struct {
+		do    func(v *view.View)
+		reads []int
+	}{
+		{func(v *view.View) { link.Push(v, six, bin, 2) }, []int{3}},
+		{func(v *view.View) { link.Pull(v, six, bin, 0) }, []int{40, 41}},
+		{func(v *view.View) { link.Pull(v, six, bin, 4) }, []int{64, 65}},
+		{func(v *view.View) { link.Walk(v, six, bin) }, []int{3, 64, 40, 70}},
+	} {
+		whole := view.Whole(vals)
+		x.do(whole)
+		var l []api.Pair
+		for _, i := range x.reads {
+			some := view.Known(len(vals), l)
+			x.do(some)
+			if got := some.Missing(); got != i {
+				t.Fatalf("Missing() = %d, not %d", got, i)
+			}
+			if got := some.Reads(); !slices.Equal(got, x.reads[:len(l)]) {
+				t.Fatalf("Reads() = %v, not %v", got, x.reads[:len(l)])
+			}
+			if got := some.Writes(); len(got) != 0 {
+				t.Fatalf("Writes() = %v", got)
+			}
+			l = append(l, api.Pair{Cell: i, Val: vals[i]})
+		}
+		some := view.Known(len(vals), l)
+		x.do(some)
+		if !slices.Equal(some.Reads(), whole.Reads()) || !slices.Equal(some.Writes(), whole.Writes()) || some.Missing() != -1 {
+			t.Fatalf("of what is read alone there is read %v, and put %v", some.Reads(), some.Writes())
+		}
+	}
+}
+
+// P13.3: of a View that knows less the pages up to the missing cell are told.
+func TestWalkUpToTheMissingCell(t *testing.T) {
+	vals := laid(six, bin, 4, 0, 5)
+	pages := []int{4, 0, 5}
+	for n, i := range []int{bin, 64, 40, 70} {
+		_, v := plainOf(six, vals, map[int]bool{i: true})
+		wantWalk(t, v, six, bin, pages[:n]...)
+		if got := v.Missing(); got != i {
+			t.Fatalf("Missing() = %d, not %d", got, i)
+		}
+		wantWalk(t, v, six, bin)
+	}
+}
+
+// P13.1 to P13.3: nil, and a View without cells, have no lists.
+func TestViewsWithoutCells(t *testing.T) {
+	for _, v := range []*view.View{nil, new(view.View), view.Whole(nil), view.Known(0, nil), view.Known(-5, nil)} {
+		for _, c := range slices.Concat(rights, wrongs, pageless) {
+			for _, p := range append([]int{0, 2}, noPages...) {
+				for _, head := range append([]int{0, bin}, noCells...) {
+					link.Push(v, c, head, p)
+					link.Pull(v, c, head, p)
+					wantWalk(t, v, c, head)
+				}
+			}
+		}
+		wantCells(t, v, nil)
+	}
+}
+
+// P13.1 to P13.3: any heads, any pages, any configurations: it ends, and does not panic.
+func TestAnyArguments(t *testing.T) {
+	vals := laid(six, bin, 4, 0, 5)
+	for _, c := range slices.Concat(rights, wrongs, pageless) {
+		for _, p := range append([]int{0, 2}, noPages...) {
+			for _, head := range append([]int{0, bin, 13, 41}, noCells...) {
+				v := view.Whole(vals)
+				link.Push(v, c, head, p)
+				link.Walk(v, c, head)
+				link.Pull(v, c, head, p)
+				link.Walk(v, c, head)
+			}
+		}
+	}
+}
+
+// P13.3: the pages of lists of no, one, some and all pages, in their order; Next of the last one is read, too, and nothing is put.
+func TestWalk(t *testing.T) {
+	order := []int{3, 5, 0, 4, 2, 1}
+	for _, head := range heads() {
+		for n := range len(order) + 1 {
+			v := view.Whole(laid(six, head, order[:n]...))
+			wantWalk(t, v, six, head, order[:n]...)
+			reads := []int{head}
+			for _, p := range order[:n] {
+				reads = append(reads, next(six, p))
+			}
+			wantCells(t, v, reads)
+		}
+	}
+	for _, c := range rights {
+		for p := range c.Pages {
+			v := view.Whole(laid(c, bin, p))
+			wantWalk(t, v, c, bin, p)
+			wantCells(t, v, []int{bin, next(c, p)})
+		}
+	}
+}
+
+// P13.3: a list that runs in a circle ends behind as many pages as there are, also where the circle does not begin at the first one.
+func TestWalkOfACircle(t *testing.T) {
+	for _, c := range rights {
+		for _, pages := range [][]int{{0}, {c.Pages - 1}, {2, 0}, {3, 1, 0}, {0, 1, 2, 3}} {
+			for back := range pages {
+				vals := laid(c, bin, pages...)
+				last := pages[len(pages)-1]
+				vals[next(c, last)] = uint32(pages[back] + 1)
+				var want []int
+				for at := 0; len(want) < c.Pages; at++ {
+					if at == len(pages) {
+						at = back
+					}
+					want = append(want, pages[at])
+				}
+				v := view.Whole(vals)
+				wantWalk(t, v, c, bin, want...)
+				reads := []int{bin}
+				for _, p := range pages {
+					reads = append(reads, next(c, p))
+				}
+				wantCells(t, v, reads)
+			}
+		}
+	}
+}
+
+// P13.3: a circle of all pages is gone through once.
+func TestWalkOfACircleOfAllPages(t *testing.T) {
+	for _, c := range rights {
+		var pages []int
+		for p := range c.Pages {
+			pages = append(pages, c.Pages-1-p)
+		}
+		vals := laid(c, bin, pages...)
+		vals[next(c, 0)] = uint32(c.Pages)
+		wantWalk(t, view.Whole(vals), c, bin, pages...)
+	}
+}
+
+// P13.3: a link that leads to no page ends the list, at the head and behind any page.
+func TestWalkToNoPage(t *testing.T) {
+	pages := []int{4, 0, 5}
+	for _, far := range noLinks {
+		vals := laid(six, bin, pages...)
+		vals[bin] = far
+		v := view.Whole(vals)
+		wantWalk(t, v, six, bin)
+		wantCells(t, v, []int{bin})
+		reads := []int{bin}
+		for i, p := range pages {
+			vals = laid(six, bin, pages...)
+			vals[next(six, p)] = far
+			v = view.Whole(vals)
+			wantWalk(t, v, six, bin, pages[:i+1]...)
+			reads = append(reads, next(six, p))
+			wantCells(t, v, reads)
+		}
+	}
+}
+
+// P13.3: what Prev tells is not asked, and what was put is walked.
+func TestWalkOfWhatWasPut(t *testing.T) {
+	vals := make([]uint32, cells(six))
+	vals[bin] = 2
+	v := view.Whole(vals)
+	v.Put(next(six, 1), 4)
+	v.Put(next(six, 3), 6)
+	v.Put(prev(six, 3), 6)
+	wantWalk(t, v, six, bin, 1, 3, 5)
+	wantCells(t, v, []int{bin, 70}, 46, 4, 58, 6, 59, 6)
+}
+
+// P13.3: what was told is one's own.
+func TestWalksAreApart(t *testing.T) {
+	v := view.Whole(laid(six, bin, 4, 0, 5))
+	link.Walk(v, six, bin)[0] = 9
+	wantWalk(t, v, six, bin, 4, 0, 5)
+}
+
+// P13.1 to P13.3: values by chance, of links that lead to pages, and to none: what is read, put, missing and told is what the chapter's lines say.
+func TestAnyValues(t *testing.T) {
+	for seed := range 4000 {
+		by := chance(seed)
+		c := six
+		switch by.next(8) {
+		case 0:
+			c = wrongs[by.next(len(wrongs))]
+		case 1:
+			c = rights[by.next(4)]
+		}
+		// Fewer cells than a configuration has, and more, may be those of a View.
+		n := cells(six) + by.pick(0, 0, 0, -9, -30, 20)
+		vals := make([]uint32, n)
+		for i := range vals {
+			vals[i] = by.link(six.Pages)
+		}
+		var lacks map[int]bool
+		if by.next(3) == 0 {
+			lacks = map[int]bool{}
+			for range by.next(12) {
+				lacks[by.next(n)] = true
+			}
+		}
+		same, v := plainOf(c, vals, lacks)
+		for range 1 + by.next(8) {
+			head := by.pick(bin, bin, bin, 13, by.next(n), by.next(n), -1, n)
+			p := by.pick(by.next(six.Pages), by.next(six.Pages), by.next(six.Pages), -1, 6, 7)
+			same.wantDone(t, v, kind(by.next(int(kinds))), head, p)
+		}
+	}
+}
+
+// heap is a heap of c: its values, and of each of its lists the pages, in their order. Its lists are laid by Push, each page ahead of all others.
+type heap struct {
+	c     api.Config
+	v     *view.View
+	lists map[int][]int
+}
+
+// span is what begins at a page, and the list in which it belongs; -1, if that is none.
+type span struct {
+	api.Info
+	taken uint32
+	list  int
+}
+
+// spanOf is the n-th span of the heaps of these tests, of at most so many pages: by turns a slab and a free span, so that no two free ones are side by side.
+func spanOf(n, most int) span {
+	k := n / 2 % 9
+	all := uint32(1)<<class.Slots(k) - 1
+	slab := api.Info{Kind: api.InSlab, Len: 1, Class: k}
+	switch {
+	case n%2 == 1:
+		l := min(1+n*7%12, most)
+		return span{api.Info{Kind: api.InFree, Len: l}, 0, 2 + half.Log(l)}
+	case n%5 == 4:
+		return span{slab, all, -1}
+	case n%7 == 6:
+		return span{api.Info{Kind: api.InUsed, Len: 1}, 0, -1}
+	}
+	return span{slab, 1, 13 + k}
+}
+
+// heapOf is the heap of c.
+func heapOf(t *testing.T, c api.Config) heap {
+	t.Helper()
+	h := heap{c, view.Whole(make([]uint32, cells(c))), map[int][]int{}}
+	free, live := 0, 0
+	for p, n := 0, 0; p < c.Pages; n++ {
+		s := spanOf(n, c.Pages-p)
+		val, _ := info.Put(s.Info)
+		h.v.Put(place.Info(c, p), val)
+		h.v.Put(place.Foot(c, p+s.Len-1), uint32(p+1))
+		h.v.Put(place.Taken(c, p), s.taken)
+		switch s.Kind {
+		case api.InFree:
+			free += s.Len
+		case api.InUsed:
+			live++
+		}
+		if s.list >= 0 {
+			h.push(s.list, p)
+		}
+		p += s.Len
+	}
+	h.v.Put(place.Free, uint32(free))
+	h.v.Put(place.Live, uint32(live))
+	if n, ok := audit.Check(c, h.v.Vals()); !ok {
+		t.Fatalf("of %v the rule %d does not hold", c, n)
+	}
+	return h
+}
+
+// push puts a page into a list, ahead of all others.
+func (h heap) push(head, p int) {
+	link.Push(h.v, h.c, head, p)
+	h.lists[head] = slices.Insert(h.lists[head], 0, p)
+}
+
+// pull takes a page out of a list.
+func (h heap) pull(head, p int) {
+	link.Pull(h.v, h.c, head, p)
+	h.lists[head] = slices.DeleteFunc(h.lists[head], func(q int) bool { return q == p })
+}
+
+// outside is the pages that are in no list.
+func (h heap) outside() []int {
+	in := map[int]bool{}
+	for _, pages := range h.lists {
+		for _, p := range pages {
+			in[p] = true
+		}
+	}
+	var l []int
+	for p := range h.c.Pages {
+		if !in[p] {
+			l = append(l, p)
+		}
+	}
+	return l
+}
+
+// wantLists asks whether all lists have their pages, in their order, both ways, the pages of none have no links, and no other cell is another one than it was.
+func (h heap) wantLists(t *testing.T, what string, was []uint32) {
+	t.Helper()
+	want := slices.Clone(was)
+	for p := range h.c.Pages {
+		want[next(h.c, p)], want[prev(h.c, p)] = 0, 0
+	}
+	for _, head := range heads() {
+		lay(h.c, want, head, h.lists[head]...)
+		wantWalk(t, h.v, h.c, head, h.lists[head]...)
+	}
+	if got := h.v.Vals(); !slices.Equal(got, want) {
+		t.Fatalf("%s: the values of %v are %v, not %v", what, h.c, got, want)
+	}
+}
+
+// heaps are configurations of heaps, without and with lists of several pages.
+var heaps = []api.Config{
+	{Threads: 1, Pages: 4, Shift: 10}, {Threads: 2, Pages: 20, Shift: 10}, {Threads: 16, Pages: 130, Shift: 20},
+}
+
+// P13.4: the lists of a heap that Push laid are those of a heap, each page ahead of those that were there.
+func TestListsOfHeaps(t *testing.T) {
+	for _, c := range append(heaps, rights...) {
+		h := heapOf(t, c)
+		h.wantLists(t, "laid", h.v.Vals())
+	}
+}
+
+// P13.4: behind Pull of each page of a heap's lists it is not there, and the others are in their order; behind Push it is ahead of them; no other list turns by it.
+func TestPullAndPushOfEachPageOfAHeap(t *testing.T) {
+	for _, c := range heaps {
+		h := heapOf(t, c)
+		was := h.v.Vals()
+		for _, head := range heads() {
+			for _, p := range slices.Clone(h.lists[head]) {
+				h.pull(head, p)
+				h.wantLists(t, "Pull", was)
+				h.push(head, p)
+				h.wantLists(t, "Push", was)
+				if n, ok := audit.Check(c, h.v.Vals()); !ok {
+					t.Fatalf("of %v the rule %d does not hold", c, n)
+				}
+			}
+		}
+	}
+}
+
+// P13.4: pulling what was pushed gives the list back, of each page that is in none, at each head; so do pulls of several, in any order.
+func TestPullOfWhatWasPushed(t *testing.T) {
+	for _, c := range heaps {
+		h := heapOf(t, c)
+		was := h.v.Vals()
+		out := h.outside()
+		for _, head := range heads() {
+			for _, p := range out {
+				h.push(head, p)
+				h.wantLists(t, "Push", was)
+				h.pull(head, p)
+				if got := h.v.Vals(); !slices.Equal(got, was) {
+					t.Fatalf("the values of %v are %v, not %v", c, got, was)
+				}
+			}
+			for _, p := range out {
+				h.push(head, p)
+			}
+			for i := range out {
+				// By turns the first, the last, and one between.
+				p := out[(i*3+1)%len(out)]
+				if len(out)%3 == 0 {
+					p = out[i]
+				}
+				h.pull(head, p)
+				h.wantLists(t, "Pull", was)
+			}
+			if got := h.v.Vals(); !slices.Equal(got, was) {
+				t.Fatalf("the values of %v are %v, not %v", c, got, was)
+			}
+		}
+	}
+}
+
+// P13.4: long rows of pushes and pulls by chance, with pages that go from list to list.
+func TestLongRows(t *testing.T) {
+	for seed, c := range heaps {
+		by := chance(seed)
+		h := heapOf(t, c)
+		was := h.v.Vals()
+		for turn := range 600 {
+			head := by.pick(heads()...)
+			out := h.outside()
+			if pages := h.lists[head]; len(pages) > 0 && (len(out) == 0 || by.next(2) == 0) {
+				h.pull(head, by.pick(pages...))
+			} else if len(out) > 0 {
+				h.push(head, by.pick(out...))
+			}
+			h.wantLists(t, fmt.Sprintf("turn %d", turn), was)
+		}
+	}
+}
