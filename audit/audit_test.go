@@ -8,80 +8,81 @@ import (
 	"nacre/api"
 	"nacre/audit"
 	"nacre/place"
+	"nacre/trial"
 )
 
 // mixed is the configuration of a heap of all that there may be.
 var mixed = api.Config{Threads: 2, Pages: 40, Shift: 10}
 
 // mixedPieces are the pieces of it: lists of three, of one and of no pages, full slabs and ones that are not.
-var mixedPieces = []piece{
-	used(1),                      // 0
-	slab(0, 11, 1),               // 1
-	free(1),                      // 2
-	used(3),                      // 3
-	slab(8, 3, 2),                // 6, full
-	free(3),                      // 7
-	slab(0, math.MaxUint32, 255), // 10, full
-	slab(1, 1, 1),                // 11
-	slab(0, 1<<31, 0),            // 12
-	used(1),                      // 13
-	free(2),                      // 14
-	slab(3, 1023, 0),             // 16, full
-	free(1),                      // 17
-	slab(0, 1<<31|2, 1<<31|2),    // 18
-	used(2),                      // 19
-	free(1),                      // 21
-	used(1),                      // 22
-	free(3),                      // 23
-	slab(5, 30, 4),               // 26
-	free(13),                     // 27
+var mixedPieces = []trial.Piece{
+	trial.Used(1),                      // 0
+	trial.Slab(0, 11, 1),               // 1
+	trial.Free(1),                      // 2
+	trial.Used(3),                      // 3
+	trial.Slab(8, 3, 2),                // 6, full
+	trial.Free(3),                      // 7
+	trial.Slab(0, math.MaxUint32, 255), // 10, full
+	trial.Slab(1, 1, 1),                // 11
+	trial.Slab(0, 1<<31, 0),            // 12
+	trial.Used(1),                      // 13
+	trial.Free(2),                      // 14
+	trial.Slab(3, 1023, 0),             // 16, full
+	trial.Free(1),                      // 17
+	trial.Slab(0, 1<<31|2, 1<<31|2),    // 18
+	trial.Used(2),                      // 19
+	trial.Free(1),                      // 21
+	trial.Used(1),                      // 22
+	trial.Free(3),                      // 23
+	trial.Slab(5, 30, 4),               // 26
+	trial.Free(13),                     // 27
 }
 
 // layMixed lays the heap of all that there may be; two roots name one block.
-func layMixed() laid {
-	l := lay(mixed, mixedPieces...)
-	l.v[place.Root(0)] = 1024
-	l.v[place.Root(3)] = 11 * 1024
-	l.v[place.Root(4)] = 1024
-	l.v[place.Root(7)] = 19*1024 + 31*32
+func layMixed() trial.Heap {
+	l := trial.Lay(mixed, mixedPieces...)
+	l.Vals[place.Root(0)] = 1024
+	l.Vals[place.Root(3)] = 11 * 1024
+	l.Vals[place.Root(4)] = 1024
+	l.Vals[place.Root(7)] = 19*1024 + 31*32
 	for t := range mixed.Threads {
 		for f := range 4 {
-			l.v[place.Done(mixed, t, f)] = uint32(7*t + f + 1)
+			l.Vals[place.Done(mixed, t, f)] = uint32(7*t + f + 1)
 		}
 	}
 	return l
 }
 
 // wantHeap asks whether the values are a heap, by the program, and by what the document says.
-func wantHeap(t *testing.T, l laid) {
+func wantHeap(t *testing.T, l trial.Heap) {
 	t.Helper()
-	if n, ok := audit.Check(l.c, l.v); n != 0 || !ok {
-		t.Fatalf("Check() = %d, %v of a heap of %v", n, ok, l.c)
+	if n, ok := audit.Check(l.Config, l.Vals); n != 0 || !ok {
+		t.Fatalf("Check() = %d, %v of a heap of %v", n, ok, l.Config)
 	}
 	if rules := broken(l); len(rules) != 0 {
-		t.Fatalf("the test laid a heap of %v of which the rules %v do not hold", l.c, rules)
+		t.Fatalf("the test laid a heap of %v of which the rules %v do not hold", l.Config, rules)
 	}
 }
 
 // wantNone asks whether the first rule that does not hold of the values is n, and nothing else is told of them.
-func wantNone(t *testing.T, what string, l laid, n int) {
+func wantNone(t *testing.T, what string, l trial.Heap, n int) {
 	t.Helper()
-	if got, ok := audit.Check(l.c, l.v); got != n || ok {
+	if got, ok := audit.Check(l.Config, l.Vals); got != n || ok {
 		t.Fatalf("%s: Check() = %d, %v, want %d", what, got, ok, n)
 	}
-	if live := audit.Live(l.c, l.v); len(live) != 0 {
+	if live := audit.Live(l.Config, l.Vals); len(live) != 0 {
 		t.Fatalf("%s: Live() = %v", what, live)
 	}
-	if parts := audit.Parts(l.c, l.v); len(parts) != 0 {
+	if parts := audit.Parts(l.Config, l.Vals); len(parts) != 0 {
 		t.Fatalf("%s: Parts() = %v", what, parts)
 	}
-	if s, ok := audit.State(l.c, l.v); ok || len(s.Live) != 0 || s.Roots != [roots]int64{} {
+	if s, ok := audit.State(l.Config, l.Vals); ok || len(s.Live) != 0 || s.Roots != [roots]int64{} {
 		t.Fatalf("%s: State() = %v, %v", what, s, ok)
 	}
 }
 
 // wantJust asks whether just the rule n does not hold of the values.
-func wantJust(t *testing.T, what string, l laid, n int) {
+func wantJust(t *testing.T, what string, l trial.Heap, n int) {
 	t.Helper()
 	if rules := broken(l); !slices.Equal(rules, []int{n}) {
 		t.Fatalf("%s: the rules %v do not hold, the test means %d alone", what, rules, n)
@@ -92,22 +93,22 @@ func wantJust(t *testing.T, what string, l laid, n int) {
 // spoil is a way in which a heap is spoilt.
 type spoil struct {
 	what string
-	do   func(l laid)
+	do   func(l trial.Heap)
 }
 
 // set is the way in which one cell gets a value.
 func set(what string, cell int, val uint32) spoil {
-	return spoil{what, func(l laid) { l.v[cell] = val }}
+	return spoil{what, func(l trial.Heap) { l.Vals[cell] = val }}
 }
 
 // wantSpoilt asks of each way by itself whether just the rule n does not hold of the heap then.
-func wantSpoilt(t *testing.T, l laid, n int, ways ...spoil) {
+func wantSpoilt(t *testing.T, l trial.Heap, n int, ways ...spoil) {
 	t.Helper()
 	wantHeap(t, l)
 	for _, way := range ways {
-		spoilt := l.copied()
+		spoilt := l.Copied()
 		way.do(spoilt)
-		if slices.Equal(spoilt.v, l.v) {
+		if slices.Equal(spoilt.Vals, l.Vals) {
 			t.Fatalf("%s: the test changed nothing", way.what)
 		}
 		wantJust(t, way.what, spoilt, n)
@@ -121,7 +122,7 @@ func TestExample(t *testing.T) {
 		v := make([]uint32, 30+4*threads+6*4)
 		page := 30 + 4*threads
 		v[0], v[2+2], v[page], v[page+6*3+1] = 4, 1, 0x41, 1
-		wantHeap(t, laid{c, v})
+		wantHeap(t, trial.Heap{Config: c, Vals: v})
 		if parts := audit.Parts(c, v); !slices.Equal(parts, []api.Part{{Kind: api.PtFree, Addr: 1024, Size: 4096}}) {
 			t.Fatalf("Parts() = %v", parts)
 		}
@@ -139,28 +140,28 @@ func configs(pages int) []api.Config {
 }
 
 // wantTold asks whether the pieces, laid, are a heap, and whether what is told of it is what they hold.
-func wantTold(t *testing.T, c api.Config, pieces ...piece) {
+func wantTold(t *testing.T, c api.Config, pieces ...trial.Piece) {
 	t.Helper()
-	l := lay(c, pieces...)
+	l := trial.Lay(c, pieces...)
 	live, parts := liveOf(c, pieces...), partsOf(c, pieces...)
 	want := api.State{Live: live}
 	for i := range min(roots, len(live)) {
 		a := live[i*7%len(live)].Addr
-		l.v[place.Root(i)], want.Roots[i] = uint32(a), a
+		l.Vals[place.Root(i)], want.Roots[i] = uint32(a), a
 	}
-	before := slices.Clone(l.v)
+	before := slices.Clone(l.Vals)
 	wantHeap(t, l)
-	if got := audit.Live(c, l.v); !slices.Equal(got, live) {
+	if got := audit.Live(c, l.Vals); !slices.Equal(got, live) {
 		t.Fatalf("of %v: Live() = %v, want %v", pieces, got, live)
 	}
-	if got := audit.Parts(c, l.v); !slices.Equal(got, parts) {
+	if got := audit.Parts(c, l.Vals); !slices.Equal(got, parts) {
 		t.Fatalf("of %v: Parts() = %v, want %v", pieces, got, parts)
 	}
-	got, ok := audit.State(c, l.v)
+	got, ok := audit.State(c, l.Vals)
 	if !ok || !slices.Equal(got.Live, want.Live) || got.Roots != want.Roots || !audit.Same(got, want) {
 		t.Fatalf("of %v: State() = %v, %v, want %v", pieces, got, ok, want)
 	}
-	if !slices.Equal(before, l.v) {
+	if !slices.Equal(before, l.Vals) {
 		t.Fatalf("the values of %v changed", pieces)
 	}
 }
@@ -169,12 +170,12 @@ func wantTold(t *testing.T, c api.Config, pieces ...piece) {
 func TestAllFreeOrOneBlock(t *testing.T) {
 	for _, pages := range []int{4, 5, 7, 8, 9, 15, 16, 31, 32, 63, 64, 127, 128, 255, 256, 511, 512, 1023, 1024} {
 		for _, c := range configs(pages) {
-			wantTold(t, c, free(pages))
-			wantTold(t, c, used(pages))
-			wantTold(t, c, free(1), used(pages-1))
-			wantTold(t, c, used(1), free(pages-1))
-			wantTold(t, c, used(pages-2), used(2))
-			wantTold(t, c, free(1), used(pages-2), free(1))
+			wantTold(t, c, trial.Free(pages))
+			wantTold(t, c, trial.Used(pages))
+			wantTold(t, c, trial.Free(1), trial.Used(pages-1))
+			wantTold(t, c, trial.Used(1), trial.Free(pages-1))
+			wantTold(t, c, trial.Used(pages-2), trial.Used(2))
+			wantTold(t, c, trial.Free(1), trial.Used(pages-2), trial.Free(1))
 		}
 	}
 }
@@ -186,14 +187,14 @@ func TestSlabs(t *testing.T) {
 			c := api.Config{Threads: 2, Pages: 4, Shift: shift}
 			all := full(k)
 			top := uint32(1) << (slotsOf[k] - 1)
-			wantTold(t, c, slab(k, 1, 0), slab(k, 1, 1), slab(k, top, 0), slab(k, top, top))
-			wantTold(t, c, slab(k, all, 0), slab(k, all, all), slab(k, all, 1), slab(k, all, top))
-			wantTold(t, c, slab(k, all&^1, all&^1), free(1), slab(k, all&^top, 2&^top), used(1))
-			wantTold(t, c, slab(k, all, all&^1), used(2), slab(k, all, all&^top))
+			wantTold(t, c, trial.Slab(k, 1, 0), trial.Slab(k, 1, 1), trial.Slab(k, top, 0), trial.Slab(k, top, top))
+			wantTold(t, c, trial.Slab(k, all, 0), trial.Slab(k, all, all), trial.Slab(k, all, 1), trial.Slab(k, all, top))
+			wantTold(t, c, trial.Slab(k, all&^1, all&^1), trial.Free(1), trial.Slab(k, all&^top, 2&^top), trial.Used(1))
+			wantTold(t, c, trial.Slab(k, all, all&^1), trial.Used(2), trial.Slab(k, all, all&^top))
 		}
 		for _, c := range configs(1024) {
-			wantTold(t, c, slices.Repeat([]piece{slab(k, full(k), full(k))}, 1024)...)
-			wantTold(t, c, slices.Repeat([]piece{slab(k, 1, 0)}, 1024)...)
+			wantTold(t, c, slices.Repeat([]trial.Piece{trial.Slab(k, full(k), full(k))}, 1024)...)
+			wantTold(t, c, slices.Repeat([]trial.Piece{trial.Slab(k, 1, 0)}, 1024)...)
 		}
 	}
 }
@@ -202,11 +203,11 @@ func TestSlabs(t *testing.T) {
 func TestMixedHeaps(t *testing.T) {
 	wantHeap(t, layMixed())
 	wantTold(t, mixed, mixedPieces...)
-	x := chance(1)
+	x := trial.Chance(1)
 	for _, pages := range []int{4, 5, 6, 7, 8, 9, 16, 33, 64, 100, 1024} {
 		for _, c := range configs(pages) {
 			for range 8 {
-				wantTold(t, c, x.pieces(pages)...)
+				wantTold(t, c, x.Pieces(pages)...)
 			}
 		}
 	}
@@ -214,20 +215,20 @@ func TestMixedHeaps(t *testing.T) {
 
 // P12.1: which way round a list is, and what the cells of the threads are, does not matter.
 func TestWhatDoesNotMatter(t *testing.T) {
-	x := chance(2)
+	x := trial.Chance(2)
 	l := layMixed()
 	for range 50 {
 		for head := 2; head < 22; head++ {
-			pages := l.pages(head)
+			pages := l.List(head)
 			for i := range pages {
-				k := x.next(i + 1)
+				k := x.Next(i + 1)
 				pages[i], pages[k] = pages[k], pages[i]
 			}
-			l.relink(head, pages)
+			l.Relink(head, pages...)
 		}
 		for thread := range mixed.Threads {
 			for f := range 4 {
-				l.v[place.Done(mixed, thread, f)] = x.bits()
+				l.Vals[place.Done(mixed, thread, f)] = x.Bits()
 			}
 		}
 		wantHeap(t, l)
@@ -236,13 +237,13 @@ func TestWhatDoesNotMatter(t *testing.T) {
 
 // P12.4: Parts are, one behind the other, just all bytes of all pages, and those that are live are the live blocks.
 func TestPartsAreAllBytes(t *testing.T) {
-	x := chance(3)
+	x := trial.Chance(3)
 	for _, pages := range []int{4, 9, 40, 1024} {
 		for _, c := range configs(pages) {
-			l := lay(c, x.pieces(pages)...)
+			l := trial.Lay(c, x.Pieces(pages)...)
 			end := int64(1) << c.Shift
 			var live []api.Block
-			for _, part := range audit.Parts(c, l.v) {
+			for _, part := range audit.Parts(c, l.Vals) {
 				if part.Addr != end || part.Size <= 0 || part.Kind < api.PtFree || part.Kind > api.PtSlack {
 					t.Fatalf("the part %v of a heap of %v is to begin at %d", part, c, end)
 				}
@@ -254,7 +255,7 @@ func TestPartsAreAllBytes(t *testing.T) {
 			if end != int64(pages+1)<<c.Shift {
 				t.Fatalf("the parts of a heap of %v end at %d", c, end)
 			}
-			if got := audit.Live(c, l.v); !slices.Equal(got, live) {
+			if got := audit.Live(c, l.Vals); !slices.Equal(got, live) {
 				t.Fatalf("Live() = %v, the parts are %v", got, live)
 			}
 		}
@@ -263,7 +264,7 @@ func TestPartsAreAllBytes(t *testing.T) {
 
 // P12.1: the rule 1: a configuration that is not right has no heap, also if no value is given, or those of a right one.
 func TestRule1NotRight(t *testing.T) {
-	vals := layMixed().v
+	vals := layMixed().Vals
 	for _, c := range []api.Config{
 		{}, {Threads: 0, Pages: 40, Shift: 10}, {Threads: 17, Pages: 40, Shift: 10}, {Threads: -1, Pages: 40, Shift: 10},
 		{Threads: 2, Pages: 3, Shift: 10}, {Threads: 2, Pages: 1025, Shift: 10}, {Threads: 2, Pages: -40, Shift: 10}, {Threads: 2, Pages: 0, Shift: 10},
@@ -271,9 +272,9 @@ func TestRule1NotRight(t *testing.T) {
 		{Threads: math.MaxInt, Pages: math.MaxInt, Shift: math.MaxInt}, {Threads: math.MinInt, Pages: math.MinInt, Shift: math.MinInt},
 		{Threads: 2 + 1<<32, Pages: 40, Shift: 10}, {Threads: 2, Pages: 40 + 1<<32, Shift: 10}, {Threads: 2, Pages: 40, Shift: 10 + 1<<32},
 	} {
-		wantNone(t, "a configuration that is not right", laid{c, vals}, 1)
-		wantNone(t, "the same without values", laid{c, nil}, 1)
-		wantNone(t, "the same without pages", laid{c, make([]uint32, 30+8)}, 1)
+		wantNone(t, "a configuration that is not right", trial.Heap{Config: c, Vals: vals}, 1)
+		wantNone(t, "the same without values", trial.Heap{Config: c, Vals: nil}, 1)
+		wantNone(t, "the same without pages", trial.Heap{Config: c, Vals: make([]uint32, 30+8)}, 1)
 	}
 }
 
@@ -281,27 +282,27 @@ func TestRule1NotRight(t *testing.T) {
 func TestRule1HowManyValues(t *testing.T) {
 	l := layMixed()
 	wantHeap(t, l)
-	for n := range l.v {
-		wantNone(t, "too few values", laid{l.c, l.v[:n]}, 1)
-		wantNone(t, "too few values without room behind them", laid{l.c, slices.Clone(l.v[:n])}, 1)
+	for n := range l.Vals {
+		wantNone(t, "too few values", trial.Heap{Config: l.Config, Vals: l.Vals[:n]}, 1)
+		wantNone(t, "too few values without room behind them", trial.Heap{Config: l.Config, Vals: slices.Clone(l.Vals[:n])}, 1)
 	}
-	wantNone(t, "no values", laid{l.c, nil}, 1)
+	wantNone(t, "no values", trial.Heap{Config: l.Config, Vals: nil}, 1)
 	for _, more := range []int{1, 4, 5, 6, 1000} {
-		wantNone(t, "too many values", laid{l.c, append(slices.Clone(l.v), make([]uint32, more)...)}, 1)
+		wantNone(t, "too many values", trial.Heap{Config: l.Config, Vals: append(slices.Clone(l.Vals), make([]uint32, more)...)}, 1)
 	}
 	for _, c := range []api.Config{{Threads: 1, Pages: 40, Shift: 10}, {Threads: 2, Pages: 39, Shift: 10}, {Threads: 2, Pages: 41, Shift: 10}} {
-		wantNone(t, "another one's values", laid{c, l.v}, 1)
+		wantNone(t, "another one's values", trial.Heap{Config: c, Vals: l.Vals}, 1)
 	}
 }
 
 // P12.1: the rule 2: where a span is to begin there is no info, one of no pages, one that goes beyond the end, or InNone; the pages from there on are without all else.
 func TestRule2NoSpan(t *testing.T) {
 	c := api.Config{Threads: 2, Pages: 8, Shift: 10}
-	for _, ahead := range [][]piece{nil, {free(3)}, {used(2), slab(4, 1, 1)}, {slab(0, 1, 0), used(6)}, {used(4), free(1), used(1)}} {
-		l := lay(c, ahead...)
+	for _, ahead := range [][]trial.Piece{nil, {trial.Free(3)}, {trial.Used(2), trial.Slab(4, 1, 1)}, {trial.Slab(0, 1, 0), trial.Used(6)}, {trial.Used(4), trial.Free(1), trial.Used(1)}} {
+		l := trial.Lay(c, ahead...)
 		p := 0
 		for _, x := range ahead {
-			p += x.n
+			p += x.Len
 		}
 		left := uint32(8 - p)
 		for what, val := range map[string]uint32{
@@ -312,8 +313,8 @@ func TestRule2NoSpan(t *testing.T) {
 			"a free span beyond the end": (left+1)<<4 | 1, "a used span beyond the end": (left+1)<<4 | 2,
 			"a used span of too many pages": 1025<<4 | 2, "a free span far beyond the end": 1024<<4 | 1, "the greatest Len": 4095<<4 | 2,
 		} {
-			spoilt := l.copied()
-			spoilt.v[place.Info(c, p)] = val
+			spoilt := l.Copied()
+			spoilt.Vals[place.Info(c, p)] = val
 			wantJust(t, what, spoilt, 2)
 		}
 	}
@@ -335,10 +336,10 @@ func TestRule3(t *testing.T) {
 	var ways []spoil
 	at := 0
 	for _, x := range mixedPieces {
-		for p := at; p < at+x.n; p++ {
-			for _, val := range []uint32{0, 1, uint32(at), uint32(at) + 1, uint32(at) + 2, uint32(at + x.n), 41, math.MaxUint32, uint32(at) + 1 + 1<<16} {
+		for p := at; p < at+x.Len; p++ {
+			for _, val := range []uint32{0, 1, uint32(at), uint32(at) + 1, uint32(at) + 2, uint32(at + x.Len), 41, math.MaxUint32, uint32(at) + 1 + 1<<16} {
 				is := uint32(0)
-				if p == at+x.n-1 {
+				if p == at+x.Len-1 {
 					is = uint32(at) + 1
 				}
 				if val != is {
@@ -346,7 +347,7 @@ func TestRule3(t *testing.T) {
 				}
 			}
 		}
-		at += x.n
+		at += x.Len
 	}
 	wantSpoilt(t, layMixed(), 3, ways...)
 }
@@ -354,15 +355,15 @@ func TestRule3(t *testing.T) {
 // P12.1: the rule 4: two free spans are side by side, in one bin or in two, at both ends and within.
 func TestRule4(t *testing.T) {
 	c := api.Config{Threads: 1, Pages: 8, Shift: 12}
-	for _, pieces := range [][]piece{
-		{free(1), free(7)}, {free(4), free(4)}, {free(7), free(1)}, {free(1), free(1), used(6)}, {used(6), free(1), free(1)},
-		{used(3), free(2), free(3)}, {slab(0, 1, 1), free(1), free(2), slab(0, 1, 1), used(3)}, {free(2), free(2), free(2), free(2)},
-		{free(1), used(1), free(1), used(1), free(1), used(1), free(1), free(1)},
+	for _, pieces := range [][]trial.Piece{
+		{trial.Free(1), trial.Free(7)}, {trial.Free(4), trial.Free(4)}, {trial.Free(7), trial.Free(1)}, {trial.Free(1), trial.Free(1), trial.Used(6)}, {trial.Used(6), trial.Free(1), trial.Free(1)},
+		{trial.Used(3), trial.Free(2), trial.Free(3)}, {trial.Slab(0, 1, 1), trial.Free(1), trial.Free(2), trial.Slab(0, 1, 1), trial.Used(3)}, {trial.Free(2), trial.Free(2), trial.Free(2), trial.Free(2)},
+		{trial.Free(1), trial.Used(1), trial.Free(1), trial.Used(1), trial.Free(1), trial.Used(1), trial.Free(1), trial.Free(1)},
 	} {
-		wantJust(t, "free spans side by side", lay(c, pieces...), 4)
+		wantJust(t, "free spans side by side", trial.Lay(c, pieces...), 4)
 	}
-	wantHeap(t, lay(c, free(1), used(1), free(1), slab(8, 3, 3), free(1), used(2), free(1)))
-	wantHeap(t, lay(c, used(1), used(1), slab(0, 1, 1), slab(0, 1, 1), used(1), slab(8, 1, 1), used(2)))
+	wantHeap(t, trial.Lay(c, trial.Free(1), trial.Used(1), trial.Free(1), trial.Slab(8, 3, 3), trial.Free(1), trial.Used(2), trial.Free(1)))
+	wantHeap(t, trial.Lay(c, trial.Used(1), trial.Used(1), trial.Slab(0, 1, 1), trial.Slab(0, 1, 1), trial.Used(1), trial.Slab(8, 1, 1), trial.Used(2)))
 }
 
 // P12.1: the rule 5: of a slab no slot is taken, one that there is not, or one is live that is not taken.
@@ -370,22 +371,22 @@ func TestRule5Slabs(t *testing.T) {
 	for k := range classes {
 		c := api.Config{Threads: 1, Pages: 4, Shift: 10}
 		all := full(k)
-		wantJust(t, "nothing taken", lay(c, slab(k, 0, 0), used(3)), 5)
-		wantJust(t, "nothing taken, of the last page", lay(c, used(1), free(2), slab(k, 0, 0)), 5)
-		wantJust(t, "nothing taken, but one live", lay(c, slab(k, 0, 1), used(3)), 5)
+		wantJust(t, "nothing taken", trial.Lay(c, trial.Slab(k, 0, 0), trial.Used(3)), 5)
+		wantJust(t, "nothing taken, of the last page", trial.Lay(c, trial.Used(1), trial.Free(2), trial.Slab(k, 0, 0)), 5)
+		wantJust(t, "nothing taken, but one live", trial.Lay(c, trial.Slab(k, 0, 1), trial.Used(3)), 5)
 		for s := slotsOf[k]; s < 32; s++ {
 			bit := uint32(1) << s
-			wantJust(t, "a bit beyond the slots", lay(c, slab(k, 1|bit, 1), used(3)), 5)
-			wantJust(t, "a bit beyond the slots of a full one", lay(c, used(1), slab(k, all|bit, 0), used(2)), 5)
-			wantJust(t, "a bit beyond the slots, alone", lay(c, used(1), slab(k, bit, 0), used(2)), 5)
-			wantJust(t, "a bit beyond the slots, in both", lay(c, used(1), slab(k, all|bit, all|bit), used(2)), 5)
-			wantJust(t, "a bit beyond the slots, live alone", lay(c, used(1), slab(k, all, bit), used(2)), 5)
+			wantJust(t, "a bit beyond the slots", trial.Lay(c, trial.Slab(k, 1|bit, 1), trial.Used(3)), 5)
+			wantJust(t, "a bit beyond the slots of a full one", trial.Lay(c, trial.Used(1), trial.Slab(k, all|bit, 0), trial.Used(2)), 5)
+			wantJust(t, "a bit beyond the slots, alone", trial.Lay(c, trial.Used(1), trial.Slab(k, bit, 0), trial.Used(2)), 5)
+			wantJust(t, "a bit beyond the slots, in both", trial.Lay(c, trial.Used(1), trial.Slab(k, all|bit, all|bit), trial.Used(2)), 5)
+			wantJust(t, "a bit beyond the slots, live alone", trial.Lay(c, trial.Used(1), trial.Slab(k, all, bit), trial.Used(2)), 5)
 		}
 		for s := range slotsOf[k] {
 			bit := uint32(1) << s
-			wantJust(t, "a live slot that is not taken", lay(c, used(3), slab(k, all&^bit, bit)), 5)
-			wantJust(t, "the same beside others that are", lay(c, used(3), slab(k, all&^bit, all)), 5)
-			wantHeap(t, lay(c, used(3), slab(k, bit, bit)))
+			wantJust(t, "a live slot that is not taken", trial.Lay(c, trial.Used(3), trial.Slab(k, all&^bit, bit)), 5)
+			wantJust(t, "the same beside others that are", trial.Lay(c, trial.Used(3), trial.Slab(k, all&^bit, all)), 5)
+			wantHeap(t, trial.Lay(c, trial.Used(3), trial.Slab(k, bit, bit)))
 		}
 	}
 }
@@ -397,37 +398,37 @@ func TestRule5Others(t *testing.T) {
 		for _, bits := range []uint32{1, 2, 1 << 31, math.MaxUint32} {
 			wantSpoilt(t, l, 5,
 				set("taken where there is no slab", place.Taken(mixed, p), bits),
-				spoil{"live where there is no slab", func(l laid) { l.live(p, bits) }},
-				spoil{"both where there is no slab", func(l laid) { l.live(p, bits); l.v[place.Taken(mixed, p)] = bits }},
+				spoil{"live where there is no slab", func(l trial.Heap) { l.SetLive(p, bits) }},
+				spoil{"both where there is no slab", func(l trial.Heap) { l.SetLive(p, bits); l.Vals[place.Taken(mixed, p)] = bits }},
 			)
 		}
 	}
 }
 
 // wantLists asks for the ways in which a list may be wrong: one has the pages of three, in their order, and one is a single page, in a list of its own; the list none has no page. Others are pages that are in no list.
-func wantLists(t *testing.T, l laid, n int, three, one, none int, others []int) {
+func wantLists(t *testing.T, l trial.Heap, n int, three, one, none int, others []int) {
 	t.Helper()
-	pages, single := l.pages(three), l.pages(one)[0]
-	if len(pages) != 3 || len(l.pages(one)) != 1 || len(l.pages(none)) != 0 {
-		t.Fatalf("the lists have %v, %v and %v", pages, l.pages(one), l.pages(none))
+	pages, single := l.List(three), l.List(one)[0]
+	if len(pages) != 3 || len(l.List(one)) != 1 || len(l.List(none)) != 0 {
+		t.Fatalf("the lists have %v, %v and %v", pages, l.List(one), l.List(none))
 	}
 	first, middle, last := pages[0], pages[1], pages[2]
-	next := func(p int) int { return place.Next(l.c, p) }
-	prev := func(p int) int { return place.Prev(l.c, p) }
+	next := func(p int) int { return place.Next(l.Config, p) }
+	prev := func(p int) int { return place.Prev(l.Config, p) }
 	link := func(p int) uint32 { return uint32(p) + 1 }
 	ways := []spoil{
 		set("another list's page", none, link(single)),
-		{"another list's page ahead of all", func(l laid) { l.pull(one, single); l.push(three, single) }},
-		{"another list's page behind all", func(l laid) { l.pull(one, single); l.put(three, single) }},
-		{"two lists changed", func(l laid) { l.relink(one, pages); l.relink(three, []int{single}) }},
-		{"the page in a list that is to have none", func(l laid) { l.pull(one, single); l.push(none, single) }},
+		{"another list's page ahead of all", func(l trial.Heap) { l.Pull(one, single); l.Push(three, single) }},
+		{"another list's page behind all", func(l trial.Heap) { l.Pull(one, single); l.Append(three, single) }},
+		{"two lists changed", func(l trial.Heap) { l.Relink(one, pages...); l.Relink(three, single) }},
+		{"the page in a list that is to have none", func(l trial.Heap) { l.Pull(one, single); l.Push(none, single) }},
 		set("a circle of one", next(single), link(single)),
-		{"a circle of one, with its Prev", func(l laid) { l.v[next(single)], l.v[prev(single)] = link(single), link(single) }},
+		{"a circle of one, with its Prev", func(l trial.Heap) { l.Vals[next(single)], l.Vals[prev(single)] = link(single), link(single) }},
 		set("the last one leads to itself", next(last), link(last)),
 		set("a circle to the first one", next(last), link(first)),
-		{"a circle to the first one, with its Prev", func(l laid) { l.v[next(last)], l.v[prev(first)] = link(first), link(last) }},
+		{"a circle to the first one, with its Prev", func(l trial.Heap) { l.Vals[next(last)], l.Vals[prev(first)] = link(first), link(last) }},
 		set("a circle to the second one", next(last), link(middle)),
-		{"a circle to the second one, with its Prev", func(l laid) { l.v[next(last)], l.v[prev(middle)] = link(middle), link(last) }},
+		{"a circle to the second one, with its Prev", func(l trial.Heap) { l.Vals[next(last)], l.Vals[prev(middle)] = link(middle), link(last) }},
 		set("the first one's Prev is a page", prev(first), link(last)),
 		set("the first one's Prev is itself", prev(first), link(first)),
 		set("the first one's Prev is none", prev(first), math.MaxUint32),
@@ -435,29 +436,29 @@ func wantLists(t *testing.T, l laid, n int, three, one, none int, others []int) 
 		set("the second one's Prev is behind it", prev(middle), link(last)),
 		set("the second one's Prev is itself", prev(middle), link(middle)),
 		set("the last one's Prev is the first one", prev(last), link(first)),
-		set("the last one's Prev is no page", prev(last), uint32(l.c.Pages)+1),
+		set("the last one's Prev is no page", prev(last), uint32(l.Pages)+1),
 		set("the last one's Prev is a list's cell", prev(last), uint32(three)),
 		set("the single one is in no list", one, 0),
 	}
 	for _, p := range pages {
-		ways = append(ways, spoil{"one is in no list", func(l laid) { l.pull(three, p) }})
+		ways = append(ways, spoil{"one is in no list", func(l trial.Heap) { l.Pull(three, p) }})
 	}
 	for _, to := range append(others, single) {
 		ways = append(ways, set("the list of no page leads elsewhere", none, link(to)),
 			set("the single one leads elsewhere", one, link(to)),
-			spoil{"a page more ahead", func(l laid) { l.push(three, to) }},
-			spoil{"a page more behind", func(l laid) { l.put(three, to) }})
+			spoil{"a page more ahead", func(l trial.Heap) { l.Push(three, to) }},
+			spoil{"a page more behind", func(l trial.Heap) { l.Append(three, to) }})
 	}
-	pagesEnd := uint32(l.c.Pages) + 1
+	pagesEnd := uint32(l.Pages) + 1
 	for _, to := range []uint32{pagesEnd, pagesEnd + 1, 1024, 1025, 1 << 16, 1<<16 + 1, 1 << 31, 1<<31 + 1, math.MaxUint32} {
 		ways = append(ways, set("the list of no page leads to no page", none, to), set("the single one leads to no page", one, to),
 			set("the last one leads to no page", next(last), to), set("behind the single one is no page", next(single), to))
 	}
 	for _, way := range ways {
-		spoilt := l.copied()
+		spoilt := l.Copied()
 		way.do(spoilt)
 		// Some values that a cell gets it may have already.
-		if !slices.Equal(spoilt.v, l.v) {
+		if !slices.Equal(spoilt.Vals, l.Vals) {
 			wantJust(t, way.what, spoilt, n)
 		}
 	}
@@ -470,12 +471,12 @@ func TestRule6(t *testing.T) {
 	// A page of a used span, its first one or not, of a free one behind its first, and a full slab.
 	others := []int{0, 3, 5, 8, 39, 6, 10}
 	for none := range bins {
-		if len(l.pages(place.Bin(none))) == 0 {
+		if len(l.List(place.Bin(none))) == 0 {
 			wantLists(t, l, 6, place.Bin(0), place.Bin(3), place.Bin(none), others)
 			wantLists(t, l, 6, place.Bin(1), place.Bin(3), place.Bin(none), others)
 		}
 	}
-	single := l.pages(place.Rack(1))[0]
+	single := l.List(place.Rack(1))[0]
 	wantSpoilt(t, l, 6, set("a bin of a slab that is in its rack", place.Bin(7), uint32(single)+1))
 }
 
@@ -487,12 +488,12 @@ func TestRule6WrongBin(t *testing.T) {
 				continue
 			}
 			c := api.Config{Threads: 1, Pages: max(n, 4), Shift: 10}
-			l := lay(c, slices.Concat([]piece{free(n)}, slices.Repeat([]piece{used(1)}, c.Pages-n))...)
+			l := trial.Lay(c, slices.Concat([]trial.Piece{trial.Free(n)}, slices.Repeat([]trial.Piece{trial.Used(1)}, c.Pages-n))...)
 			wantHeap(t, l)
-			right := free(n).list()
+			right := trial.Free(n).List()
 			for bin := range bins {
 				if place.Bin(bin) != right {
-					wantSpoilt(t, l, 6, spoil{"another bin", func(l laid) { l.pull(right, 0); l.push(place.Bin(bin), 0) }})
+					wantSpoilt(t, l, 6, spoil{"another bin", func(l trial.Heap) { l.Pull(right, 0); l.Push(place.Bin(bin), 0) }})
 				}
 			}
 		}
@@ -506,16 +507,16 @@ func TestRule7(t *testing.T) {
 	// A page of a used span, its first one or not, of a free one behind its first, and full slabs, of the class of the rack and of another one.
 	others := []int{0, 3, 5, 8, 39, 10, 6, 16}
 	for none := range classes {
-		if len(l.pages(place.Rack(none))) == 0 {
+		if len(l.List(place.Rack(none))) == 0 {
 			wantLists(t, l, 7, place.Rack(0), place.Rack(1), place.Rack(none), others)
 			wantLists(t, l, 7, place.Rack(0), place.Rack(5), place.Rack(none), others)
 		}
 	}
-	single := l.pages(place.Bin(3))[0]
+	single := l.List(place.Bin(3))[0]
 	wantSpoilt(t, l, 7,
 		set("a rack of a free span that is in its bin", place.Rack(7), uint32(single)+1),
-		spoil{"a full slab", func(l laid) { l.push(place.Rack(0), 10) }},
-		spoil{"a full slab in a rack that had none", func(l laid) { l.push(place.Rack(8), 6) }},
+		spoil{"a full slab", func(l trial.Heap) { l.Push(place.Rack(0), 10) }},
+		spoil{"a full slab in a rack that had none", func(l trial.Heap) { l.Push(place.Rack(8), 6) }},
 	)
 }
 
@@ -523,18 +524,18 @@ func TestRule7(t *testing.T) {
 func TestRule7OfEachClass(t *testing.T) {
 	c := api.Config{Threads: 1, Pages: 4, Shift: 10}
 	for k := range classes {
-		l := lay(c, used(1), slab(k, full(k), 1), used(2))
+		l := trial.Lay(c, trial.Used(1), trial.Slab(k, full(k), 1), trial.Used(2))
 		wantHeap(t, l)
 		for rack := range classes {
-			wantSpoilt(t, l, 7, spoil{"a full slab", func(l laid) { l.push(place.Rack(rack), 1) }})
+			wantSpoilt(t, l, 7, spoil{"a full slab", func(l trial.Heap) { l.Push(place.Rack(rack), 1) }})
 		}
 		for s := range slotsOf[k] {
-			l := lay(c, used(1), slab(k, full(k)&^(1<<s), 0), used(2))
+			l := trial.Lay(c, trial.Used(1), trial.Slab(k, full(k)&^(1<<s), 0), trial.Used(2))
 			wantHeap(t, l)
-			wantSpoilt(t, l, 7, spoil{"one that is not full, in none", func(l laid) { l.pull(place.Rack(k), 1) }})
+			wantSpoilt(t, l, 7, spoil{"one that is not full, in none", func(l trial.Heap) { l.Pull(place.Rack(k), 1) }})
 			for rack := range classes {
 				if rack != k {
-					wantSpoilt(t, l, 7, spoil{"another class's", func(l laid) { l.pull(place.Rack(k), 1); l.push(place.Rack(rack), 1) }})
+					wantSpoilt(t, l, 7, spoil{"another class's", func(l trial.Heap) { l.Pull(place.Rack(k), 1); l.Push(place.Rack(rack), 1) }})
 				}
 			}
 		}
@@ -548,7 +549,7 @@ func TestRule8(t *testing.T) {
 	for _, p := range []int{0, 3, 4, 5, 6, 8, 9, 10, 13, 15, 16, 19, 20, 22, 24, 28, 39} {
 		for _, val := range []uint32{1, 3, uint32(p) + 1, 40, 41, 1 << 31, math.MaxUint32} {
 			ways = append(ways, set("a Next", place.Next(mixed, p), val), set("a Prev", place.Prev(mixed, p), val),
-				spoil{"both", func(l laid) { l.v[place.Next(mixed, p)], l.v[place.Prev(mixed, p)] = val, val }})
+				spoil{"both", func(l trial.Heap) { l.Vals[place.Next(mixed, p)], l.Vals[place.Prev(mixed, p)] = val, val }})
 		}
 	}
 	wantSpoilt(t, l, 8, ways...)
@@ -556,17 +557,17 @@ func TestRule8(t *testing.T) {
 
 // P12.1: the rule 9: Free and Live are one too many, one too few, none, or another number with the same low bits.
 func TestRule9(t *testing.T) {
-	for _, l := range []laid{layMixed(), lay(mixed, free(40)), lay(mixed, used(40)), lay(mixed, slices.Repeat([]piece{slab(0, math.MaxUint32, math.MaxUint32)}, 40)...)} {
+	for _, l := range []trial.Heap{layMixed(), trial.Lay(mixed, trial.Free(40)), trial.Lay(mixed, trial.Used(40)), trial.Lay(mixed, slices.Repeat([]trial.Piece{trial.Slab(0, math.MaxUint32, math.MaxUint32)}, 40)...)} {
 		var ways []spoil
 		for _, cell := range []int{place.Free, place.Live} {
-			is := l.v[cell]
+			is := l.Vals[cell]
 			for _, val := range []uint32{is + 1, is - 1, 0, 40, 41, is + 1<<8, is + 1<<16, is + 1<<31, math.MaxUint32} {
 				if val != is {
 					ways = append(ways, set("a count", cell, val))
 				}
 			}
 		}
-		ways = append(ways, spoil{"one for another", func(l laid) { l.v[place.Free]--; l.v[place.Live]++ }})
+		ways = append(ways, spoil{"one for another", func(l trial.Heap) { l.Vals[place.Free]--; l.Vals[place.Live]++ }})
 		wantSpoilt(t, l, 9, ways...)
 	}
 }
@@ -574,20 +575,20 @@ func TestRule9(t *testing.T) {
 // P12.1: the rule 10: each root may name each byte where a live block begins, and none else: not the inside of one, a page of it behind the first, a free span, a slot that is free, or taken and not live, what is left behind the slots, or no page at all.
 func TestRule10EachByte(t *testing.T) {
 	c := api.Config{Threads: 1, Pages: 9, Shift: 10}
-	pieces := []piece{used(1), slab(0, 1<<31|13, 1<<31|5), slab(1, full(1), 1<<20|2), free(1), used(2), slab(5, 18, 2), slab(8, 3, 2), used(1)}
-	l := lay(c, pieces...)
+	pieces := []trial.Piece{trial.Used(1), trial.Slab(0, 1<<31|13, 1<<31|5), trial.Slab(1, full(1), 1<<20|2), trial.Free(1), trial.Used(2), trial.Slab(5, 18, 2), trial.Slab(8, 3, 2), trial.Used(1)}
+	l := trial.Lay(c, pieces...)
 	live := map[uint32]bool{0: true}
 	for _, b := range liveOf(c, pieces...) {
 		live[uint32(b.Addr)] = true
 	}
 	for a := range uint32(12 * 1024) {
 		i := int(a) % roots
-		l.v[place.Root(i)] = a
-		n, ok := audit.Check(c, l.v)
+		l.Vals[place.Root(i)] = a
+		n, ok := audit.Check(c, l.Vals)
 		if want := live[a]; ok != want || !want && n != 10 || want && n != 0 {
 			t.Fatalf("the root %d names %d: Check() = %d, %v", i, a, n, ok)
 		}
-		l.v[place.Root(i)] = 0
+		l.Vals[place.Root(i)] = 0
 	}
 }
 
@@ -609,31 +610,31 @@ func TestRule10EachRoot(t *testing.T) {
 	l := layMixed()
 	for i := range roots {
 		for _, a := range []uint32{0, 1024, 4 * 1024, 2 * 1024, 7*1024 + 512, 19*1024 + 32, 23 * 1024} {
-			l.v[place.Root(i)] = a
+			l.Vals[place.Root(i)] = a
 			wantHeap(t, l)
 		}
 	}
 }
 
 // breaks are, of each rule from 1 on, a way to break just it in the heap of all that there may be, that leaves each other one of them to be done.
-func breaks() []func(l *laid) {
-	return []func(l *laid){
-		func(l *laid) { l.v = append(l.v, 0) },
-		func(l *laid) { l.v[place.Info(mixed, 4)] = 0x12 },
-		func(l *laid) { l.v[place.Foot(mixed, 19)] = 20 },
-		func(l *laid) {
+func breaks() []func(l *trial.Heap) {
+	return []func(l *trial.Heap){
+		func(l *trial.Heap) { l.Vals = append(l.Vals, 0) },
+		func(l *trial.Heap) { l.Vals[place.Info(mixed, 4)] = 0x12 },
+		func(l *trial.Heap) { l.Vals[place.Foot(mixed, 19)] = 20 },
+		func(l *trial.Heap) {
 			// The used page between two free spans is a free one, too.
-			l.v[place.Info(mixed, 22)] = 0x11
-			l.push(place.Bin(0), 22)
-			l.v[place.Free]++
-			l.v[place.Live]--
+			l.Vals[place.Info(mixed, 22)] = 0x11
+			l.Push(place.Bin(0), 22)
+			l.Vals[place.Free]++
+			l.Vals[place.Live]--
 		},
-		func(l *laid) { l.v[place.Taken(mixed, 13)] = 1 },
-		func(l *laid) { l.v[place.Bin(9)] = 1 },
-		func(l *laid) { l.v[place.Rack(4)] = 7 },
-		func(l *laid) { l.v[place.Prev(mixed, 39)] = 40 },
-		func(l *laid) { l.v[place.Live] += 5 },
-		func(l *laid) { l.v[place.Root(5)] = 7 },
+		func(l *trial.Heap) { l.Vals[place.Taken(mixed, 13)] = 1 },
+		func(l *trial.Heap) { l.Vals[place.Bin(9)] = 1 },
+		func(l *trial.Heap) { l.Vals[place.Rack(4)] = 7 },
+		func(l *trial.Heap) { l.Vals[place.Prev(mixed, 39)] = 40 },
+		func(l *trial.Heap) { l.Vals[place.Live] += 5 },
+		func(l *trial.Heap) { l.Vals[place.Root(5)] = 7 },
 	}
 }
 
@@ -662,16 +663,16 @@ func TestFirstRuleIsTold(t *testing.T) {
 }
 
 // wantAsBroken asks whether the first rule that does not hold is told.
-func wantAsBroken(t *testing.T, l laid) {
+func wantAsBroken(t *testing.T, l trial.Heap) {
 	t.Helper()
 	rules := broken(l)
-	before := slices.Clone(l.v)
+	before := slices.Clone(l.Vals)
 	if len(rules) == 0 {
 		wantHeap(t, l)
 	} else {
 		wantNone(t, "values by chance", l, rules[0])
 	}
-	if !slices.Equal(before, l.v) {
+	if !slices.Equal(before, l.Vals) {
 		t.Fatal("the values changed")
 	}
 }
@@ -679,21 +680,21 @@ func wantAsBroken(t *testing.T, l laid) {
 // P12.1: each cell of some heaps, with each of many values, and with each value of the other cells.
 func TestEachCell(t *testing.T) {
 	c := api.Config{Threads: 1, Pages: 7, Shift: 10}
-	for _, l := range []laid{
-		lay(c, free(7)), lay(c, free(1), used(1), free(1), used(1), free(1), used(1), free(1)),
-		lay(c, used(2), free(2), slab(8, 3, 1), slab(8, 1, 1), slab(8, 2, 0)), lay(c, slab(7, 7, 7), free(3), used(1), free(2)),
+	for _, l := range []trial.Heap{
+		trial.Lay(c, trial.Free(7)), trial.Lay(c, trial.Free(1), trial.Used(1), trial.Free(1), trial.Used(1), trial.Free(1), trial.Used(1), trial.Free(1)),
+		trial.Lay(c, trial.Used(2), trial.Free(2), trial.Slab(8, 3, 1), trial.Slab(8, 1, 1), trial.Slab(8, 2, 0)), trial.Lay(c, trial.Slab(7, 7, 7), trial.Free(3), trial.Used(1), trial.Free(2)),
 	} {
 		vals := map[uint32]bool{math.MaxUint32: true}
 		for k := range uint32(12) {
 			vals[k], vals[k<<4|1], vals[k<<4|2], vals[k<<16|0x13], vals[1024*k] = true, true, true, true, true
 		}
-		for _, val := range l.v {
+		for _, val := range l.Vals {
 			vals[val] = true
 		}
-		for cell := range l.v {
+		for cell := range l.Vals {
 			for val := range vals {
-				spoilt := l.copied()
-				spoilt.v[cell] = val
+				spoilt := l.Copied()
+				spoilt.Vals[cell] = val
 				wantAsBroken(t, spoilt)
 			}
 		}
@@ -702,26 +703,26 @@ func TestEachCell(t *testing.T) {
 
 // P12.1: heaps of which some cells get other values, by chance; and values that were no heap ever.
 func TestByChance(t *testing.T) {
-	x := chance(5)
+	x := trial.Chance(5)
 	for range 6000 {
-		c := api.Config{Threads: 1 + x.next(3), Pages: 4 + x.next(12), Shift: 10 + x.next(11)}
-		l := lay(c, x.pieces(c.Pages)...)
-		for range 1 + x.next(3) {
-			cell := x.next(len(l.v))
-			switch x.next(4) {
+		c := api.Config{Threads: 1 + x.Next(3), Pages: 4 + x.Next(12), Shift: 10 + x.Next(11)}
+		l := trial.Lay(c, x.Pieces(c.Pages)...)
+		for range 1 + x.Next(3) {
+			cell := x.Next(len(l.Vals))
+			switch x.Next(4) {
 			case 0:
-				l.v[cell] = l.v[x.next(len(l.v))]
+				l.Vals[cell] = l.Vals[x.Next(len(l.Vals))]
 			case 1:
-				l.v[cell] ^= 1 << x.next(32)
+				l.Vals[cell] ^= 1 << x.Next(32)
 			case 2:
-				l.v[cell] = uint32(x.next(c.Pages + 2))
+				l.Vals[cell] = uint32(x.Next(c.Pages + 2))
 			default:
-				l.v[cell] = piece{kind: x.next(5), n: x.next(4), class: x.next(2) * x.next(11)}.value()
+				l.Vals[cell] = trial.Piece{Info: api.Info{Kind: x.Next(5), Len: x.Next(4), Class: x.Next(2) * x.Next(11)}}.Value()
 			}
 		}
 		wantAsBroken(t, l)
-		for cell := range l.v {
-			l.v[cell] = uint32(x.next(4)) * uint32(x.next(c.Pages))
+		for cell := range l.Vals {
+			l.Vals[cell] = uint32(x.Next(4)) * uint32(x.Next(c.Pages))
 		}
 		wantAsBroken(t, l)
 	}
@@ -743,8 +744,8 @@ func TestSameStates(t *testing.T) {
 		t.Fatal("Same() asks for what is behind a list")
 	}
 	l := layMixed()
-	one, _ := audit.State(l.c, l.v)
-	two, _ := audit.State(l.c, slices.Clone(l.v))
+	one, _ := audit.State(l.Config, l.Vals)
+	two, _ := audit.State(l.Config, slices.Clone(l.Vals))
 	if !audit.Same(one, two) {
 		t.Fatal("Same() is false of one heap's states")
 	}
@@ -754,7 +755,7 @@ func TestSameStates(t *testing.T) {
 func TestStatesThatDiffer(t *testing.T) {
 	l := layMixed()
 	state := func() api.State {
-		s, _ := audit.State(l.c, l.v)
+		s, _ := audit.State(l.Config, l.Vals)
 		s.Live = slices.Clone(s.Live)
 		return s
 	}
@@ -803,38 +804,38 @@ func TestStatesThatDiffer(t *testing.T) {
 // P12.2: State tells the values of the roots, each at its place, also of blocks at the greatest addresses.
 func TestStateOfTheGreatestAddresses(t *testing.T) {
 	c := api.Config{Threads: 16, Pages: 1024, Shift: 20}
-	pieces := []piece{slab(8, 1, 1), free(1000), used(21), slab(0, 1<<31, 1<<31), slab(8, 3, 2)}
-	l := lay(c, pieces...)
+	pieces := []trial.Piece{trial.Slab(8, 1, 1), trial.Free(1000), trial.Used(21), trial.Slab(0, 1<<31, 1<<31), trial.Slab(8, 3, 2)}
+	l := trial.Lay(c, pieces...)
 	var want [roots]int64
 	for i, a := range []int64{1 << 20, 1002 << 20, 1023<<20 + 31<<15, 1024<<20 + 1<<19} {
 		want[i*2] = a
-		l.v[place.Root(i*2)] = uint32(a)
+		l.Vals[place.Root(i*2)] = uint32(a)
 	}
 	wantHeap(t, l)
-	s, ok := audit.State(c, l.v)
+	s, ok := audit.State(c, l.Vals)
 	if !ok || s.Roots != want || !slices.Equal(s.Live, []api.Block{
 		{Addr: 1 << 20, Size: 1 << 19}, {Addr: 1002 << 20, Size: 21 << 20}, {Addr: 1023<<20 + 31<<15, Size: 1 << 15}, {Addr: 1024<<20 + 1<<19, Size: 1 << 19},
 	}) {
 		t.Fatalf("State() = %v, %v", s, ok)
 	}
-	l.v[place.Root(1)] = 1025 << 20
+	l.Vals[place.Root(1)] = 1025 << 20
 	wantJust(t, "the first byte behind the pages", l, 10)
 }
 
 // P12.3: each kind of part, with what is left behind slots, and without it.
 func TestParts(t *testing.T) {
 	c := api.Config{Threads: 1, Pages: 5, Shift: 10}
-	l := lay(c, slab(7, 6, 4), free(2), used(1), slab(8, 1, 0))
+	l := trial.Lay(c, trial.Slab(7, 6, 4), trial.Free(2), trial.Used(1), trial.Slab(8, 1, 0))
 	want := []api.Part{
 		{Kind: api.PtSlot, Addr: 1024, Size: 336}, {Kind: api.PtPocket, Addr: 1360, Size: 336}, {Kind: api.PtLive, Addr: 1696, Size: 336},
 		{Kind: api.PtSlack, Addr: 2032, Size: 16}, {Kind: api.PtFree, Addr: 2048, Size: 2048}, {Kind: api.PtLive, Addr: 4096, Size: 1024},
 		{Kind: api.PtPocket, Addr: 5120, Size: 512}, {Kind: api.PtSlot, Addr: 5632, Size: 512},
 	}
-	if got := audit.Parts(c, l.v); !slices.Equal(got, want) {
+	if got := audit.Parts(c, l.Vals); !slices.Equal(got, want) {
 		t.Fatalf("Parts() = %v, want %v", got, want)
 	}
 	live := []api.Block{{Addr: 1696, Size: 336}, {Addr: 4096, Size: 1024}}
-	if got := audit.Live(c, l.v); !slices.Equal(got, live) {
+	if got := audit.Live(c, l.Vals); !slices.Equal(got, live) {
 		t.Fatalf("Live() = %v, want %v", got, live)
 	}
 }

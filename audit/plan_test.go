@@ -2,10 +2,10 @@ package audit_test
 
 import (
 	"math/bits"
-	"slices"
 
 	"nacre/api"
 	"nacre/place"
+	"nacre/trial"
 )
 
 // The numbers of the document are written out: so the tests hold the limits, too.
@@ -32,146 +32,28 @@ func full(k int) uint32 {
 	return all
 }
 
-// piece is a span of a heap that a test lays: what it is, how many pages it has, and of a slab its class, and the bits of its slots.
-type piece struct {
-	kind, n, class int
-	taken, live    uint32
-}
-
-func free(n int) piece { return piece{kind: api.InFree, n: n} }
-
-func used(n int) piece { return piece{kind: api.InUsed, n: n} }
-
-func slab(k int, taken, live uint32) piece {
-	return piece{kind: api.InSlab, n: 1, class: k, taken: taken, live: live}
-}
-
-// value is the value of the piece's info, as chapter 9 has it.
-func (p piece) value() uint32 {
-	return uint32(p.kind) | uint32(p.n)<<4 | uint32(p.class)<<16
-}
-
-// list is the cell of the list in which the piece belongs; -1, if it belongs in none.
-func (p piece) list() int {
-	switch {
-	case p.kind == api.InFree:
-		return 2 + bits.Len(uint(p.n)) - 1
-	case p.kind == api.InSlab && p.taken&full(p.class) != full(p.class):
-		return 13 + p.class
-	}
-	return -1
-}
-
-// laid is values of a heap that a test laid.
-type laid struct {
-	c api.Config
-	v []uint32
-}
-
-// lay lays pieces from the page 0 on; pages behind them are left without a span. Each piece is put into its list, by turns ahead of all others and behind them, so that lists are in no plain order.
-func lay(c api.Config, pieces ...piece) laid {
-	l := laid{c, make([]uint32, place.Cells(c))}
-	lists := map[int][]int{}
-	p := 0
-	for turn, x := range pieces {
-		l.v[place.Info(c, p)] = x.value()
-		l.v[place.Foot(c, p+x.n-1)] = uint32(p) + 1
-		l.v[place.Slots(c, p)], l.v[place.Taken(c, p)] = x.live, x.taken
-		switch x.kind {
-		case api.InFree:
-			l.v[place.Free] += uint32(x.n)
-		case api.InUsed:
-			l.v[place.Live]++
-		}
-		l.v[place.Live] += uint32(bits.OnesCount32(x.live))
-		if head := x.list(); head >= 0 && turn%3 == 0 {
-			lists[head] = slices.Insert(lists[head], 0, p)
-		} else if head >= 0 {
-			lists[head] = append(lists[head], p)
-		}
-		p += x.n
-	}
-	for head, pages := range lists {
-		l.relink(head, pages)
-	}
-	return l
-}
-
-// pages is the pages of a list, which ends.
-func (l laid) pages(head int) []int {
-	var pages []int
-	for at := l.v[head]; at != 0; at = l.v[place.Next(l.c, int(at)-1)] {
-		pages = append(pages, int(at)-1)
-	}
-	return pages
-}
-
-// relink makes a list of these pages.
-func (l laid) relink(head int, pages []int) {
-	l.v[head] = 0
-	ahead := uint32(0)
-	for i, p := range pages {
-		if i == 0 {
-			l.v[head] = uint32(p) + 1
-		} else {
-			l.v[place.Next(l.c, pages[i-1])] = uint32(p) + 1
-		}
-		l.v[place.Prev(l.c, p)], l.v[place.Next(l.c, p)] = ahead, 0
-		ahead = uint32(p) + 1
-	}
-}
-
-// push puts a page into a list, ahead of all others.
-func (l laid) push(head, p int) {
-	l.relink(head, append([]int{p}, l.pages(head)...))
-}
-
-// put puts a page into a list, behind all others.
-func (l laid) put(head, p int) {
-	l.relink(head, append(l.pages(head), p))
-}
-
-// pull takes a page out of a list.
-func (l laid) pull(head, p int) {
-	pages := l.pages(head)
-	l.relink(head, slices.DeleteFunc(pages, func(q int) bool { return q == p }))
-	l.v[place.Next(l.c, p)], l.v[place.Prev(l.c, p)] = 0, 0
-}
-
-// live sets the Slots of a page, and counts them among the live blocks.
-func (l laid) live(p int, slots uint32) {
-	cell := place.Slots(l.c, p)
-	l.v[place.Live] += uint32(bits.OnesCount32(slots) - bits.OnesCount32(l.v[cell]))
-	l.v[cell] = slots
-}
-
-// copied is laid values of their own.
-func (l laid) copied() laid {
-	return laid{l.c, slices.Clone(l.v)}
-}
-
 // partsOf is what the bytes of the pages of such pieces are.
-func partsOf(c api.Config, pieces ...piece) []api.Part {
+func partsOf(c api.Config, pieces ...trial.Piece) []api.Part {
 	var parts []api.Part
 	page := int64(1) << c.Shift
 	a := page
 	for _, x := range pieces {
-		end := a + int64(x.n)*page
-		switch x.kind {
+		end := a + int64(x.Len)*page
+		switch x.Kind {
 		case api.InFree:
 			parts = append(parts, api.Part{Kind: api.PtFree, Addr: a, Size: end - a})
 		case api.InUsed:
 			parts = append(parts, api.Part{Kind: api.PtLive, Addr: a, Size: end - a})
 		default:
-			for s := range slotsOf[x.class] {
+			for s := range slotsOf[x.Class] {
 				kind := api.PtSlot
-				if x.live&(1<<s) != 0 {
+				if x.Live&(1<<s) != 0 {
 					kind = api.PtLive
-				} else if x.taken&(1<<s) != 0 {
+				} else if x.Taken&(1<<s) != 0 {
 					kind = api.PtPocket
 				}
-				parts = append(parts, api.Part{Kind: kind, Addr: a, Size: slotSize(c.Shift, x.class)})
-				a += slotSize(c.Shift, x.class)
+				parts = append(parts, api.Part{Kind: kind, Addr: a, Size: slotSize(c.Shift, x.Class)})
+				a += slotSize(c.Shift, x.Class)
 			}
 			if a < end {
 				parts = append(parts, api.Part{Kind: api.PtSlack, Addr: a, Size: end - a})
@@ -183,7 +65,7 @@ func partsOf(c api.Config, pieces ...piece) []api.Part {
 }
 
 // liveOf is the live blocks of such pieces.
-func liveOf(c api.Config, pieces ...piece) []api.Block {
+func liveOf(c api.Config, pieces ...trial.Piece) []api.Block {
 	var live []api.Block
 	for _, p := range partsOf(c, pieces...) {
 		if p.Kind == api.PtLive {
@@ -195,32 +77,32 @@ func liveOf(c api.Config, pieces ...piece) []api.Block {
 
 // found is a piece, and the page at which it begins.
 type found struct {
-	piece
+	trial.Piece
 	at int
 }
 
 // reading is values of a right configuration, as many as it has cells, read rule by rule.
 type reading struct {
-	laid
+	trial.Heap
 	spans []found
 	whole bool // whether the spans go up to the end
 }
 
 // read reads the spans of values, up to where none begins.
-func read(l laid) reading {
-	r := reading{laid: l}
+func read(l trial.Heap) reading {
+	r := reading{Heap: l}
 	p := 0
-	for p < l.c.Pages {
-		v := l.v[place.Info(l.c, p)]
-		x := piece{kind: int(v & 15), n: int(v >> 4 & 4095), class: int(v >> 16 & 15)}
-		isSpan := (x.kind == 1 || x.kind == 2) && x.n >= 1 && x.n <= 1024 && x.class == 0
-		isSlab := x.kind == 3 && x.n == 1 && x.class < classes
-		if v>>20 != 0 || !isSpan && !isSlab || p+x.n > l.c.Pages {
+	for p < l.Pages {
+		v := l.Vals[place.Info(l.Config, p)]
+		x := trial.Piece{Info: api.Info{Kind: int(v & 15), Len: int(v >> 4 & 4095), Class: int(v >> 16 & 15)}}
+		isSpan := (x.Kind == 1 || x.Kind == 2) && x.Len >= 1 && x.Len <= 1024 && x.Class == 0
+		isSlab := x.Kind == 3 && x.Len == 1 && x.Class < classes
+		if v>>20 != 0 || !isSpan && !isSlab || p+x.Len > l.Pages {
 			return r
 		}
-		x.taken, x.live = l.v[place.Taken(l.c, p)], l.v[place.Slots(l.c, p)]
+		x.Taken, x.Live = l.Vals[place.Taken(l.Config, p)], l.Vals[place.Slots(l.Config, p)]
 		r.spans = append(r.spans, found{x, p})
-		p += x.n
+		p += x.Len
 	}
 	r.whole = true
 	return r
@@ -230,10 +112,10 @@ func read(l laid) reading {
 func (r reading) rule2() bool {
 	infos := map[int]uint32{}
 	for _, s := range r.spans {
-		infos[s.at] = s.value()
+		infos[s.at] = s.Value()
 	}
-	for p := range r.c.Pages {
-		if r.v[place.Info(r.c, p)] != infos[p] {
+	for p := range r.Pages {
+		if r.Vals[place.Info(r.Config, p)] != infos[p] {
 			return false
 		}
 	}
@@ -244,10 +126,10 @@ func (r reading) rule2() bool {
 func (r reading) rule3() bool {
 	feet := map[int]uint32{}
 	for _, s := range r.spans {
-		feet[s.at+s.n-1] = uint32(s.at) + 1
+		feet[s.at+s.Len-1] = uint32(s.at) + 1
 	}
-	for p := range r.c.Pages {
-		if r.v[place.Foot(r.c, p)] != feet[p] {
+	for p := range r.Pages {
+		if r.Vals[place.Foot(r.Config, p)] != feet[p] {
 			return false
 		}
 	}
@@ -257,7 +139,7 @@ func (r reading) rule3() bool {
 // rule4 holds, if of two spans side by side one is not free.
 func (r reading) rule4() bool {
 	for i := 1; i < len(r.spans); i++ {
-		if r.spans[i-1].kind == api.InFree && r.spans[i].kind == api.InFree {
+		if r.spans[i-1].Kind == api.InFree && r.spans[i].Kind == api.InFree {
 			return false
 		}
 	}
@@ -268,15 +150,15 @@ func (r reading) rule4() bool {
 func (r reading) rule5() bool {
 	may := map[int]uint32{}
 	for _, s := range r.spans {
-		if s.kind == api.InSlab {
-			may[s.at] = full(s.class)
-			if s.taken == 0 {
+		if s.Kind == api.InSlab {
+			may[s.at] = full(s.Class)
+			if s.Taken == 0 {
 				return false
 			}
 		}
 	}
-	for p := range r.c.Pages {
-		taken, live := r.v[place.Taken(r.c, p)], r.v[place.Slots(r.c, p)]
+	for p := range r.Pages {
+		taken, live := r.Vals[place.Taken(r.Config, p)], r.Vals[place.Slots(r.Config, p)]
 		if taken|may[p] != may[p] || live|taken != taken {
 			return false
 		}
@@ -288,14 +170,14 @@ func (r reading) rule5() bool {
 func (r reading) walk(head int) (map[int]bool, bool) {
 	seen, right := map[int]bool{}, true
 	ahead := uint32(0)
-	for at := r.v[head]; at != 0; {
+	for at := r.Vals[head]; at != 0; {
 		p := int(at) - 1
-		if p >= r.c.Pages || seen[p] {
+		if p >= r.Pages || seen[p] {
 			return seen, false
 		}
 		seen[p] = true
-		right = right && r.v[place.Prev(r.c, p)] == ahead
-		ahead, at = at, r.v[place.Next(r.c, p)]
+		right = right && r.Vals[place.Prev(r.Config, p)] == ahead
+		ahead, at = at, r.Vals[place.Next(r.Config, p)]
 	}
 	return seen, right
 }
@@ -305,10 +187,10 @@ func (r reading) lists(from, many int) bool {
 	for head := from; head < from+many; head++ {
 		seen, ok := r.walk(head)
 		for _, s := range r.spans {
-			if s.list() == head && !seen[s.at] {
+			if s.List() == head && !seen[s.at] {
 				return false
 			}
-			if s.list() == head {
+			if s.List() == head {
 				delete(seen, s.at)
 			}
 		}
@@ -332,8 +214,8 @@ func (r reading) rule8() bool {
 			in[p] = true
 		}
 	}
-	for p := range r.c.Pages {
-		if !in[p] && (r.v[place.Next(r.c, p)] != 0 || r.v[place.Prev(r.c, p)] != 0) {
+	for p := range r.Pages {
+		if !in[p] && (r.Vals[place.Next(r.Config, p)] != 0 || r.Vals[place.Prev(r.Config, p)] != 0) {
 			return false
 		}
 	}
@@ -344,36 +226,36 @@ func (r reading) rule8() bool {
 func (r reading) rule9() bool {
 	var free, live uint32
 	for _, s := range r.spans {
-		if s.kind == api.InFree {
-			free += uint32(s.n)
+		if s.Kind == api.InFree {
+			free += uint32(s.Len)
 		}
-		if s.kind == api.InUsed {
+		if s.Kind == api.InUsed {
 			live++
 		}
 	}
-	for p := range r.c.Pages {
-		live += uint32(bits.OnesCount32(r.v[place.Slots(r.c, p)]))
+	for p := range r.Pages {
+		live += uint32(bits.OnesCount32(r.Vals[place.Slots(r.Config, p)]))
 	}
-	return r.v[place.Free] == free && r.v[place.Live] == live
+	return r.Vals[place.Free] == free && r.Vals[place.Live] == live
 }
 
 // rule10 holds, if the roots name nothing, or live blocks.
 func (r reading) rule10() bool {
-	page := int64(1) << r.c.Shift
+	page := int64(1) << r.Shift
 	begins := map[int64]bool{0: true}
 	for _, s := range r.spans {
 		a := int64(s.at+1) * page
-		if s.kind == api.InUsed {
+		if s.Kind == api.InUsed {
 			begins[a] = true
 		}
 		for i := range 32 {
-			if s.kind == api.InSlab && s.live&(1<<i) != 0 {
-				begins[a+int64(i)*slotSize(r.c.Shift, s.class)] = true
+			if s.Kind == api.InSlab && s.Live&(1<<i) != 0 {
+				begins[a+int64(i)*slotSize(r.Shift, s.Class)] = true
 			}
 		}
 	}
 	for i := range roots {
-		if !begins[int64(r.v[place.Root(i)])] {
+		if !begins[int64(r.Vals[place.Root(i)])] {
 			return false
 		}
 	}
@@ -381,7 +263,7 @@ func (r reading) rule10() bool {
 }
 
 // broken is the numbers of the rules from 2 on that do not hold, each asked by itself, as the document says it.
-func broken(l laid) []int {
+func broken(l trial.Heap) []int {
 	r := read(l)
 	var numbers []int
 	for i, holds := range []bool{
@@ -392,50 +274,4 @@ func broken(l laid) []int {
 		}
 	}
 	return numbers
-}
-
-// chance is a row of numbers that looks like one by chance.
-type chance uint32
-
-// next is the next number, below n.
-func (c *chance) next(n int) int {
-	*c = *c*1664525 + 1013904223
-	return int(*c>>16) % n
-}
-
-// bits is the next 32 bits.
-func (c *chance) bits() uint32 {
-	return uint32(c.next(1<<16))<<16 | uint32(c.next(1<<16))
-}
-
-// pieces is pieces that fill so many pages, of which no two free ones are side by side.
-func (c *chance) pieces(pages int) []piece {
-	var l []piece
-	for pages > 0 {
-		var x piece
-		switch what := c.next(4); {
-		case what == 0 && (len(l) == 0 || l[len(l)-1].kind != api.InFree):
-			x = free(1 + c.next(min(pages, 9)))
-		case what == 1:
-			x = used(1 + c.next(min(pages, 5)))
-		default:
-			x = c.slab(c.next(classes))
-		}
-		l = append(l, x)
-		pages -= x.n
-	}
-	return l
-}
-
-// slab is a slab of the class k, full or not.
-func (c *chance) slab(k int) piece {
-	taken := c.bits() & full(k)
-	if taken == 0 || c.next(3) == 0 {
-		taken = full(k)
-	}
-	live := c.bits() & taken
-	if c.next(3) == 0 {
-		live = taken
-	}
-	return slab(k, taken, live)
 }

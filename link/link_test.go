@@ -8,11 +8,9 @@ import (
 
 	"nacre/api"
 	"nacre/audit"
-	"nacre/class"
-	"nacre/half"
-	"nacre/info"
 	"nacre/link"
 	"nacre/place"
+	"nacre/trial"
 	"nacre/view"
 )
 
@@ -60,48 +58,11 @@ func heads() []int {
 // noCells are no cells of a View of fewer than 8192.
 var noCells = []int{-1, -2, -1 << 32, math.MinInt, 8192, 1 << 32, 1<<32 + bin, math.MaxInt}
 
-// rising is n values of which each is another one, and none is 0, or a link.
-func rising(n int) []uint32 {
-	vals := make([]uint32, n)
-	for i := range vals {
-		vals[i] = uint32(i)<<16 + 1<<30
-	}
-	return vals
-}
-
-// lay makes the cell of a head, and those of the pages, a list of these pages.
-func lay(c api.Config, vals []uint32, head int, pages ...int) {
-	at, ahead := head, uint32(0)
-	for _, p := range pages {
-		vals[at], vals[prev(c, p)] = uint32(p+1), ahead
-		at, ahead = next(c, p), uint32(p+1)
-	}
-	vals[at] = 0
-}
-
 // laid is values of which just those of a list of these pages are no rising ones.
 func laid(c api.Config, head int, pages ...int) []uint32 {
-	vals := rising(cells(c))
-	lay(c, vals, head, pages...)
+	vals := trial.Rising(place.Cells(c))
+	trial.Heap{Config: c, Vals: vals}.Relink(head, pages...)
 	return vals
-}
-
-// wantCells asks whether just these cells were read, and put, so ordered; those that were put are told by turns with their values. None may be missing.
-func wantCells(t *testing.T, v *view.View, reads []int, writes ...int) {
-	t.Helper()
-	if got := v.Reads(); !slices.Equal(got, reads) {
-		t.Fatalf("Reads() = %v, not %v", got, reads)
-	}
-	var want []api.Pair
-	for i := 0; i < len(writes); i += 2 {
-		want = append(want, api.Pair{Cell: writes[i], Val: uint32(writes[i+1])})
-	}
-	if got := v.Writes(); !slices.Equal(got, want) {
-		t.Fatalf("Writes() = %v, not %v", got, want)
-	}
-	if got := v.Missing(); got != -1 {
-		t.Fatalf("Missing() = %d", got)
-	}
 }
 
 // wantWalk asks whether a list has just these pages, so ordered.
@@ -115,10 +76,10 @@ func wantWalk(t *testing.T, v *view.View, c api.Config, head int, pages ...int) 
 // wantList asks whether the values are those of a list of just these pages, with every Prev, and no other one turned.
 func wantList(t *testing.T, v *view.View, was []uint32, c api.Config, head int, pages ...int) {
 	t.Helper()
-	want := slices.Clone(was)
-	lay(c, want, head, pages...)
-	if got := v.Vals(); !slices.Equal(got, want) {
-		t.Fatalf("the values of %v are %v, not %v", c, got, want)
+	want := trial.Heap{Config: c, Vals: slices.Clone(was)}
+	want.Relink(head, pages...)
+	if got := v.Vals(); !slices.Equal(got, want.Vals) {
+		t.Fatalf("the values of %v are %v, not %v", c, got, want.Vals)
 	}
 }
 
@@ -126,14 +87,14 @@ func wantList(t *testing.T, v *view.View, was []uint32, c api.Config, head int, 
 func TestExample(t *testing.T) {
 	for _, c := range rights {
 		for _, head := range heads() {
-			v := view.Whole(make([]uint32, cells(c)))
+			v := view.Whole(make([]uint32, place.Cells(c)))
 			link.Push(v, c, head, 2)
-			want := make([]uint32, cells(c))
+			want := make([]uint32, place.Cells(c))
 			want[head] = 3
 			if got := v.Vals(); !slices.Equal(got, want) {
 				t.Fatalf("the values of %v are %v, not %v", c, got, want)
 			}
-			wantCells(t, v, []int{head}, next(c, 2), 0, prev(c, 2), 0, head, 3)
+			trial.WantCells(t, v, []int{head}, place.Next(c, 2), 0, place.Prev(c, 2), 0, head, 3)
 			wantWalk(t, v, c, head, 2)
 		}
 	}
@@ -145,10 +106,10 @@ func TestPushOntoNoPages(t *testing.T) {
 		for p := range c.Pages {
 			for _, was := range []uint32{0, 1, uint32(c.Pages), 1 << 30} {
 				vals := laid(c, bin)
-				vals[next(c, p)], vals[prev(c, p)] = was, was
+				vals[place.Next(c, p)], vals[place.Prev(c, p)] = was, was
 				v := view.Whole(vals)
 				link.Push(v, c, bin, p)
-				wantCells(t, v, []int{bin}, next(c, p), 0, prev(c, p), 0, bin, p+1)
+				trial.WantCells(t, v, []int{bin}, place.Next(c, p), 0, place.Prev(c, p), 0, bin, p+1)
 				wantList(t, v, vals, c, bin, p)
 			}
 		}
@@ -160,16 +121,16 @@ func TestPushOntoPages(t *testing.T) {
 	vals := laid(six, bin, 4)
 	v := view.Whole(vals)
 	link.Push(v, six, bin, 2)
-	wantCells(t, v, []int{3}, 52, 5, 53, 0, 65, 3, 3, 3)
+	trial.WantCells(t, v, []int{3}, 52, 5, 53, 0, 65, 3, 3, 3)
 	wantList(t, v, vals, six, bin, 2, 4)
 	link.Push(v, six, bin, 0)
-	wantCells(t, v, []int{3}, 52, 5, 53, 1, 65, 3, 3, 1, 40, 3, 41, 0)
+	trial.WantCells(t, v, []int{3}, 52, 5, 53, 1, 65, 3, 3, 1, 40, 3, 41, 0)
 	wantList(t, v, vals, six, bin, 0, 2, 4)
 
 	vals = laid(six, bin, 5, 0, 3, 1)
 	v = view.Whole(vals)
 	link.Push(v, six, bin, 2)
-	wantCells(t, v, []int{3}, 52, 6, 53, 0, 71, 3, 3, 3)
+	trial.WantCells(t, v, []int{3}, 52, 6, 53, 0, 71, 3, 3, 3)
 	wantList(t, v, vals, six, bin, 2, 5, 0, 3, 1)
 }
 
@@ -197,13 +158,13 @@ func TestPullOfTheOnlyPage(t *testing.T) {
 			vals := laid(c, bin, p)
 			v := view.Whole(vals)
 			link.Pull(v, c, bin, p)
-			wantCells(t, v, []int{next(c, p), prev(c, p)}, bin, 0, next(c, p), 0, prev(c, p), 0)
+			trial.WantCells(t, v, []int{place.Next(c, p), place.Prev(c, p)}, bin, 0, place.Next(c, p), 0, place.Prev(c, p), 0)
 			wantList(t, v, vals, c, bin)
 		}
 	}
 	v := view.Whole(laid(six, bin, 2))
 	link.Pull(v, six, bin, 2)
-	wantCells(t, v, []int{52, 53}, 3, 0, 52, 0, 53, 0)
+	trial.WantCells(t, v, []int{52, 53}, 3, 0, 52, 0, 53, 0)
 }
 
 // P13.2: the first page is pulled: the head leads to the one behind it, which has none ahead.
@@ -211,7 +172,7 @@ func TestPullOfTheFirstPage(t *testing.T) {
 	vals := laid(six, bin, 4, 0, 5)
 	v := view.Whole(vals)
 	link.Pull(v, six, bin, 4)
-	wantCells(t, v, []int{64, 65}, 3, 1, 41, 0, 64, 0, 65, 0)
+	trial.WantCells(t, v, []int{64, 65}, 3, 1, 41, 0, 64, 0, 65, 0)
 	vals[64], vals[65] = 0, 0
 	wantList(t, v, vals, six, bin, 0, 5)
 }
@@ -221,7 +182,7 @@ func TestPullOfTheLastPage(t *testing.T) {
 	vals := laid(six, bin, 4, 0, 5)
 	v := view.Whole(vals)
 	link.Pull(v, six, bin, 5)
-	wantCells(t, v, []int{70, 71}, 40, 0, 70, 0, 71, 0)
+	trial.WantCells(t, v, []int{70, 71}, 40, 0, 70, 0, 71, 0)
 	vals[70], vals[71] = 0, 0
 	wantList(t, v, vals, six, bin, 4, 0)
 }
@@ -231,7 +192,7 @@ func TestPullOfAPageBetweenTwo(t *testing.T) {
 	vals := laid(six, bin, 4, 0, 5)
 	v := view.Whole(vals)
 	link.Pull(v, six, bin, 0)
-	wantCells(t, v, []int{40, 41}, 64, 6, 71, 5, 40, 0, 41, 0)
+	trial.WantCells(t, v, []int{40, 41}, 64, 6, 71, 5, 40, 0, 41, 0)
 	vals[40], vals[41] = 0, 0
 	wantList(t, v, vals, six, bin, 4, 5)
 }
@@ -246,7 +207,7 @@ func TestPullOfEachPage(t *testing.T) {
 				vals := laid(six, head, pages...)
 				v := view.Whole(vals)
 				link.Pull(v, six, head, p)
-				vals[next(six, p)], vals[prev(six, p)] = 0, 0
+				vals[place.Next(six, p)], vals[place.Prev(six, p)] = 0, 0
 				left := slices.Delete(slices.Clone(pages), i, i+1)
 				wantList(t, v, vals, six, head, left...)
 				wantWalk(t, v, six, head, left...)
@@ -260,10 +221,10 @@ func TestPagesThatAreNone(t *testing.T) {
 	wantNothing := func(c api.Config, p int) {
 		t.Helper()
 		for _, head := range []int{bin, 13, 0, 41, -1} {
-			for _, v := range []*view.View{view.Whole(make([]uint32, 200)), view.Whole(rising(200)), view.Known(200, nil)} {
+			for _, v := range []*view.View{view.Whole(make([]uint32, 200)), view.Whole(trial.Rising(200)), view.Known(200, nil)} {
 				link.Push(v, c, head, p)
 				link.Pull(v, c, head, p)
-				wantCells(t, v, nil)
+				trial.WantCells(t, v, nil)
 			}
 		}
 	}
@@ -292,7 +253,7 @@ func TestLastPage(t *testing.T) {
 		v := view.Whole(vals)
 		link.Push(v, c, bin, c.Pages)
 		link.Pull(v, c, bin, c.Pages)
-		wantCells(t, v, nil)
+		trial.WantCells(t, v, nil)
 		link.Push(v, c, bin, c.Pages-1)
 		wantList(t, v, vals, c, bin, c.Pages-1, 1)
 		link.Pull(v, c, bin, c.Pages-1)
@@ -308,11 +269,11 @@ func TestPushOfAWrongConfiguration(t *testing.T) {
 				continue
 			}
 			for _, h := range []uint32{0, 1, 3, math.MaxUint32} {
-				vals := rising(100)
+				vals := trial.Rising(100)
 				vals[bin] = h
 				v := view.Whole(vals)
 				link.Push(v, c, bin, p)
-				wantCells(t, v, []int{bin}, bin, p+1)
+				trial.WantCells(t, v, []int{bin}, bin, p+1)
 			}
 		}
 	}
@@ -325,9 +286,9 @@ func TestPullOfAWrongConfiguration(t *testing.T) {
 			if p < 0 || p >= c.Pages {
 				continue
 			}
-			for _, v := range []*view.View{view.Whole(make([]uint32, 100)), view.Whole(rising(100)), view.Known(100, nil)} {
+			for _, v := range []*view.View{view.Whole(make([]uint32, 100)), view.Whole(trial.Rising(100)), view.Known(100, nil)} {
 				link.Pull(v, c, bin, p)
-				wantCells(t, v, nil, bin, 0)
+				trial.WantCells(t, v, nil, bin, 0)
 			}
 		}
 	}
@@ -345,14 +306,14 @@ func TestWalkOfAWrongConfiguration(t *testing.T) {
 			} else {
 				wantWalk(t, v, c, bin)
 			}
-			wantCells(t, v, []int{bin})
+			trial.WantCells(t, v, []int{bin})
 		}
 	}
 	for _, c := range pageless {
 		for _, l := range []uint32{0, 1, 2, 1 << 31, math.MaxUint32 - 5, math.MaxUint32} {
 			v := view.Whole([]uint32{0, 0, 0, l})
 			wantWalk(t, v, c, bin)
-			wantCells(t, v, []int{bin})
+			trial.WantCells(t, v, []int{bin})
 		}
 	}
 }
@@ -367,10 +328,10 @@ func TestVeryManyPages(t *testing.T) {
 			}
 			v := view.Whole(make([]uint32, 100))
 			link.Push(v, c, bin, p)
-			wantCells(t, v, []int{bin}, bin, p+1)
+			trial.WantCells(t, v, []int{bin}, bin, p+1)
 			wantWalk(t, v, c, bin, p)
 			link.Pull(v, c, bin, p)
-			wantCells(t, v, []int{bin}, bin, 0)
+			trial.WantCells(t, v, []int{bin}, bin, 0)
 			wantWalk(t, v, c, bin)
 		}
 	}
@@ -383,7 +344,7 @@ func TestPushWhereTheHeadLeadsToNoPage(t *testing.T) {
 		vals[bin] = h
 		v := view.Whole(vals)
 		link.Push(v, six, bin, 2)
-		wantCells(t, v, []int{3}, 52, int(h), 53, 0, 3, 3)
+		trial.WantCells(t, v, []int{3}, 52, int(h), 53, 0, 3, 3)
 		wantWalk(t, v, six, bin, 2)
 	}
 }
@@ -395,29 +356,29 @@ func TestPullWhereLinksLeadToNoPage(t *testing.T) {
 		vals[40] = far
 		v := view.Whole(vals)
 		link.Pull(v, six, bin, 0)
-		wantCells(t, v, []int{40, 41}, 64, int(far), 40, 0, 41, 0)
+		trial.WantCells(t, v, []int{40, 41}, 64, int(far), 40, 0, 41, 0)
 
 		vals = laid(six, bin, 4, 0, 5)
 		vals[41] = far
 		v = view.Whole(vals)
 		link.Pull(v, six, bin, 0)
-		wantCells(t, v, []int{40, 41}, 71, int(far), 40, 0, 41, 0)
+		trial.WantCells(t, v, []int{40, 41}, 71, int(far), 40, 0, 41, 0)
 
 		vals = laid(six, bin, 4, 0, 5)
 		vals[40], vals[41] = far, far-1
 		v = view.Whole(vals)
 		link.Pull(v, six, bin, 0)
 		if far == 7 {
-			wantCells(t, v, []int{40, 41}, 70, int(far), 40, 0, 41, 0)
+			trial.WantCells(t, v, []int{40, 41}, 70, int(far), 40, 0, 41, 0)
 		} else {
-			wantCells(t, v, []int{40, 41}, 40, 0, 41, 0)
+			trial.WantCells(t, v, []int{40, 41}, 40, 0, 41, 0)
 		}
 
 		vals = laid(six, bin, 4, 0, 5)
 		vals[64] = far
 		v = view.Whole(vals)
 		link.Pull(v, six, bin, 4)
-		wantCells(t, v, []int{64, 65}, 3, int(far), 64, 0, 65, 0)
+		trial.WantCells(t, v, []int{64, 65}, 3, int(far), 64, 0, 65, 0)
 	}
 }
 
@@ -426,22 +387,22 @@ func TestPageThatLeadsToItself(t *testing.T) {
 	vals := laid(six, bin, 2)
 	v := view.Whole(vals)
 	link.Push(v, six, bin, 2)
-	wantCells(t, v, []int{3}, 52, 3, 53, 3, 3, 3)
+	trial.WantCells(t, v, []int{3}, 52, 3, 53, 3, 3, 3)
 	wantWalk(t, v, six, bin, 2, 2, 2, 2, 2, 2)
 	link.Pull(v, six, bin, 2)
-	wantCells(t, v, []int{3}, 52, 0, 53, 0, 3, 3)
+	trial.WantCells(t, v, []int{3}, 52, 0, 53, 0, 3, 3)
 
 	vals = laid(six, bin, 2)
 	vals[52], vals[53] = 3, 3
 	v = view.Whole(vals)
 	link.Pull(v, six, bin, 2)
-	wantCells(t, v, []int{52, 53}, 52, 0, 53, 0)
+	trial.WantCells(t, v, []int{52, 53}, 52, 0, 53, 0)
 }
 
 // P13.1, P13.2: a head may be any cell, also one of the page itself, of one beside it, or none: then nothing is got of it, and nothing is put there.
 func TestAnyHead(t *testing.T) {
 	var all []int
-	for head := -3; head < cells(six)+3; head++ {
+	for head := -3; head < place.Cells(six)+3; head++ {
 		all = append(all, head)
 	}
 	for _, head := range append(all, noCells...) {
@@ -452,8 +413,7 @@ func TestAnyHead(t *testing.T) {
 					if head >= 0 && head < len(vals) {
 						vals[head] = val
 					}
-					same, v := plainOf(six, vals, nil)
-					same.wantDone(t, v, what, head, p)
+					plain{view.Whole(vals), six}.wantDone(t, view.Whole(vals), what, head, p)
 				}
 			}
 		}
@@ -462,54 +422,26 @@ func TestAnyHead(t *testing.T) {
 
 // P13.1, P13.2: at a head that is no cell nothing is got, and nothing is put there.
 func TestHeadThatIsNoCell(t *testing.T) {
-	for _, head := range append([]int{cells(six), cells(six) + 1}, noCells...) {
+	for _, head := range append([]int{place.Cells(six), place.Cells(six) + 1}, noCells...) {
 		v := view.Whole(laid(six, bin, 4, 0, 5))
 		link.Push(v, six, head, 2)
-		wantCells(t, v, nil, 52, 0, 53, 0)
+		trial.WantCells(t, v, nil, 52, 0, 53, 0)
 		v = view.Whole(laid(six, bin, 4, 0, 5))
 		link.Pull(v, six, head, 4)
-		wantCells(t, v, []int{64, 65}, 41, 0, 64, 0, 65, 0)
+		trial.WantCells(t, v, []int{64, 65}, 41, 0, 64, 0, 65, 0)
 		v = view.Whole(laid(six, bin, 4, 0, 5))
 		wantWalk(t, v, six, head)
-		wantCells(t, v, nil)
+		trial.WantCells(t, v, nil)
 	}
 }
 
-// P13.1, P13.2: a View that knows less tells what it misses, as the reads come; from there on nothing is put.
+// P13.1 to P13.3: a View that knows less tells what it misses, as the reads come; from there on nothing is put.
 func TestMissing(t *testing.T) {
 	vals := laid(six, bin, 4, 0, 5)
-	for _, x := range []struct {
-		do    func(v *view.View)
-		reads []int
-	}{
-		{func(v *view.View) { link.Push(v, six, bin, 2) }, []int{3}},
-		{func(v *view.View) { link.Pull(v, six, bin, 0) }, []int{40, 41}},
-		{func(v *view.View) { link.Pull(v, six, bin, 4) }, []int{64, 65}},
-		{func(v *view.View) { link.Walk(v, six, bin) }, []int{3, 64, 40, 70}},
-	} {
-		whole := view.Whole(vals)
-		x.do(whole)
-		var l []api.Pair
-		for _, i := range x.reads {
-			some := view.Known(len(vals), l)
-			x.do(some)
-			if got := some.Missing(); got != i {
-				t.Fatalf("Missing() = %d, not %d", got, i)
-			}
-			if got := some.Reads(); !slices.Equal(got, x.reads[:len(l)]) {
-				t.Fatalf("Reads() = %v, not %v", got, x.reads[:len(l)])
-			}
-			if got := some.Writes(); len(got) != 0 {
-				t.Fatalf("Writes() = %v", got)
-			}
-			l = append(l, api.Pair{Cell: i, Val: vals[i]})
-		}
-		some := view.Known(len(vals), l)
-		x.do(some)
-		if !slices.Equal(some.Reads(), whole.Reads()) || !slices.Equal(some.Writes(), whole.Writes()) || some.Missing() != -1 {
-			t.Fatalf("of what is read alone there is read %v, and put %v", some.Reads(), some.Writes())
-		}
-	}
+	trial.WantReads(t, vals, func(v *view.View) { link.Push(v, six, bin, 2) }, []int{3})
+	trial.WantReads(t, vals, func(v *view.View) { link.Pull(v, six, bin, 0) }, []int{40, 41})
+	trial.WantReads(t, vals, func(v *view.View) { link.Pull(v, six, bin, 4) }, []int{64, 65})
+	trial.WantReads(t, vals, func(v *view.View) { link.Walk(v, six, bin) }, []int{3, 64, 40, 70})
 }
 
 // P13.3: of a View that knows less the pages up to the missing cell are told.
@@ -517,7 +449,7 @@ func TestWalkUpToTheMissingCell(t *testing.T) {
 	vals := laid(six, bin, 4, 0, 5)
 	pages := []int{4, 0, 5}
 	for n, i := range []int{bin, 64, 40, 70} {
-		_, v := plainOf(six, vals, map[int]bool{i: true})
+		v := trial.Lacking(vals, i)
 		wantWalk(t, v, six, bin, pages[:n]...)
 		if got := v.Missing(); got != i {
 			t.Fatalf("Missing() = %d, not %d", got, i)
@@ -538,7 +470,7 @@ func TestViewsWithoutCells(t *testing.T) {
 				}
 			}
 		}
-		wantCells(t, v, nil)
+		trial.WantCells(t, v, nil)
 	}
 }
 
@@ -567,16 +499,16 @@ func TestWalk(t *testing.T) {
 			wantWalk(t, v, six, head, order[:n]...)
 			reads := []int{head}
 			for _, p := range order[:n] {
-				reads = append(reads, next(six, p))
+				reads = append(reads, place.Next(six, p))
 			}
-			wantCells(t, v, reads)
+			trial.WantCells(t, v, reads)
 		}
 	}
 	for _, c := range rights {
 		for p := range c.Pages {
 			v := view.Whole(laid(c, bin, p))
 			wantWalk(t, v, c, bin, p)
-			wantCells(t, v, []int{bin, next(c, p)})
+			trial.WantCells(t, v, []int{bin, place.Next(c, p)})
 		}
 	}
 }
@@ -588,7 +520,7 @@ func TestWalkOfACircle(t *testing.T) {
 			for back := range pages {
 				vals := laid(c, bin, pages...)
 				last := pages[len(pages)-1]
-				vals[next(c, last)] = uint32(pages[back] + 1)
+				vals[place.Next(c, last)] = uint32(pages[back] + 1)
 				var want []int
 				for at := 0; len(want) < c.Pages; at++ {
 					if at == len(pages) {
@@ -600,9 +532,9 @@ func TestWalkOfACircle(t *testing.T) {
 				wantWalk(t, v, c, bin, want...)
 				reads := []int{bin}
 				for _, p := range pages {
-					reads = append(reads, next(c, p))
+					reads = append(reads, place.Next(c, p))
 				}
-				wantCells(t, v, reads)
+				trial.WantCells(t, v, reads)
 			}
 		}
 	}
@@ -616,7 +548,7 @@ func TestWalkOfACircleOfAllPages(t *testing.T) {
 			pages = append(pages, c.Pages-1-p)
 		}
 		vals := laid(c, bin, pages...)
-		vals[next(c, 0)] = uint32(c.Pages)
+		vals[place.Next(c, 0)] = uint32(c.Pages)
 		wantWalk(t, view.Whole(vals), c, bin, pages...)
 	}
 }
@@ -629,29 +561,29 @@ func TestWalkToNoPage(t *testing.T) {
 		vals[bin] = far
 		v := view.Whole(vals)
 		wantWalk(t, v, six, bin)
-		wantCells(t, v, []int{bin})
+		trial.WantCells(t, v, []int{bin})
 		reads := []int{bin}
 		for i, p := range pages {
 			vals = laid(six, bin, pages...)
-			vals[next(six, p)] = far
+			vals[place.Next(six, p)] = far
 			v = view.Whole(vals)
 			wantWalk(t, v, six, bin, pages[:i+1]...)
-			reads = append(reads, next(six, p))
-			wantCells(t, v, reads)
+			reads = append(reads, place.Next(six, p))
+			trial.WantCells(t, v, reads)
 		}
 	}
 }
 
 // P13.3: what Prev tells is not asked, and what was put is walked.
 func TestWalkOfWhatWasPut(t *testing.T) {
-	vals := make([]uint32, cells(six))
+	vals := make([]uint32, place.Cells(six))
 	vals[bin] = 2
 	v := view.Whole(vals)
-	v.Put(next(six, 1), 4)
-	v.Put(next(six, 3), 6)
-	v.Put(prev(six, 3), 6)
+	v.Put(place.Next(six, 1), 4)
+	v.Put(place.Next(six, 3), 6)
+	v.Put(place.Prev(six, 3), 6)
 	wantWalk(t, v, six, bin, 1, 3, 5)
-	wantCells(t, v, []int{bin, 70}, 46, 4, 58, 6, 59, 6)
+	trial.WantCells(t, v, []int{bin, 70}, 46, 4, 58, 6, 59, 6)
 }
 
 // P13.3: what was told is one's own.
@@ -664,32 +596,25 @@ func TestWalksAreApart(t *testing.T) {
 // P13.1 to P13.3: values by chance, of links that lead to pages, and to none: what is read, put, missing and told is what the chapter's lines say.
 func TestAnyValues(t *testing.T) {
 	for seed := range 4000 {
-		by := chance(seed)
+		by := trial.Chance(seed)
 		c := six
-		switch by.next(8) {
+		switch by.Next(8) {
 		case 0:
-			c = wrongs[by.next(len(wrongs))]
+			c = wrongs[by.Next(len(wrongs))]
 		case 1:
-			c = rights[by.next(4)]
+			c = rights[by.Next(4)]
 		}
 		// Fewer cells than a configuration has, and more, may be those of a View.
-		n := cells(six) + by.pick(0, 0, 0, -9, -30, 20)
+		n := place.Cells(six) + by.Pick(0, 0, 0, -9, -30, 20)
 		vals := make([]uint32, n)
 		for i := range vals {
-			vals[i] = by.link(six.Pages)
+			vals[i] = by.Link(six.Pages)
 		}
-		var lacks map[int]bool
-		if by.next(3) == 0 {
-			lacks = map[int]bool{}
-			for range by.next(12) {
-				lacks[by.next(n)] = true
-			}
-		}
-		same, v := plainOf(c, vals, lacks)
-		for range 1 + by.next(8) {
-			head := by.pick(bin, bin, bin, 13, by.next(n), by.next(n), -1, n)
-			p := by.pick(by.next(six.Pages), by.next(six.Pages), by.next(six.Pages), -1, 6, 7)
-			same.wantDone(t, v, kind(by.next(int(kinds))), head, p)
+		v, as := by.Twins(vals)
+		for range 1 + by.Next(8) {
+			head := by.Pick(bin, bin, bin, 13, by.Next(n), by.Next(n), -1, n)
+			p := by.Pick(by.Next(six.Pages), by.Next(six.Pages), by.Next(six.Pages), -1, 6, 7)
+			plain{as, c}.wantDone(t, v, kind(by.Next(int(kinds))), head, p)
 		}
 	}
 }
@@ -701,54 +626,38 @@ type heap struct {
 	lists map[int][]int
 }
 
-// span is what begins at a page, and the list in which it belongs; -1, if that is none.
-type span struct {
-	api.Info
-	taken uint32
-	list  int
-}
-
-// spanOf is the n-th span of the heaps of these tests, of at most so many pages: by turns a slab and a free span, so that no two free ones are side by side.
-func spanOf(n, most int) span {
+// pieceOf is the n-th piece of the heaps of these tests, of at most so many pages: by turns a slab and a free span, so that no two free ones are side by side.
+func pieceOf(n, most int) trial.Piece {
 	k := n / 2 % 9
-	all := uint32(1)<<class.Slots(k) - 1
-	slab := api.Info{Kind: api.InSlab, Len: 1, Class: k}
 	switch {
 	case n%2 == 1:
-		l := min(1+n*7%12, most)
-		return span{api.Info{Kind: api.InFree, Len: l}, 0, 2 + half.Log(l)}
+		return trial.Free(min(1+n*7%12, most))
 	case n%5 == 4:
-		return span{slab, all, -1}
+		return trial.Slab(k, trial.Full(k), 0)
 	case n%7 == 6:
-		return span{api.Info{Kind: api.InUsed, Len: 1}, 0, -1}
+		return trial.Used(1)
 	}
-	return span{slab, 1, 13 + k}
+	return trial.Slab(k, 1, 0)
 }
 
 // heapOf is the heap of c.
 func heapOf(t *testing.T, c api.Config) heap {
 	t.Helper()
-	h := heap{c, view.Whole(make([]uint32, cells(c))), map[int][]int{}}
-	free, live := 0, 0
-	for p, n := 0, 0; p < c.Pages; n++ {
-		s := spanOf(n, c.Pages-p)
-		val, _ := info.Put(s.Info)
-		h.v.Put(place.Info(c, p), val)
-		h.v.Put(place.Foot(c, p+s.Len-1), uint32(p+1))
-		h.v.Put(place.Taken(c, p), s.taken)
-		switch s.Kind {
-		case api.InFree:
-			free += s.Len
-		case api.InUsed:
-			live++
-		}
-		if s.list >= 0 {
-			h.push(s.list, p)
-		}
-		p += s.Len
+	var pieces []trial.Piece
+	for p := 0; p < c.Pages; p += pieces[len(pieces)-1].Len {
+		pieces = append(pieces, pieceOf(len(pieces), c.Pages-p))
 	}
-	h.v.Put(place.Free, uint32(free))
-	h.v.Put(place.Live, uint32(live))
+	h := heap{c, view.Whole(trial.Lay(c, pieces...).Vals), map[int][]int{}}
+	for _, head := range heads() {
+		h.v.Put(head, 0)
+	}
+	p := 0
+	for _, x := range pieces {
+		if head := x.List(); head >= 0 {
+			h.push(head, p)
+		}
+		p += x.Len
+	}
 	if n, ok := audit.Check(c, h.v.Vals()); !ok {
 		t.Fatalf("of %v the rule %d does not hold", c, n)
 	}
@@ -787,16 +696,16 @@ func (h heap) outside() []int {
 // wantLists asks whether all lists have their pages, in their order, both ways, the pages of none have no links, and no other cell is another one than it was.
 func (h heap) wantLists(t *testing.T, what string, was []uint32) {
 	t.Helper()
-	want := slices.Clone(was)
+	want := trial.Heap{Config: h.c, Vals: slices.Clone(was)}
 	for p := range h.c.Pages {
-		want[next(h.c, p)], want[prev(h.c, p)] = 0, 0
+		want.Vals[place.Next(h.c, p)], want.Vals[place.Prev(h.c, p)] = 0, 0
 	}
 	for _, head := range heads() {
-		lay(h.c, want, head, h.lists[head]...)
+		want.Relink(head, h.lists[head]...)
 		wantWalk(t, h.v, h.c, head, h.lists[head]...)
 	}
-	if got := h.v.Vals(); !slices.Equal(got, want) {
-		t.Fatalf("%s: the values of %v are %v, not %v", what, h.c, got, want)
+	if got := h.v.Vals(); !slices.Equal(got, want.Vals) {
+		t.Fatalf("%s: the values of %v are %v, not %v", what, h.c, got, want.Vals)
 	}
 }
 
@@ -869,16 +778,16 @@ func TestPullOfWhatWasPushed(t *testing.T) {
 // P13.4: long rows of pushes and pulls by chance, with pages that go from list to list.
 func TestLongRows(t *testing.T) {
 	for seed, c := range heaps {
-		by := chance(seed)
+		by := trial.Chance(seed)
 		h := heapOf(t, c)
 		was := h.v.Vals()
 		for turn := range 600 {
-			head := by.pick(heads()...)
+			head := by.Pick(heads()...)
 			out := h.outside()
-			if pages := h.lists[head]; len(pages) > 0 && (len(out) == 0 || by.next(2) == 0) {
-				h.pull(head, by.pick(pages...))
+			if pages := h.lists[head]; len(pages) > 0 && (len(out) == 0 || by.Next(2) == 0) {
+				h.pull(head, by.Pick(pages...))
 			} else if len(out) > 0 {
-				h.push(head, by.pick(out...))
+				h.push(head, by.Pick(out...))
 			}
 			h.wantLists(t, fmt.Sprintf("turn %d", turn), was)
 		}

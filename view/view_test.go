@@ -6,6 +6,7 @@ import (
 	"testing"
 
 	"nacre/api"
+	"nacre/trial"
 	"nacre/view"
 )
 
@@ -541,26 +542,17 @@ func TestExample(t *testing.T) {
 	wantMissing(t, v, 1)
 }
 
-// chance is a row of numbers that looks like one by chance.
-type chance uint32
-
-// next is the next number, below n.
-func (c *chance) next(n int) int {
-	*c = *c*1664525 + 1013904223
-	return int(*c>>16) % n
-}
-
 // row is a row of acts that a change could make: what is got decides what is put, and where.
 func row(v *view.View, seed, acts int) (got []uint32) {
-	c := chance(seed)
+	c := trial.Chance(seed)
 	for range acts {
-		i := c.next(14) - 1
-		if c.next(3) > 0 {
+		i := c.Next(14) - 1
+		if c.Next(3) > 0 {
 			val := v.Get(i)
 			got = append(got, val)
-			c ^= chance(val)
+			c ^= trial.Chance(val)
 		} else {
-			v.Put(i, uint32(c.next(5)))
+			v.Put(i, uint32(c.Next(5)))
 		}
 	}
 	return got
@@ -654,13 +646,13 @@ func (p *plain) wantSame(t *testing.T, v *view.View, whole bool) {
 // P11.1 to P11.3: long rows of gets and puts, held against a View whose rules are written out.
 func TestLongRows(t *testing.T) {
 	for seed := range 400 {
-		c := chance(seed)
+		c := trial.Chance(seed)
 		p := &plain{missing: -1}
 		var l []api.Pair
 		whole := seed%4 == 0
 		for i := range 12 {
-			p.vals[i] = uint32(c.next(4))
-			if p.knows[i] = whole || c.next(8) > 0; p.knows[i] {
+			p.vals[i] = uint32(c.Next(4))
+			if p.knows[i] = whole || c.Next(8) > 0; p.knows[i] {
 				l = append(l, api.Pair{Cell: i, Val: p.vals[i]})
 			}
 		}
@@ -670,8 +662,8 @@ func TestLongRows(t *testing.T) {
 		}
 		p.wantSame(t, v, whole)
 		for range 60 {
-			i, val := c.next(16)-2, uint32(c.next(4))
-			if c.next(2) == 0 {
+			i, val := c.Next(16)-2, uint32(c.Next(4))
+			if c.Next(2) == 0 {
 				wantGet(t, v, i, p.get(i))
 			} else {
 				v.Put(i, val)
