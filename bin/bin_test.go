@@ -16,31 +16,14 @@ import (
 // eight is the configuration of eight pages whose cells some tests write out: Info of the page p is the cell 34 and 6 times p, Foot, Next and Prev the three behind it; Bin(k) is the cell 2 and k.
 var eight = api.Config{Threads: 1, Pages: 8, Shift: 10}
 
-// rights are right configurations, the least and the greatest among them.
-var rights = []api.Config{
-	{Threads: 1, Pages: 4, Shift: 10}, {Threads: 16, Pages: 4, Shift: 20}, eight, {Threads: 3, Pages: 33, Shift: 12},
-	{Threads: 1, Pages: 1024, Shift: 20}, {Threads: 16, Pages: 1024, Shift: 10},
-}
-
-// wrongs are configurations that are not right, and have pages.
-var wrongs = []api.Config{
-	{Threads: 0, Pages: 8, Shift: 10}, {Threads: 17, Pages: 8, Shift: 10}, {Threads: -1, Pages: 8, Shift: 10},
-	{Threads: 1, Pages: 3, Shift: 10}, {Threads: 1, Pages: 1, Shift: 10}, {Threads: 1, Pages: 1025, Shift: 10},
-	{Threads: 1, Pages: 8, Shift: 9}, {Threads: 1, Pages: 8, Shift: 21}, {Threads: 1, Pages: 8, Shift: -1},
-	{Threads: 0, Pages: 1024, Shift: 10}, {Threads: 1, Pages: 1 << 14, Shift: 10},
-}
-
-// pageless are configurations that have no pages.
-var pageless = []api.Config{{}, {Threads: 1, Pages: 0, Shift: 10}, {Threads: 1, Pages: -8, Shift: 10}, {Threads: 1, Pages: math.MinInt, Shift: 10}}
-
-// vast are configurations that are not right, and have very many pages.
-var vast = []api.Config{{Threads: 1, Pages: 1 << 32, Shift: 10}, {Threads: 1, Pages: math.MaxInt, Shift: 10}}
-
-// noPages are numbers of no page of a configuration of at most 1 << 14, also those of which the low bits are one's.
-var noPages = []int{
-	-1, -2, -8, -1024, -1 << 16, -1 << 31, -1 << 32, -1<<32 + 2, math.MinInt, math.MinInt + 2,
-	1 << 14, 1 << 16, 1<<16 + 2, 1 << 31, 1<<31 + 2, 1 << 32, 1<<32 + 2, 1 << 60, math.MaxInt - 1, math.MaxInt,
-}
+// Configurations of each sort, and numbers that are no page's.
+var (
+	rights   = trial.Rights(eight)
+	wrongs   = trial.Wrongs(eight)
+	pageless = trial.Pageless(eight)
+	vast     = trial.Vast(eight)
+	noPages  = trial.NoPages()
+)
 
 // noCounts are numbers of pages that no configuration of at most 1 << 14 has.
 var noCounts = append([]int{0, 1<<14 + 1}, noPages...)

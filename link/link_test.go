@@ -20,28 +20,13 @@ var six = api.Config{Threads: 2, Pages: 6, Shift: 10}
 // bin is the head of the list that those tests have: that of the bin 1.
 const bin = 3
 
-// rights are right configurations, the least and the greatest among them.
-var rights = []api.Config{
-	{Threads: 1, Pages: 4, Shift: 10}, {Threads: 16, Pages: 4, Shift: 20}, six, {Threads: 3, Pages: 33, Shift: 12},
-	{Threads: 1, Pages: 1024, Shift: 20}, {Threads: 16, Pages: 1024, Shift: 10},
-}
-
-// wrongs are configurations that are not right, and have pages.
-var wrongs = []api.Config{
-	{Threads: 0, Pages: 6, Shift: 10}, {Threads: 17, Pages: 6, Shift: 10}, {Threads: -1, Pages: 6, Shift: 10},
-	{Threads: 2, Pages: 3, Shift: 10}, {Threads: 2, Pages: 1, Shift: 10}, {Threads: 2, Pages: 1025, Shift: 10},
-	{Threads: 2, Pages: 6, Shift: 9}, {Threads: 2, Pages: 6, Shift: 21}, {Threads: 2, Pages: 6, Shift: -1},
-	{Threads: 2, Pages: 1 << 17, Shift: 10},
-}
-
-// pageless are configurations that have no pages.
-var pageless = []api.Config{{}, {Threads: 2, Pages: 0, Shift: 10}, {Threads: 2, Pages: -6, Shift: 10}, {Threads: 2, Pages: math.MinInt, Shift: 10}}
-
-// noPages are numbers of no page of a configuration of fewer than 4096, also those of which the low bits are one's.
-var noPages = []int{
-	-1, -2, -6, -1024, -1 << 16, -1 << 31, -1 << 32, -1<<32 + 2, math.MinInt, math.MinInt + 2,
-	4096, 1 << 16, 1<<16 + 2, 1 << 31, 1<<31 + 2, 1 << 32, 1<<32 + 2, 1 << 60, math.MaxInt - 1, math.MaxInt,
-}
+// Configurations of each sort, and numbers that are no page's.
+var (
+	rights   = trial.Rights(six)
+	wrongs   = trial.Wrongs(six)
+	pageless = trial.Pageless(six)
+	noPages  = trial.NoPages()
+)
 
 // noLinks are values that are the link of no page of the six.
 var noLinks = []uint32{7, 8, 255, 256 + 3, 1<<16 + 3, 1 << 31, 1<<31 + 3, math.MaxUint32 - 1, math.MaxUint32}
