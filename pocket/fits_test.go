@@ -1,7 +1,6 @@
 package pocket_test
 
 import (
-	"cmp"
 	"fmt"
 	"slices"
 	"testing"
@@ -30,49 +29,8 @@ func slotSize(shift, k int) int64 {
 	return int64(1) << shift / int64(slotsOf[k]) / 16 * 16
 }
 
-// hand is an address that stands in the pocket k.
-type hand struct {
-	k int
-	a int64
-}
-
-// byAddress orders what is at hand by class and address.
-func byAddress(x, y hand) int {
-	return cmp.Or(cmp.Compare(x.k, y.k), cmp.Compare(x.a, y.a))
-}
-
-// atHand is the slots of such pieces that are taken and not live.
-func atHand(c api.Config, pieces ...trial.Piece) []hand {
-	var l []hand
-	p := 0
-	for _, x := range pieces {
-		for s := range 32 {
-			if x.Taken&^x.Live>>s&1 == 1 {
-				l = append(l, hand{x.Class, int64(p+1)<<c.Shift + int64(s)*slotSize(c.Shift, x.Class)})
-			}
-		}
-		p += x.Len
-	}
-	slices.SortFunc(l, byAddress)
-	return l
-}
-
-// inPockets is what stands in the pockets of all threads.
-func inPockets(all []api.Pockets) []hand {
-	var l []hand
-	for _, p := range all {
-		for k := range p {
-			for _, a := range p[k] {
-				l = append(l, hand{k, a})
-			}
-		}
-	}
-	slices.SortFunc(l, byAddress)
-	return l
-}
-
 // isFit tells whether the pockets fit a heap in which just this is at hand.
-func isFit(c api.Config, slots []hand, all []api.Pockets) bool {
+func isFit(c api.Config, slots []trial.Hand, all []api.Pockets) bool {
 	for _, p := range all {
 		for _, l := range p {
 			if len(l) > room {
@@ -80,7 +38,7 @@ func isFit(c api.Config, slots []hand, all []api.Pockets) bool {
 			}
 		}
 	}
-	return len(all) == c.Threads && slices.Equal(inPockets(all), slots)
+	return len(all) == c.Threads && slices.Equal(trial.InPockets(all), slots)
 }
 
 func wantFits(t *testing.T, what string, c api.Config, vals []uint32, all []api.Pockets, want bool) {
@@ -267,7 +225,7 @@ func TestFitsChangesNothing(t *testing.T) {
 		pair(4, []int64{1280, 1024, 1280}, 8, 2560, 2048, 3, 2, 1),
 	} {
 		all := threads(nobody, p)
-		at := threads(nobody, copied(p))
+		at := threads(nobody, trial.CopyPockets(p))
 		pocket.Fits(eight, vals, all)
 		if !slices.Equal(vals, was) || !slices.EqualFunc(all, at, isSame) {
 			t.Fatalf("the values are %v, and the Pockets %v, not %v, and %v", vals, all, was, at)
@@ -275,44 +233,11 @@ func TestFitsChangesNothing(t *testing.T) {
 	}
 }
 
-// thin makes so many slots live of such pieces that of each class at most as many are at hand as pockets have room for.
-func thin(by *trial.Chance, c api.Config, pieces []trial.Piece) []trial.Piece {
-	var count [classes]int
-	most := by.Next(room*c.Threads + 1)
-	for i, x := range pieces {
-		for s := range 32 {
-			if x.Taken&^x.Live>>s&1 == 0 {
-				continue
-			}
-			if count[x.Class] == most || by.Next(4) == 0 {
-				pieces[i].Live |= 1 << s
-			} else {
-				count[x.Class]++
-			}
-		}
-	}
-	return pieces
-}
-
-// dealt is the Pockets of all threads among which so many slots are dealt out by chance.
-func dealt(by *trial.Chance, c api.Config, slots []hand) []api.Pockets {
-	all := make([]api.Pockets, c.Threads)
-	for _, x := range slots {
-		at := by.Next(c.Threads)
-		for len(all[at][x.k]) == room {
-			at = (at + 1) % c.Threads
-		}
-		to := by.Next(len(all[at][x.k]) + 1)
-		all[at][x.k] = slices.Insert(all[at][x.k], to, x.a)
-	}
-	return all
-}
-
 // spoilt is the Pockets, with something else in them by chance, which may be as good.
 func spoilt(by *trial.Chance, c api.Config, all []api.Pockets) []api.Pockets {
 	all = slices.Clone(all)
 	for i := range all {
-		all[i] = copied(all[i])
+		all[i] = trial.CopyPockets(all[i])
 	}
 	t, k, to := by.Next(len(all)), by.Next(classes), by.Next(classes)
 	from := by.Next(len(all))
@@ -357,9 +282,9 @@ func TestFitsByChance(t *testing.T) {
 		if seed < len(rights) {
 			c = rights[seed]
 		}
-		pieces := thin(&by, c, by.Pieces(c.Pages))
-		vals, slots := trial.Lay(c, pieces...).Vals, atHand(c, pieces...)
-		all := dealt(&by, c, slots)
+		pieces := by.Thin(c, by.Pieces(c.Pages))
+		vals, slots := trial.Lay(c, pieces...).Vals, trial.AtHand(c, pieces...)
+		all := by.Deal(c, slots)
 		wantFits(t, fmt.Sprintf("heap %d", seed), c, vals, all, true)
 		for range 20 {
 			other := spoilt(&by, c, all)
@@ -383,8 +308,8 @@ func TestFitsWhereTooManyAreAtHand(t *testing.T) {
 	pieces := []trial.Piece{of(8, 3, 0), of(8, 3, 0), of(8, 3, 0), used(1)}
 	vals := trial.Lay(c, pieces...).Vals
 	var l []int64
-	for _, x := range atHand(c, pieces...) {
-		l = append(l, x.a)
+	for _, x := range trial.AtHand(c, pieces...) {
+		l = append(l, x.Addr)
 	}
 	for n := range len(l) + 1 {
 		wantFits(t, "too many", c, vals, threads(one(8, l[:n]...)), false)

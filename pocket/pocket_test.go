@@ -42,14 +42,6 @@ func isSame(a, b api.Pockets) bool {
 	return slices.EqualFunc(a[:], b[:], slices.Equal[[]int64])
 }
 
-// copied is the same Pockets, which share no list with what they were copied from.
-func copied(p api.Pockets) api.Pockets {
-	for k, l := range p {
-		p[k] = append([]int64(nil), l...)
-	}
-	return p
-}
-
 // with is the Pockets, whose pocket k has these addresses instead.
 func with(p api.Pockets, k int, l ...int64) api.Pockets {
 	p[k] = l
@@ -286,7 +278,7 @@ func TestNothingIsChanged(t *testing.T) {
 		ground := []int64{1024, 2048, 1040, 7, 7, 7, 7, 7}
 		was := slices.Clone(ground)
 		p := with(filled(3), k, ground[:3]...)
-		at := copied(p)
+		at := trial.CopyPockets(p)
 		one := wantPush(t, p, k, 1)
 		two := wantPush(t, p, k, 2)
 		_, less, _ := pocket.Pop(p, k)
@@ -327,7 +319,7 @@ func TestSame(t *testing.T) {
 	for _, n := range []int{0, 1, 2, 4, 5} {
 		p := filled(n)
 		wantSame(t, p, p, true)
-		wantSame(t, p, copied(p), true)
+		wantSame(t, p, trial.CopyPockets(p), true)
 		for k := range classes {
 			wantSame(t, p, with(p, k, append(slices.Clone(p[k]), 9)...), false)
 			wantSame(t, p, with(p, k, append([]int64{9}, p[k]...)...), false)
@@ -377,7 +369,7 @@ func TestLongRows(t *testing.T) {
 			if by.Next(4) == 0 {
 				_, p, _ = pocket.Pop(p, k)
 			}
-			told, as = append(told, p), append(as, copied(p))
+			told, as = append(told, p), append(as, trial.CopyPockets(p))
 		}
 		for i := range told {
 			wantPockets(t, "told earlier", told[i], as[i])
