@@ -61,13 +61,6 @@ func slabs(t *testing.T, seed int) heap {
 // copied is a heap that holds the same.
 func (h heap) copied() heap { return heap{h.Copied()} }
 
-// name has the roots name live blocks, if there are any.
-func (h heap) name() {
-	for i, b := range audit.Live(h.C, h.V.Vals()) {
-		h.V.Put(place.Root(i%api.Roots), uint32(b.Addr))
-	}
-}
-
 // wantKept asks whether there is a heap that holds just what it is to hold, and of which the live blocks, and the roots, are those of the values that were.
 func (h heap) wantKept(t *testing.T, was []uint32, what string) {
 	t.Helper()
@@ -172,7 +165,7 @@ func reversed(l []slot) []slot {
 // P16.1, P16.3: behind Pick of each class, and of each number of slots, there is a heap that holds the same, in which these slots are taken and not live; behind Give of them, in any order, it holds what it held.
 func TestPickOfHeaps(t *testing.T) {
 	for i, h := range heaps(t) {
-		h.name()
+		h.Name()
 		was := h.V.Vals()
 		by := trial.Chance(i)
 		for k := range 9 {
@@ -222,7 +215,7 @@ func TestPickOfAll(t *testing.T) {
 // P16.2, P16.3: behind Give of each slot that is taken and not live there is a heap that holds the same, in which that slot is free; a slab of which it was the only one is none any more.
 func TestGiveOfHeaps(t *testing.T) {
 	for i, h := range heaps(t) {
-		h.name()
+		h.Name()
 		was := h.V.Vals()
 		by := trial.Chance(i)
 		for _, at := range some(&by, h.atHand(), 200) {

@@ -83,38 +83,12 @@ func heaps(t *testing.T) []heap {
 // copied is a heap that holds the same, with the same pockets.
 func (h heap) copied() heap { return heap{h.Copied(), slices.Clone(h.all)} }
 
-// name has the roots name live blocks, if there are any.
-func (h heap) name() {
-	for i, b := range audit.Live(h.C, h.V.Vals()) {
-		h.V.Put(place.Root(i%api.Roots), uint32(b.Addr))
-	}
-}
-
-// unname has no root name a block.
-func (h heap) unname() {
-	for i := range api.Roots {
-		h.V.Put(place.Root(i), 0)
-	}
-}
-
 // want asks whether there is a heap that holds just what it is to hold, and the pockets fit it.
 func (h heap) want(t *testing.T, what string) {
 	t.Helper()
 	h.WantHeap(t, what)
 	if !pocket.Fits(h.C, h.V.Vals(), h.all) {
 		t.Fatalf("%s: the pockets %v do not fit the heap of %v", what, h.all, h.C)
-	}
-}
-
-// live are the live blocks.
-func (h heap) live() []api.Block { return audit.Live(h.C, h.V.Vals()) }
-
-// wantMore asks whether the blocks are those others, and just one more.
-func wantMore(t *testing.T, what string, got, others []api.Block, more api.Block) {
-	t.Helper()
-	at := slices.Index(got, more)
-	if at < 0 || !slices.Equal(slices.Delete(slices.Clone(got), at, at+1), others) {
-		t.Fatalf("%s: the live blocks are %v, not %v and %v", what, got, others, more)
 	}
 }
 
@@ -251,7 +225,7 @@ func mixed(by *trial.Chance, l []slot) []slot {
 // P18.1, P18.4: behind Alloc of each class there is a heap that the pockets fit, with one more live block, of the size that the class has; the roots stay as they are.
 func TestAllocOfHeaps(t *testing.T) {
 	for i, h := range heaps(t) {
-		h.name()
+		h.Name()
 		was, _ := audit.State(h.C, h.V.Vals())
 		for k := range classes {
 			g, who := h.copied(), (i+k)%h.C.Threads
@@ -259,7 +233,7 @@ func TestAllocOfHeaps(t *testing.T) {
 			a, ok := g.alloc(t, who, k)
 			g.want(t, what)
 			if ok {
-				wantMore(t, what, g.live(), was.Live, api.Block{Addr: a, Size: class.Size(h.C.Shift, k)})
+				trial.WantMore(t, what, g.Blocks(), was.Live, api.Block{Addr: a, Size: class.Size(h.C.Shift, k)})
 			}
 			if now, _ := audit.State(h.C, g.V.Vals()); now.Roots != was.Roots {
 				t.Fatalf("%s: the roots are %v, not %v", what, now.Roots, was.Roots)
@@ -284,14 +258,14 @@ func TestAllocOfAll(t *testing.T) {
 					}
 				}
 			}
-			was, count := g.live(), 0
+			was, count := g.Blocks(), 0
 			for {
 				if _, ok := g.alloc(t, who, k); !ok {
 					break
 				}
 				count++
 			}
-			if count != most || len(g.live()) != len(was)+count {
+			if count != most || len(g.Blocks()) != len(was)+count {
 				t.Fatalf("heap %d, class %d: %d blocks, not %d", i, k, count, most)
 			}
 			g.want(t, fmt.Sprintf("heap %d, all of the class %d", i, k))
@@ -303,13 +277,13 @@ func TestAllocOfAll(t *testing.T) {
 func TestFreeOfHeaps(t *testing.T) {
 	for i, h := range heaps(t) {
 		by := trial.Chance(i)
-		was, slots := h.live(), mixed(&by, h.liveSlots())
+		was, slots := h.Blocks(), mixed(&by, h.liveSlots())
 		for _, at := range slots[:min(len(slots), 60)] {
 			g := h.copied()
 			what := fmt.Sprintf("heap %d, slot %v", i, at)
 			gone := g.release(t, by.Next(h.C.Threads), at)
 			g.want(t, what)
-			wantMore(t, what, was, g.live(), gone)
+			trial.WantMore(t, what, was, g.Blocks(), gone)
 		}
 	}
 }
@@ -317,7 +291,7 @@ func TestFreeOfHeaps(t *testing.T) {
 // P18.3, P18.4: behind Flush of each pocket there is a heap that the pockets fit, with the same live blocks and roots; flushed again and again the pocket is empty.
 func TestFlushOfHeaps(t *testing.T) {
 	for i, h := range heaps(t) {
-		h.name()
+		h.Name()
 		was, _ := audit.State(h.C, h.V.Vals())
 		for who := range h.C.Threads {
 			for k := range classes {
@@ -399,7 +373,7 @@ func TestLongRows(t *testing.T) {
 // P18.4: a block that is allocated out of a pocket and freed again leaves the heap and the pockets as they were, and so does one that is freed into a pocket and allocated again.
 func TestThereAndBack(t *testing.T) {
 	for i, h := range heaps(t) {
-		h.unname()
+		h.Unname(h.Blocks()...)
 		was := h.V.Vals()
 		for who := range h.C.Threads {
 			for k := range classes {

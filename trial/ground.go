@@ -6,6 +6,7 @@ import (
 
 	"nacre/api"
 	"nacre/audit"
+	"nacre/place"
 	"nacre/view"
 )
 
@@ -104,6 +105,27 @@ func (g Ground) Begins(kinds ...int) []int {
 // Copied is a heap that holds the same, of which nothing was read or put.
 func (g Ground) Copied() Ground {
 	return Ground{g.C, view.Whole(g.V.Vals()), maps.Clone(g.Held)}
+}
+
+// Blocks are the live blocks.
+func (g Ground) Blocks() []api.Block { return audit.Live(g.C, g.V.Vals()) }
+
+// Name has the roots name live blocks, if there are any.
+func (g Ground) Name() {
+	for i, b := range g.Blocks() {
+		g.V.Put(place.Root(i%api.Roots), uint32(b.Addr))
+	}
+}
+
+// Unname has no root name one of these blocks.
+func (g Ground) Unname(blocks ...api.Block) {
+	for i := range api.Roots {
+		for _, b := range blocks {
+			if int64(g.V.Get(place.Root(i))) == b.Addr {
+				g.V.Put(place.Root(i), 0)
+			}
+		}
+	}
 }
 
 // WantHeap asks whether the values are a heap that holds just the spans, and the slots of the slabs, that it is to hold.

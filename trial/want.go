@@ -33,6 +33,15 @@ func WantSame(t T, what string, v, as *view.View) {
 	}
 }
 
+// WantMore asks whether the blocks are those others, and just one more.
+func WantMore(t T, what string, got, others []api.Block, more api.Block) {
+	t.Helper()
+	at := slices.Index(got, more)
+	if at < 0 || !slices.Equal(slices.Delete(slices.Clone(got), at, at+1), others) {
+		t.Fatalf("%s: the live blocks are %v, not %v and %v", what, got, others, more)
+	}
+}
+
 func wantCells(t T, what string, v *view.View, reads []int, writes []api.Pair, missing int) {
 	t.Helper()
 	if got := v.Reads(); !slices.Equal(got, reads) {
