@@ -11,7 +11,6 @@ import (
 	"nacre/audit"
 	"nacre/class"
 	"nacre/place"
-	"nacre/pocket"
 	"nacre/slab"
 	"nacre/small"
 	"nacre/trial"
@@ -19,77 +18,35 @@ import (
 )
 
 // heap is a heap whose small blocks are allocated and freed, and the pockets of its threads, which fit it.
-type heap struct {
-	trial.Ground
-	all []api.Pockets
-}
+type heap struct{ trial.Dealt }
 
 // slot is a slot of a slab.
 type slot struct{ page, s int }
 
-// layHeap lays a heap of pieces, and deals its slots at hand out among the threads.
-func layHeap(t *testing.T, by *trial.Chance, c api.Config, pieces []trial.Piece) heap {
-	t.Helper()
-	pieces = by.Thin(c, pieces)
-	h := heap{trial.LayGround(t, c, pieces...), by.Deal(c, trial.AtHand(c, pieces...))}
-	h.want(t, "laid")
-	return h
-}
-
-// fewClasses is pieces of slabs of two classes alone, most of them not full, with free pages and used ones between.
-func fewClasses(by *trial.Chance, pages int) []trial.Piece {
-	kinds := []int{by.Next(classes), by.Next(classes)}
-	var l []trial.Piece
-	for range pages {
-		k := by.Pick(kinds...)
-		taken := 1 + by.Bits()%trial.Full(k)
-		switch by.Next(8) {
-		case 0:
-			l = append(l, used(1))
-		case 1:
-			l = append(l, free(1))
-		default:
-			l = append(l, of(k, taken, taken&by.Bits()))
-		}
-	}
-	return l
-}
-
 // someHeap is a small heap by chance.
 func someHeap(t *testing.T, by *trial.Chance) heap {
 	t.Helper()
-	c := api.Config{Threads: 1 + by.Next(by.Pick(2, 4, 16)), Pages: 4 + by.Next(by.Pick(4, 12)), Shift: 10 + by.Next(11)}
-	if by.Next(2) == 0 {
-		return layHeap(t, by, c, fewClasses(by, c.Pages))
-	}
-	return layHeap(t, by, c, by.Pieces(c.Pages))
+	return heap{by.SomeDealt(t)}
 }
 
-// heaps are heaps of each sort: of each of the configurations one that is free, and one of pieces; and small ones.
+// heaps are heaps of each sort.
 func heaps(t *testing.T) []heap {
 	t.Helper()
 	var l []heap
-	for i, c := range rights {
-		by := trial.Chance(i)
-		l = append(l, layHeap(t, &by, c, []trial.Piece{free(c.Pages)}), layHeap(t, &by, c, by.Pieces(c.Pages)))
-	}
-	for seed := range 40 {
-		by := trial.Chance(seed)
-		l = append(l, someHeap(t, &by))
+	for _, d := range trial.Dealts(t, rights) {
+		l = append(l, heap{d})
 	}
 	return l
 }
 
 // copied is a heap that holds the same, with the same pockets.
-func (h heap) copied() heap { return heap{h.Copied(), slices.Clone(h.all)} }
+func (h heap) copied() heap { return heap{h.Copied()} }
 
 // want asks whether there is a heap that holds just what it is to hold, and the pockets fit it.
 func (h heap) want(t *testing.T, what string) {
 	t.Helper()
 	h.WantHeap(t, what)
-	if !pocket.Fits(h.C, h.V.Vals(), h.all) {
-		t.Fatalf("%s: the pockets %v do not fit the heap of %v", what, h.all, h.C)
-	}
+	h.WantFits(t, what)
 }
 
 // slotAt is the slot of the class k that begins at an address.
@@ -121,7 +78,7 @@ func (h heap) set(at slot, k int, taken, live bool) {
 
 // next is what Alloc of a thread is to tell, and to leave in its pocket, as far as a slab tells which slots are next; false, if there is no room. The slots are to be held then.
 func (h heap) next(who, k int) (int64, []int64, bool) {
-	if l := h.all[who][k]; len(l) > 0 {
+	if l := h.All[who][k]; len(l) > 0 {
 		a := l[len(l)-1]
 		h.set(h.slotAt(k, a), k, true, true)
 		return a, l[:len(l)-1], true
@@ -144,7 +101,7 @@ func (h heap) next(who, k int) (int64, []int64, bool) {
 // alloc allocates a block of the class k for a thread, and tells its address; false, if there is no room.
 func (h heap) alloc(t *testing.T, who, k int) (int64, bool) {
 	t.Helper()
-	p, was := h.all[who], h.V.Vals()
+	p, was := h.All[who], h.V.Vals()
 	want, left, ok := h.next(who, k)
 	if !ok {
 		wantNone(t, h.V, h.C, p, k)
@@ -156,14 +113,14 @@ func (h heap) alloc(t *testing.T, who, k int) (int64, bool) {
 		t.Fatalf("Alloc(%v, %v, %d) = %d, %t, not %d", h.C, p, k, a, ok, want)
 	}
 	wantPockets(t, "Alloc", q, with(p, k, left...))
-	h.all[who] = q
+	h.All[who] = q
 	return a, true
 }
 
 // release frees a live slot for a thread, and tells the block that it was.
 func (h heap) release(t *testing.T, who int, at slot) api.Block {
 	t.Helper()
-	p, k := h.all[who], h.Held[at.page].Class
+	p, k := h.All[who], h.Held[at.page].Class
 	a, _ := addr.At(h.C, k, at.page, at.s)
 	q := small.Free(h.V, h.C, p, at.page, at.s)
 	if len(p[k]) < 4 {
@@ -173,14 +130,14 @@ func (h heap) release(t *testing.T, who int, at slot) api.Block {
 		h.set(at, k, false, false)
 	}
 	wantPockets(t, "Free", q, p)
-	h.all[who] = q
+	h.All[who] = q
 	return api.Block{Addr: a, Size: class.Size(h.C.Shift, k)}
 }
 
 // flush flushes the pocket k of a thread, and tells how many slots were given back.
 func (h heap) flush(t *testing.T, who, k int) int {
 	t.Helper()
-	p := h.all[who]
+	p := h.All[who]
 	n, q := small.Flush(h.V, h.C, p, k)
 	var stay []int64
 	for _, a := range p[k] {
@@ -195,7 +152,7 @@ func (h heap) flush(t *testing.T, who, k int) int {
 		t.Fatalf("Flush(%v, %v, %d) = %d, and leaves %v", h.C, p, k, n, q)
 	}
 	wantPockets(t, "Flush", q, with(p, k, stay...))
-	h.all[who] = q
+	h.All[who] = q
 	return n
 }
 
@@ -250,7 +207,7 @@ func TestAllocOfAll(t *testing.T) {
 		}
 		for k := range classes {
 			g, who := h.copied(), i%h.C.Threads
-			most := len(g.all[who][k]) + int(g.V.Vals()[place.Free])*class.Slots(k)
+			most := len(g.All[who][k]) + int(g.V.Vals()[place.Free])*class.Slots(k)
 			for _, x := range g.Held {
 				if x.Kind == api.InSlab && x.Class == k {
 					for s := range class.Slots(k) {
@@ -296,7 +253,7 @@ func TestFlushOfHeaps(t *testing.T) {
 		for who := range h.C.Threads {
 			for k := range classes {
 				g := h.copied()
-				many := len(g.all[who][k])
+				many := len(g.All[who][k])
 				for many > 0 {
 					n := g.flush(t, who, k)
 					g.want(t, fmt.Sprintf("heap %d, thread %d, class %d", i, who, k))
@@ -304,12 +261,12 @@ func TestFlushOfHeaps(t *testing.T) {
 						t.Fatalf("heap %d: the state is %v, not %v", i, now, was)
 					}
 					if n == 0 {
-						t.Fatalf("heap %d: %d are left in %v", i, many, g.all[who][k])
+						t.Fatalf("heap %d: %d are left in %v", i, many, g.All[who][k])
 					}
 					many -= n
 				}
-				if n := g.flush(t, who, k); n != 0 || len(g.all[who][k]) > 0 {
-					t.Fatalf("heap %d: %d more, %v left", i, n, g.all[who][k])
+				if n := g.flush(t, who, k); n != 0 || len(g.All[who][k]) > 0 {
+					t.Fatalf("heap %d: %d more, %v left", i, n, g.All[who][k])
 				}
 			}
 		}
@@ -377,19 +334,19 @@ func TestThereAndBack(t *testing.T) {
 		was := h.V.Vals()
 		for who := range h.C.Threads {
 			for k := range classes {
-				if len(h.all[who][k]) == 0 {
+				if len(h.All[who][k]) == 0 {
 					continue
 				}
 				g := h.copied()
 				a, _ := g.alloc(t, who, k)
 				g.release(t, who, g.slotAt(k, a))
 				g.WantVals(t, was)
-				wantPockets(t, fmt.Sprintf("heap %d, there and back", i), g.all[who], h.all[who])
+				wantPockets(t, fmt.Sprintf("heap %d, there and back", i), g.All[who], h.All[who])
 			}
 		}
 		for _, at := range h.liveSlots() {
 			k, who := h.Held[at.page].Class, i%h.C.Threads
-			if len(h.all[who][k]) == 4 {
+			if len(h.All[who][k]) == 4 {
 				continue
 			}
 			g := h.copied()
@@ -398,7 +355,7 @@ func TestThereAndBack(t *testing.T) {
 				t.Fatalf("heap %d: %d behind %v", i, a, gone)
 			}
 			g.WantVals(t, was)
-			wantPockets(t, fmt.Sprintf("heap %d, back and there", i), g.all[who], h.all[who])
+			wantPockets(t, fmt.Sprintf("heap %d, back and there", i), g.All[who], h.All[who])
 			if !maps.Equal(g.Held, h.Held) {
 				t.Fatalf("heap %d: it holds %v, not %v", i, g.Held, h.Held)
 			}

@@ -160,7 +160,7 @@ func TestAsTheLinesSay(t *testing.T) {
 		vals := h.V.Vals()
 		v, as := by.Twins(vals)
 		on := plain{as, h.C}
-		q := h.all[by.Next(len(h.all))]
+		q := h.All[by.Next(len(h.All))]
 		k := by.Pick(by.Next(classes), by.Next(classes), by.Next(classes), 9, -1)
 		for at := range classes {
 			if len(q[at]) > 0 && by.Next(3) == 0 {
@@ -187,7 +187,7 @@ func TestRowsAsTheLinesSay(t *testing.T) {
 		h := someHeap(t, &by)
 		v, as := by.Twins(h.V.Vals())
 		on := plain{as, h.C}
-		q := h.all[0]
+		q := h.All[0]
 		kinds := []int{by.Next(classes), by.Next(classes), 8}
 		for range 30 {
 			if as.Missing() >= 0 {
