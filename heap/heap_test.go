@@ -46,20 +46,20 @@ func named(vals []uint32, l ...int) []uint32 {
 	return vals
 }
 
-// Operations, as tests write them.
-func alloc(size int64) api.Op           { return api.Op{Kind: 1, A: size} }
-func release(a int64) api.Op            { return api.Op{Kind: 2, A: a} }
-func realloc(a, size int64) api.Op      { return api.Op{Kind: 3, A: a, B: size} }
-func allocRoot(root, size int64) api.Op { return api.Op{Kind: 4, A: root, B: size} }
-func setRoot(root, a int64) api.Op      { return api.Op{Kind: 5, A: root, B: a} }
-func getRoot(root int64) api.Op         { return api.Op{Kind: 6, A: root} }
-func usable(a int64) api.Op             { return api.Op{Kind: 7, A: a} }
-func stats() api.Op                     { return api.Op{Kind: 8} }
-func flush(k int64) api.Op              { return api.Op{Kind: 9, A: k} }
-
-// Results, as tests write them.
-func done(out, aux int64) api.Result { return api.Result{Out: out, Aux: aux} }
-func failed(e api.Errno) api.Result  { return api.Result{Err: e} }
+// Operations, and results, as tests write them.
+var (
+	alloc     = trial.Alloc
+	release   = trial.Release
+	realloc   = trial.Realloc
+	allocRoot = trial.AllocRoot
+	setRoot   = trial.SetRoot
+	getRoot   = trial.GetRoot
+	usable    = trial.Usable
+	stats     = trial.Stats
+	flush     = trial.Flush
+	done      = trial.Done
+	failed    = trial.Failed
+)
 
 // empty is Pockets in which nothing stands.
 var empty api.Pockets

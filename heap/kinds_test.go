@@ -17,9 +17,6 @@ var noSizes = []int64{0, -1, -1024, 8193, 16384, 1 << 30, 1 << 31, 1 << 32, 1<<3
 // noBlocks are addresses at which no block of a heap of eight pages begins, and of which nothing is read: no byte has them.
 var noBlocks = []int64{-1, -1024, 1, 32, 1023, 9216, 9217, 1 << 31, 1 << 32, 1<<32 + 1024, math.MinInt64, math.MinInt64 + 1024, math.MaxInt64}
 
-// noRoots are numbers of no root.
-var noRoots = []int64{-1, -8, 8, 9, 256, 1 << 32, 1<<32 + 1, 1 << 62, math.MinInt64, math.MinInt64 + 1, math.MaxInt64}
-
 // binsFrom is the cells of the bins from the k-th one on.
 func binsFrom(k int) []int {
 	var l []int
@@ -134,7 +131,7 @@ func TestNoBlock(t *testing.T) {
 // P23.3: a number of no root: ErrRoot of OpAllocRoot, OpSetRoot and OpGetRoot, also where the size, or the address, may not be; nothing is read.
 func TestNoRoot(t *testing.T) {
 	vals := laid(used(2), free(6))
-	for _, i := range noRoots {
+	for _, i := range trial.NoRoots() {
 		for _, o := range []api.Op{allocRoot(i, 1), allocRoot(i, 0), allocRoot(i, 9000), allocRoot(i, 8192), setRoot(i, 0), setRoot(i, 1024), setRoot(i, 7), getRoot(i)} {
 			deed{vals: vals, o: o, r: failed(5)}.want(t)
 		}

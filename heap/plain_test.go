@@ -172,66 +172,6 @@ func (p *plain) wantDo(t *testing.T, v *view.View, who, num int, o api.Op) {
 	trial.WantSame(t, "Do", v, p.View)
 }
 
-// someSize is a size by chance: most often one that a block has, or nearly.
-func someSize(by *trial.Chance, c api.Config) int64 {
-	edge := int64(by.Pick(-1, 0, 0, 0, 1))
-	switch by.Next(8) {
-	case 0, 1, 2:
-		return class.Size(c.Shift, by.Next(classes)) + edge
-	case 3, 4, 5:
-		return int64(1+by.Next(c.Pages))<<c.Shift + edge
-	case 6:
-		return int64(1+by.Next(min(c.Pages, 3)))<<c.Shift + edge
-	}
-	return int64(by.Pick(0, -1, 1, math.MaxInt, math.MinInt, 1<<32, 1<<32+1, 1<<30, 1<<30+1))
-}
-
-// someAddress is an address by chance: most often that of a live block, or of one that is at hand, or of a page; else one beside it, or any one.
-func someAddress(by *trial.Chance, c api.Config, blocks []api.Block, p api.Pockets) int64 {
-	a := int64(1+by.Next(c.Pages)) << c.Shift
-	if len(blocks) > 0 && by.Next(6) > 0 {
-		a = blocks[by.Next(len(blocks))].Addr
-	}
-	if l := p[by.Next(classes)]; len(l) > 0 && by.Next(4) == 0 {
-		a = l[by.Next(len(l))]
-	}
-	switch by.Next(12) {
-	case 0:
-		return a + int64(by.Pick(-16, -1, 1, 16, 32, 1<<32))
-	case 1:
-		return int64(by.Pick(0, -1, 1, 31, 1023, 1<<31, 1<<32+1024, math.MinInt, math.MaxInt, -1024))
-	}
-	return a
-}
-
-// someOp is an operation by chance that is right.
-func someOp(by *trial.Chance, c api.Config, blocks []api.Block, p api.Pockets) api.Op {
-	size, a := someSize(by, c), someAddress(by, c, blocks, p)
-	i := int64(by.Next(roots))
-	if by.Next(12) == 0 {
-		i = noRoots[by.Next(len(noRoots))]
-	}
-	switch kind := by.Pick(1, 1, 2, 2, 2, 3, 3, 3, 4, 5, 6, 7, 8, 9); kind {
-	case 1:
-		return alloc(size)
-	case 2:
-		return release(a)
-	case 3:
-		return realloc(a, size)
-	case 4:
-		return allocRoot(i, size)
-	case 5:
-		return setRoot(i, a*int64(by.Pick(0, 1, 1)))
-	case 6:
-		return getRoot(i)
-	case 7:
-		return usable(a)
-	case 8:
-		return stats()
-	}
-	return flush(int64(by.Pick(by.Next(classes), by.Next(classes), by.Next(classes), by.Next(classes), 9, -1)))
-}
-
 // P23.1 to P23.3: one by chance on heaps of which all cells are known, or not, with pockets that fit them: what is told, left, read, put and missing is what the chapter's lines say.
 func TestAsTheLinesSay(t *testing.T) {
 	for seed := range 6000 {
@@ -244,7 +184,7 @@ func TestAsTheLinesSay(t *testing.T) {
 		for range 4 {
 			v, as := by.Twins(d.V.Vals())
 			on := &plain{as, d.C, d.All[who]}
-			on.wantDo(t, v, who, by.Pick(1, 2, 1+by.Next(1<<15), maxNum), someOp(&by, d.C, blocks, d.All[who]))
+			on.wantDo(t, v, who, by.Pick(1, 2, 1+by.Next(1<<15), maxNum), by.Op(d.C, blocks, d.All[who]))
 		}
 	}
 }
@@ -267,7 +207,7 @@ func TestRowsAsTheLinesSay(t *testing.T) {
 				d.V = view.Whole(vals)
 				blocks = d.Blocks()
 			}
-			on.wantDo(t, v, who, 1+num, someOp(&by, d.C, blocks, on.q))
+			on.wantDo(t, v, who, 1+num, by.Op(d.C, blocks, on.q))
 		}
 	}
 }
@@ -298,7 +238,7 @@ func TestOfNoHeapAsTheLinesSay(t *testing.T) {
 			on.q = empty
 		}
 		for num := range 8 {
-			on.wantDo(t, v, by.Next(d.C.Threads), 1+num, someOp(&by, d.C, blocks, on.q))
+			on.wantDo(t, v, by.Next(d.C.Threads), 1+num, by.Op(d.C, blocks, on.q))
 		}
 	}
 }
@@ -317,7 +257,7 @@ func TestAnyArguments(t *testing.T) {
 				}
 			}
 			was := trial.CopyPockets(p)
-			o := someOp(&by, eight, trial.Ground{C: eight, V: view.Whole(vals)}.Blocks(), p)
+			o := by.Op(eight, trial.Ground{C: eight, V: view.Whole(vals)}.Blocks(), p)
 			who, num := by.Pick(0, 0, 0, 1, -1, 15), by.Pick(1, 1, 1, 0, -1, maxNum)
 			v, _ := by.Twins(vals)
 			for _, v := range []*view.View{v, nil, {}, view.Whole(nil), view.Whole(vals[:40])} {

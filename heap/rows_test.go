@@ -265,7 +265,7 @@ func TestOneOfEach(t *testing.T) {
 		blocks := s.Blocks()
 		for turn := range 60 {
 			who := by.Next(s.C.Threads)
-			o := someOp(&by, s.C, blocks, s.All[who])
+			o := by.Op(s.C, blocks, s.All[who])
 			s.copied().do(t, fmt.Sprintf("heap %d, turn %d", i, turn), who, 1+turn, o)
 		}
 	}
@@ -277,7 +277,7 @@ func TestLongRows(t *testing.T) {
 		by := trial.Chance(i)
 		for turn := range 200 {
 			who := by.Next(s.C.Threads)
-			o := someOp(&by, s.C, s.Blocks(), s.All[who])
+			o := by.Op(s.C, s.Blocks(), s.All[who])
 			s.do(t, fmt.Sprintf("heap %d, turn %d", i, turn), who, 1+turn, o)
 		}
 	}
@@ -291,7 +291,7 @@ func TestTillThereIsNoRoom(t *testing.T) {
 		}
 		by := trial.Chance(i)
 		for turn := range 6 {
-			size := someSize(&by, s.C)
+			size := by.Size(s.C)
 			if s.usable(size) == 0 {
 				continue
 			}
