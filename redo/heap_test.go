@@ -29,8 +29,8 @@ func (k kept) want(t *testing.T, what string, w []uint64, vals []uint32) {
 	if !ok {
 		t.Fatalf("%s: words of %v are not tidied", what, k.C)
 	}
-	wantSettled(t, what, memory{k.C, w}, vals, tidy)
-	wantSettled(t, "tidied", memory{k.C, tidy}, vals, tidy)
+	wantSettled(t, what, trial.Memory{Config: k.C, W: w}, vals, tidy)
+	wantSettled(t, "tidied", trial.Memory{Config: k.C, W: tidy}, vals, tidy)
 	for i, val := range vals {
 		if got := mark.Val(tidy[place.Word(k.C, i)]); got != val {
 			t.Fatalf("%s: the cell %d is %d, not %d", what, i, got, val)

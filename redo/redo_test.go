@@ -26,78 +26,23 @@ const (
 	maxStamp = math.MaxUint32
 )
 
-// junk is a word that is no tip, no note and no entry.
-const junk = math.MaxUint64
-
-// cells is how many cells there are, and the three below it tell where the note and the log of the maker t begin, and how many words there are, as chapter 7 has them.
-func cells(c api.Config) int         { return 30 + 4*c.Threads + 6*c.Pages }
-func noteAt(c api.Config, t int) int { return (16+cells(c)+7)/8*8 + 120*t + 16 }
-func logAt(c api.Config, t int) int  { return noteAt(c, t) + 8 }
-func size(c api.Config) int          { return noteAt(c, c.Threads+1) - 16 }
-
-// memory is words of a configuration, as a test lays them.
-type memory struct {
-	api.Config
-	w []uint64
-}
-
-// blank is a memory whose cells have the stamp 0, and each its number as its value; all other words are junk, but for the tip.
-func blank(c api.Config, s uint32, u int) memory {
-	m := memory{c, slices.Repeat([]uint64{junk}, size(c))}
-	for i := range cells(c) {
-		m.cell(i, 0, uint32(i))
-	}
-	m.w[8] = joined(s, uint32(u))
-	return m
-}
-
-func joined(hi, lo uint32) uint64 { return uint64(hi)<<32 | uint64(lo) }
-
-func (m memory) cell(i int, s, val uint32) { m.w[16+i] = joined(s, val) }
-
-func (m memory) note(t int, s, low uint32) { m.w[noteAt(m.Config, t)] = joined(s, low) }
-
-// log lays entries as words, from the first one on.
-func (m memory) log(t int, l ...api.Pair) {
-	for i, p := range l {
-		m.w[logAt(m.Config, t)+i] = joined(uint32(p.Cell), p.Val)
-	}
-}
-
-// open lays an open note, and its entries.
-func (m memory) open(t int, s uint32, l ...api.Pair) {
-	m.note(t, s, 1<<31|uint32(len(l)))
-	m.log(t, l...)
-}
-
-func (m memory) copied() memory { return memory{m.Config, slices.Clone(m.w)} }
-
-// vals are the values that the cells have as they stand.
-func (m memory) vals() []uint32 {
-	var l []uint32
-	for _, w := range m.w[16 : 16+cells(m.Config)] {
-		l = append(l, uint32(w))
-	}
-	return l
-}
-
 // pairs are n entries, of cells at both ends and between them, of which no two are of one cell as long as there are so many.
 func pairs(c api.Config, n int) []api.Pair {
 	l := make([]api.Pair, n)
 	for i := range l {
 		cell := i / 2
 		if i%2 == 1 {
-			cell = cells(c) - 1 - i/2
+			cell = trial.Cells(c) - 1 - i/2
 		}
-		l[i] = api.Pair{Cell: cell % cells(c), Val: math.MaxUint32 - uint32(i)}
+		l[i] = api.Pair{Cell: cell % trial.Cells(c), Val: math.MaxUint32 - uint32(i)}
 	}
 	return l
 }
 
 // wantLog asks whether Log tells these.
-func wantLog(t *testing.T, m memory, u int, n api.Note, l []api.Pair) {
+func wantLog(t *testing.T, m trial.Memory, u int, n api.Note, l []api.Pair) {
 	t.Helper()
-	gotNote, got, ok := redo.Log(m.Config, m.w, u)
+	gotNote, got, ok := redo.Log(m.Config, m.W, u)
 	if !ok || gotNote != n || !slices.Equal(got, l) {
 		t.Fatalf("Log of %d of %v = %v, %v, %t, not %v, %v", u, m.Config, gotNote, got, ok, n, l)
 	}
@@ -120,16 +65,16 @@ func wantNotLaid(t *testing.T, c api.Config, w []uint64, u int, l []api.Pair) {
 }
 
 // wantSettled asks whether the words settle to these values, and, tidied, are those others.
-func wantSettled(t *testing.T, what string, m memory, vals []uint32, tidy []uint64) {
+func wantSettled(t *testing.T, what string, m trial.Memory, vals []uint32, tidy []uint64) {
 	t.Helper()
-	was := slices.Clone(m.w)
-	if got, ok := redo.Settle(m.Config, m.w); !ok || !slices.Equal(got, vals) {
+	was := slices.Clone(m.W)
+	if got, ok := redo.Settle(m.Config, m.W); !ok || !slices.Equal(got, vals) {
 		t.Fatalf("%s: words of %v settle to %v, %t, not %v", what, m.Config, got, ok, vals)
 	}
-	if got, ok := redo.Tidy(m.Config, m.w); !ok || !slices.Equal(got, tidy) {
+	if got, ok := redo.Tidy(m.Config, m.W); !ok || !slices.Equal(got, tidy) {
 		t.Fatalf("%s: words of %v are tidied to %x, %t, not %x", what, m.Config, got, ok, tidy)
 	}
-	if !slices.Equal(m.w, was) {
+	if !slices.Equal(m.W, was) {
 		t.Fatalf("%s: words of %v that were handed in are changed", what, m.Config)
 	}
 }
@@ -149,15 +94,15 @@ func wantUnsettled(t *testing.T, what string, c api.Config, w []uint64) {
 func TestExample(t *testing.T) {
 	for _, c := range rights {
 		w, vals := fresh.Words(c), fresh.Vals(c)
-		wantSettled(t, "fresh", memory{c, w}, vals, w)
+		wantSettled(t, "fresh", trial.Memory{Config: c, W: w}, vals, w)
 		laid, ok := redo.Lay(c, w, 0, 1, []api.Pair{{Cell: 0, Val: 3}})
 		if !ok {
 			t.Fatalf("nothing is laid for %v", c)
 		}
 		vals[0] = 3
 		tidy := slices.Clone(laid)
-		tidy[16], tidy[noteAt(c, 0)] = 1<<32|3, 1<<32|1
-		wantSettled(t, "laid", memory{c, laid}, vals, tidy)
+		tidy[16], tidy[trial.NoteAt(c, 0)] = 1<<32|3, 1<<32|1
+		wantSettled(t, "laid", trial.Memory{Config: c, W: laid}, vals, tidy)
 	}
 }
 
@@ -176,11 +121,11 @@ func wantNothing(t *testing.T, what string, c api.Config, w []uint64) {
 func TestOtherNumbersOfWords(t *testing.T) {
 	for i, c := range rights {
 		w := fresh.Words(c)
-		if len(w) != size(c) {
-			t.Fatalf("%v has %d words, not %d", c, len(w), size(c))
+		if len(w) != trial.Size(c) {
+			t.Fatalf("%v has %d words, not %d", c, len(w), trial.Size(c))
 		}
 		long := append(slices.Clone(w), make([]uint64, 200)...)
-		for _, n := range []int{0, 1, 8, 9, 16, 17, 16 + cells(c), noteAt(c, 0), logAt(c, 0), logAt(c, c.Threads), len(w) - 120, len(w) - 96, len(w) - 8, len(w) - 1, len(w) + 1, len(w) + 8, len(w) + 120} {
+		for _, n := range []int{0, 1, 8, 9, 16, 17, 16 + trial.Cells(c), trial.NoteAt(c, 0), trial.LogAt(c, 0), trial.LogAt(c, c.Threads), len(w) - 120, len(w) - 96, len(w) - 8, len(w) - 1, len(w) + 1, len(w) + 8, len(w) + 120} {
 			wantNothing(t, "cut", c, long[:n])
 		}
 		wantNothing(t, "nil", c, nil)
@@ -195,11 +140,11 @@ func TestWrongConfigurations(t *testing.T) {
 			wantNothing(t, "of a right one", c, w)
 		}
 		if c.Pages <= 1<<14 && c.Pages > 0 && c.Threads >= 0 {
-			m := blank(c, 1, 0)
+			m := trial.Blank(c, 1, 0)
 			for u := range c.Threads + 1 {
-				m.note(u, 1, 0)
+				m.Note(u, 1, 0)
 			}
-			wantNothing(t, "blank", c, m.w)
+			wantNothing(t, "blank", c, m.W)
 		}
 	}
 }
@@ -221,17 +166,17 @@ func TestNoMaker(t *testing.T) {
 
 // P27.1 to P27.3: what was told is nobody else's: who changes it changes neither what was handed in nor what is told next.
 func TestToldAnew(t *testing.T) {
-	m := blank(eight, 7, 1)
-	m.open(1, 7, pairs(eight, 5)...)
-	was := m.copied()
+	m := trial.Blank(eight, 7, 1)
+	m.Open(1, 7, pairs(eight, 5)...)
+	was := m.Copied()
 	for range 2 {
-		n, l, _ := redo.Log(eight, m.w, 1)
+		n, l, _ := redo.Log(eight, m.W, 1)
 		if n.Count != 5 {
 			t.Fatalf("the note is %v", n)
 		}
-		laid, _ := redo.Lay(eight, m.w, 0, 8, l)
-		tidy, _ := redo.Tidy(eight, m.w)
-		vals, _ := redo.Settle(eight, m.w)
+		laid, _ := redo.Lay(eight, m.W, 0, 8, l)
+		tidy, _ := redo.Tidy(eight, m.W)
+		vals, _ := redo.Settle(eight, m.W)
 		for i := range laid {
 			laid[i]++
 			tidy[i]++
@@ -240,7 +185,7 @@ func TestToldAnew(t *testing.T) {
 			vals[i]++
 		}
 		clear(l)
-		if !slices.Equal(m.w, was.w) {
+		if !slices.Equal(m.W, was.W) {
 			t.Fatal("the words that were handed in are changed")
 		}
 		wantLog(t, m, 1, n, pairs(eight, 5))

@@ -6,15 +6,16 @@ import (
 	"testing"
 
 	"nacre/api"
+	"nacre/trial"
 )
 
 // behind is a memory of eight pages, as the entries of the cells 0, 5 and 81 leave it that the change of the stamp 7 turns, of which the maker 0 has the closed note.
-func behind(m memory) memory {
-	m = m.copied()
-	m.cell(0, 7, 10)
-	m.cell(5, 7, 15)
-	m.cell(81, 7, 91)
-	m.note(0, 7, 3)
+func behind(m trial.Memory) trial.Memory {
+	m = m.Copied()
+	m.Cell(0, 7, 10)
+	m.Cell(5, 7, 15)
+	m.Cell(81, 7, 91)
+	m.Note(0, 7, 3)
 	return m
 }
 
@@ -31,22 +32,22 @@ func TestWrittenOut(t *testing.T) {
 	vals[0], vals[5], vals[6], vals[81] = 12, 9, 3, 4
 	tidy := slices.Clone(w)
 	tidy[16], tidy[21], tidy[240] = 0x000000070000000c, 0x0000000700000009, 0x0000000700000003
-	wantSettled(t, "open", memory{eight, w}, vals, tidy)
+	wantSettled(t, "open", trial.Memory{Config: eight, W: w}, vals, tidy)
 }
 
 // P27.2, P27.3: as long as nothing is open the values are those of the cells as they stand, and the words stay, whatever else they are.
 func TestNothingIsOpen(t *testing.T) {
 	for _, c := range rights {
 		for _, s := range stamps {
-			m := blank(c, s, c.Threads)
-			for i := range cells(c) {
-				m.cell(i, uint32(i)%(min(s, 1<<30)+1), uint32(3*i))
+			m := trial.Blank(c, s, c.Threads)
+			for i := range trial.Cells(c) {
+				m.Cell(i, uint32(i)%(min(s, 1<<30)+1), uint32(3*i))
 			}
-			wantSettled(t, "junk", m, m.vals(), m.w)
-			m.log(c.Threads, pairs(c, most)...)
+			wantSettled(t, "junk", m, m.Vals(), m.W)
+			m.Log(c.Threads, pairs(c, most)...)
 			for _, low := range []uint32{0, 1, 3, 96} {
-				m.note(c.Threads, s, low)
-				wantSettled(t, "closed", m, m.vals(), m.w)
+				m.Note(c.Threads, s, low)
+				wantSettled(t, "closed", m, m.Vals(), m.W)
 			}
 		}
 	}
@@ -55,21 +56,21 @@ func TestNothingIsOpen(t *testing.T) {
 // P27.2: each maker may be that of the tip, and none that there is not.
 func TestMakers(t *testing.T) {
 	for _, c := range rights {
-		m := blank(c, 7, 0)
+		m := trial.Blank(c, 7, 0)
 		for u := range c.Threads + 1 {
-			m.open(u, 7, api.Pair{Cell: u, Val: 99})
+			m.Open(u, 7, api.Pair{Cell: u, Val: 99})
 		}
 		for u := range c.Threads + 1 {
-			m.w[8] = joined(7, uint32(u))
-			vals, tidy := m.vals(), m.copied()
+			m.Tip(7, uint32(u))
+			vals, tidy := m.Vals(), m.Copied()
 			vals[u] = 99
-			tidy.cell(u, 7, 99)
-			tidy.note(u, 7, 1)
-			wantSettled(t, fmt.Sprint("maker ", u), m, vals, tidy.w)
+			tidy.Cell(u, 7, 99)
+			tidy.Note(u, 7, 1)
+			wantSettled(t, fmt.Sprint("maker ", u), m, vals, tidy.W)
 		}
 		for _, u := range []uint32{uint32(c.Threads) + 1, uint32(c.Threads) + 2, 17, 18, 1 << 8, 1 << 16, 1 << 31, 1<<31 | 1, maxStamp} {
-			m.w[8] = joined(7, u)
-			wantUnsettled(t, fmt.Sprint("maker ", u), c, m.w)
+			m.Tip(7, u)
+			wantUnsettled(t, fmt.Sprint("maker ", u), c, m.W)
 		}
 	}
 }
@@ -78,24 +79,24 @@ func TestMakers(t *testing.T) {
 func TestStampsAbove(t *testing.T) {
 	for _, c := range rights {
 		for n, s := range stamps[:len(stamps)-1] {
-			m := blank(c, s, 0)
-			for at := n; at < cells(c); at += 1 + cells(c)/60 {
+			m := trial.Blank(c, s, 0)
+			for at := n; at < trial.Cells(c); at += 1 + trial.Cells(c)/60 {
 				for turn, above := range []uint32{s + 1, maxStamp} {
-					m.note(0, s, 0)
+					m.Note(0, s, 0)
 					if turn == 0 {
-						m.open(0, s, api.Pair{Cell: at}, api.Pair{Cell: 1})
+						m.Open(0, s, api.Pair{Cell: at}, api.Pair{Cell: 1})
 					}
-					m.cell(at, above, 5)
-					wantUnsettled(t, fmt.Sprintf("cell %d of %d", at, above), c, m.w)
-					m.cell(at, s, 5)
+					m.Cell(at, above, 5)
+					wantUnsettled(t, fmt.Sprintf("cell %d of %d", at, above), c, m.W)
+					m.Cell(at, s, 5)
 				}
 			}
-			m.note(0, s, 0)
-			wantSettled(t, "not above", m, m.vals(), m.w)
-			for _, at := range []int{0, 1, cells(c) - 1} {
-				m.cell(at, s+1, 5)
-				wantUnsettled(t, "at an end", c, m.w)
-				m.cell(at, 0, 5)
+			m.Note(0, s, 0)
+			wantSettled(t, "not above", m, m.Vals(), m.W)
+			for _, at := range []int{0, 1, trial.Cells(c) - 1} {
+				m.Cell(at, s+1, 5)
+				wantUnsettled(t, "at an end", c, m.W)
+				m.Cell(at, 0, 5)
 			}
 		}
 	}
@@ -103,36 +104,36 @@ func TestStampsAbove(t *testing.T) {
 
 // P27.2: just cells have stamps: what else is in the words may be anything, beside the tip, and the note and the log of its maker.
 func TestOtherWords(t *testing.T) {
-	for _, other := range []uint64{0, junk, 7 << 32, 8 << 32, 7<<32 | 1<<31 | 1, 8<<32 | 1<<31 | 1, 5<<32 | 1} {
-		m := blank(eight, 7, 0)
-		m.open(0, 7, three...)
-		for w := range m.w {
+	for _, other := range []uint64{0, trial.Junk, 7 << 32, 8 << 32, 7<<32 | 1<<31 | 1, 8<<32 | 1<<31 | 1, 5<<32 | 1} {
+		m := trial.Blank(eight, 7, 0)
+		m.Open(0, 7, three...)
+		for w := range m.W {
 			isLog := w >= 128 && w < 131
 			if w != 8 && (w < 16 || w > 97) && w != 120 && !isLog {
-				m.w[w] = other
+				m.W[w] = other
 			}
 		}
 		want := behind(m)
-		wantSettled(t, fmt.Sprintf("%x", other), m, want.vals(), want.w)
+		wantSettled(t, fmt.Sprintf("%x", other), m, want.Vals(), want.W)
 	}
 }
 
 // P27.2, P27.3: the last change is open just if the note of its maker is open, and has its stamp; else its log is not asked, nor the other maker's.
 func TestOpen(t *testing.T) {
-	m := blank(eight, 7, 0)
-	m.open(1, 7, api.Pair{Cell: 9, Val: 1})
-	m.open(0, 7, three...)
+	m := trial.Blank(eight, 7, 0)
+	m.Open(1, 7, api.Pair{Cell: 9, Val: 1})
+	m.Open(0, 7, three...)
 	want := behind(m)
-	wantSettled(t, "open", m, want.vals(), want.w)
+	wantSettled(t, "open", m, want.Vals(), want.W)
 	for _, note := range []uint64{
 		7<<32 | 3, 6<<32 | 1<<31 | 3, 8<<32 | 1<<31 | 3, 0<<32 | 1<<31 | 3, maxStamp<<32 | 1<<31 | 3, 1<<63 | 7<<32 | 1<<31 | 3,
-		7<<32 | 1<<31 | 97, 7<<32 | 1<<31 | 1<<30 | 3, 7<<32 | 1<<31 | 1<<16 | 3, 7<<32 | 1<<30 | 3, 7 << 32, 0, junk,
+		7<<32 | 1<<31 | 97, 7<<32 | 1<<31 | 1<<30 | 3, 7<<32 | 1<<31 | 1<<16 | 3, 7<<32 | 1<<30 | 3, 7 << 32, 0, trial.Junk,
 	} {
-		m.w[120] = note
-		wantSettled(t, fmt.Sprintf("the note %x", note), m, m.vals(), m.w)
-		broken := m.copied()
-		broken.w[128] = junk
-		wantSettled(t, fmt.Sprintf("the note %x, no log", note), broken, m.vals(), broken.w)
+		m.W[120] = note
+		wantSettled(t, fmt.Sprintf("the note %x", note), m, m.Vals(), m.W)
+		broken := m.Copied()
+		broken.W[128] = trial.Junk
+		wantSettled(t, fmt.Sprintf("the note %x, no log", note), broken, m.Vals(), broken.W)
 	}
 }
 
@@ -140,29 +141,29 @@ func TestOpen(t *testing.T) {
 func TestOpenOfNoCells(t *testing.T) {
 	for _, c := range rights {
 		for _, s := range stamps {
-			m := blank(c, s, 0)
-			m.open(0, s)
-			tidy := m.copied()
-			tidy.note(0, s, 0)
-			wantSettled(t, "of no cells", m, m.vals(), tidy.w)
+			m := trial.Blank(c, s, 0)
+			m.Open(0, s)
+			tidy := m.Copied()
+			tidy.Note(0, s, 0)
+			wantSettled(t, "of no cells", m, m.Vals(), tidy.W)
 		}
 	}
 }
 
 // P27.2, P27.3: if it is open, and one of its entries is none of a cell, the words settle to nothing; the word behind its entries may be anything.
 func TestOpenWithoutLog(t *testing.T) {
-	for _, word := range []uint64{junk, 82 << 32, 83<<32 | 7, 0xffff << 32, 1 << 48, 1<<48 | 5<<32, 1 << 63} {
-		m := blank(eight, 7, 0)
-		m.open(0, 7, three...)
+	for _, word := range []uint64{trial.Junk, 82 << 32, 83<<32 | 7, 0xffff << 32, 1 << 48, 1<<48 | 5<<32, 1 << 63} {
+		m := trial.Blank(eight, 7, 0)
+		m.Open(0, 7, three...)
 		for at := range 4 {
-			broken := m.copied()
-			broken.w[128+at] = word
+			broken := m.Copied()
+			broken.W[128+at] = word
 			if at < 3 {
-				wantUnsettled(t, fmt.Sprintf("the entry %d is %x", at, word), eight, broken.w)
+				wantUnsettled(t, fmt.Sprintf("the entry %d is %x", at, word), eight, broken.W)
 				continue
 			}
 			want := behind(broken)
-			wantSettled(t, fmt.Sprintf("the entry %d is %x", at, word), broken, want.vals(), want.w)
+			wantSettled(t, fmt.Sprintf("the entry %d is %x", at, word), broken, want.Vals(), want.W)
 		}
 	}
 }
@@ -175,17 +176,17 @@ func TestTurnedBelow(t *testing.T) {
 				if of > s {
 					continue
 				}
-				at := cells(c) - 1
-				m := blank(c, s, 0)
-				m.cell(at, of, 4)
-				m.open(0, s, api.Pair{Cell: at, Val: 8})
-				vals, tidy := m.vals(), m.copied()
-				tidy.note(0, s, 1)
+				at := trial.Cells(c) - 1
+				m := trial.Blank(c, s, 0)
+				m.Cell(at, of, 4)
+				m.Open(0, s, api.Pair{Cell: at, Val: 8})
+				vals, tidy := m.Vals(), m.Copied()
+				tidy.Note(0, s, 1)
 				if of < s {
 					vals[at] = 8
-					tidy.cell(at, s, 8)
+					tidy.Cell(at, s, 8)
 				}
-				wantSettled(t, fmt.Sprintf("%d at %d", of, s), m, vals, tidy.w)
+				wantSettled(t, fmt.Sprintf("%d at %d", of, s), m, vals, tidy.W)
 			}
 		}
 	}
@@ -193,29 +194,29 @@ func TestTurnedBelow(t *testing.T) {
 
 // P27.2, P27.3: of several entries of one cell the first one turns it, and the others find it turned.
 func TestEntriesOfOneCell(t *testing.T) {
-	m := blank(eight, 7, 0)
-	m.open(0, 7, api.Pair{Cell: 5, Val: 15}, api.Pair{Cell: 0, Val: 10}, api.Pair{Cell: 5, Val: 16}, api.Pair{Cell: 81, Val: 91}, api.Pair{Cell: 5, Val: 5}, api.Pair{Cell: 0, Val: 11})
+	m := trial.Blank(eight, 7, 0)
+	m.Open(0, 7, api.Pair{Cell: 5, Val: 15}, api.Pair{Cell: 0, Val: 10}, api.Pair{Cell: 5, Val: 16}, api.Pair{Cell: 81, Val: 91}, api.Pair{Cell: 5, Val: 5}, api.Pair{Cell: 0, Val: 11})
 	want := behind(m)
-	want.note(0, 7, 6)
-	wantSettled(t, "one cell", m, want.vals(), want.w)
-	m.cell(5, 7, 17)
-	want.cell(5, 7, 17)
-	wantSettled(t, "turned already", m, want.vals(), want.w)
+	want.Note(0, 7, 6)
+	wantSettled(t, "one cell", m, want.Vals(), want.W)
+	m.Cell(5, 7, 17)
+	want.Cell(5, 7, 17)
+	wantSettled(t, "turned already", m, want.Vals(), want.W)
 }
 
 // P27.2, P27.3: a change of as many cells as there may be, by each maker; the note of it keeps its stamp and its Count.
 func TestMostCells(t *testing.T) {
 	for _, c := range rights {
 		for u := range c.Threads + 1 {
-			m := blank(c, 1<<31, u)
-			l := pairs(c, min(most, cells(c)))
-			m.open(u, 1<<31, l...)
-			tidy := m.copied()
+			m := trial.Blank(c, 1<<31, u)
+			l := pairs(c, min(most, trial.Cells(c)))
+			m.Open(u, 1<<31, l...)
+			tidy := m.Copied()
 			for _, p := range l {
-				tidy.cell(p.Cell, 1<<31, p.Val)
+				tidy.Cell(p.Cell, 1<<31, p.Val)
 			}
-			tidy.note(u, 1<<31, uint32(len(l)))
-			wantSettled(t, "most cells", m, tidy.vals(), tidy.w)
+			tidy.Note(u, 1<<31, uint32(len(l)))
+			wantSettled(t, "most cells", m, tidy.Vals(), tidy.W)
 		}
 	}
 }
@@ -224,34 +225,34 @@ func TestMostCells(t *testing.T) {
 func TestWhicheverAreTurned(t *testing.T) {
 	for _, c := range rights {
 		for _, u := range []int{0, c.Threads} {
-			m := blank(c, 3, u)
+			m := trial.Blank(c, 3, u)
 			l := append(pairs(c, 7), pairs(c, 3)...)
-			m.open(u, 3, l...)
-			tidy := m.copied()
+			m.Open(u, 3, l...)
+			tidy := m.Copied()
 			for _, p := range l {
-				tidy.cell(p.Cell, 3, p.Val)
+				tidy.Cell(p.Cell, 3, p.Val)
 			}
-			tidy.note(u, 3, 10)
+			tidy.Note(u, 3, 10)
 			for turned := range 1 << 7 {
-				part := m.copied()
+				part := m.Copied()
 				for i, p := range l[:7] {
 					if turned>>i&1 == 1 {
-						part.cell(p.Cell, 3, p.Val)
+						part.Cell(p.Cell, 3, p.Val)
 					}
 				}
-				wantSettled(t, fmt.Sprintf("turned %b", turned), part, tidy.vals(), tidy.w)
+				wantSettled(t, fmt.Sprintf("turned %b", turned), part, tidy.Vals(), tidy.W)
 			}
-			wantSettled(t, "tidied", tidy, tidy.vals(), tidy.w)
+			wantSettled(t, "tidied", tidy, tidy.Vals(), tidy.W)
 			// The note may still be open where all cells are turned.
-			tidy.note(u, 3, 1<<31|10)
-			wantSettled(t, "all turned", tidy, tidy.vals(), replaced(tidy, u))
+			tidy.Note(u, 3, 1<<31|10)
+			wantSettled(t, "all turned", tidy, tidy.Vals(), replaced(tidy, u))
 		}
 	}
 }
 
 // replaced is the words with the closed note of ten entries.
-func replaced(m memory, u int) []uint64 {
-	m = m.copied()
-	m.note(u, 3, 10)
-	return m.w
+func replaced(m trial.Memory, u int) []uint64 {
+	m = m.Copied()
+	m.Note(u, 3, 10)
+	return m.W
 }

@@ -1,4 +1,4 @@
-// Package trial has what the tests of several layers share: configurations of each sort, heaps that are laid piece by piece, questions about what was read and put of a View, and numbers that look like ones by chance. No layer stands on it.
+// Package trial has what the tests of several layers share: configurations of each sort, words of memories, heaps that are laid piece by piece, questions about what was read and put of a View, and numbers that look like ones by chance. No layer stands on it.
 package trial
 
 import (
